@@ -2,193 +2,23 @@ package lower_test
 
 import (
 	"fmt"
-	"math"
 	"testing"
 
 	"cupel/api"
 	"cupel/gen"
+	"cupel/irsem"
 	"cupel/lower"
 	"cupel/sem"
 )
 
-// runner does what a module says, as far as modules of programs go: without phis.
-type runner struct {
-	m           api.Module
-	cells       []int64
-	arrays      [][]int64
-	steps       int
-	out         []int64
-	end, code   int
-	interrupted bool
-}
-
 // run returns what a module does with so many steps.
-func run(m api.Module, steps int) api.Behaviour {
-	r := &runner{m: m, steps: steps, end: api.EnDone}
-	for _, c := range m.Cells {
-		r.cells = append(r.cells, c.Init)
+func run(t *testing.T, m api.Module, steps int) api.Behaviour {
+	t.Helper()
+	b, e := irsem.Run(m, steps)
+	if e != api.OK {
+		t.Fatalf("Run with %d steps: error %d\n%+v", steps, e, m)
 	}
-	for _, a := range m.Arrays {
-		r.arrays = append(r.arrays, make([]int64, a.Len))
-	}
-	r.call(m.Main, nil, nil)
-	return api.Behaviour{Out: r.out, End: r.end, Code: r.code}
-}
-
-func (r *runner) stop(end, code int) { r.end, r.code, r.interrupted = end, code, true }
-
-// step reports whether one more may be made.
-func (r *runner) step() bool {
-	if !r.interrupted && r.steps == 0 {
-		r.stop(api.EnSteps, 0)
-	}
-	r.steps--
-	return !r.interrupted
-}
-
-// activation is a call that has not come to its end.
-type activation struct {
-	*runner
-	f      api.IFunc
-	regs   []int64
-	arrays [][]int64
-}
-
-func (r *runner) call(i int, args []int64, given [][]int64) int64 {
-	a := &activation{runner: r, f: r.m.Funcs[i], regs: make([]int64, r.m.Funcs[i].Regs)}
-	copy(a.regs, args)
-	for _, x := range a.f.Arrays {
-		switch x.Kind {
-		case api.AyLocal:
-			a.arrays = append(a.arrays, make([]int64, x.Len))
-		case api.AyParam:
-			a.arrays, given = append(a.arrays, given[0]), given[1:]
-		case api.AyGlobal:
-			a.arrays = append(a.arrays, r.arrays[x.Global])
-		}
-	}
-	for block := 0; block >= 0; {
-		for _, x := range a.f.Blocks[block].Code {
-			if !r.step() {
-				return 0
-			}
-			a.do(x)
-		}
-		end := a.f.Blocks[block].End
-		if !r.step() {
-			return 0
-		}
-		switch end.Op {
-		case api.TmReturn:
-			if a.f.Result {
-				return a.value(end.A)
-			}
-			return 0
-		case api.TmTrap:
-			r.stop(api.EnTrap, api.TrStated)
-			return 0
-		case api.TmBranch:
-			if a.value(end.A) == 0 {
-				end.To = end.Else
-			}
-		}
-		block = end.To
-	}
-	return 0
-}
-
-func (a *activation) value(x api.Opd) int64 {
-	if x.Reg < 0 {
-		return x.Imm
-	}
-	return a.regs[x.Reg]
-}
-
-func (a *activation) small(i int) bool {
-	x := a.f.Arrays[i]
-	return x.Small || x.Kind == api.AyGlobal && a.m.Arrays[x.Global].Small
-}
-
-func (a *activation) do(x api.Instr) {
-	switch v := a.value; x.Op {
-	case api.IxCopy:
-		a.regs[x.To] = v(x.A)
-	case api.IxBin:
-		a.regs[x.To] = a.operation(x.Kind, v(x.A), v(x.B))
-	case api.IxCheck:
-		if v(x.A) < 0 || v(x.A) >= v(x.B) {
-			a.stop(api.EnTrap, api.TrIndex)
-		}
-	case api.IxLoad:
-		a.regs[x.To] = a.arrays[x.Array][v(x.A)]
-	case api.IxStore:
-		a.arrays[x.Array][v(x.A)] = v(x.B)
-		if a.small(x.Array) {
-			a.arrays[x.Array][v(x.A)] = v(x.B) & 255
-		}
-	case api.IxGet:
-		a.regs[x.To] = a.cells[x.Cell]
-	case api.IxPut:
-		a.cells[x.Cell] = v(x.A)
-	case api.IxPrint:
-		if len(a.out) == api.MaxOut {
-			a.stop(api.EnSteps, 0)
-			return
-		}
-		a.out = append(a.out, v(x.A))
-	case api.IxCall:
-		var args []int64
-		var given [][]int64
-		for _, arg := range x.Args {
-			args = append(args, v(arg))
-		}
-		for _, i := range x.Arrays {
-			given = append(given, a.arrays[i])
-		}
-		if result := a.call(x.Func, args, given); x.To >= 0 {
-			a.regs[x.To] = result
-		}
-	default:
-		panic(fmt.Sprint("operation ", x.Op))
-	}
-}
-
-func (a *activation) operation(kind int, x, y int64) int64 {
-	truth := map[int]bool{api.IbEq: x == y, api.IbNe: x != y, api.IbLt: x < y, api.IbLe: x <= y}
-	if truth[kind] {
-		return 1
-	}
-	switch kind {
-	case api.IbAdd:
-		return x + y
-	case api.IbSub:
-		return x - y
-	case api.IbMul:
-		return x * y
-	case api.IbDiv, api.IbRem:
-		if y == 0 {
-			a.stop(api.EnTrap, api.TrDivide)
-			return 0
-		}
-		if x == math.MinInt64 && y == -1 {
-			panic("undefined")
-		}
-		if kind == api.IbDiv {
-			return x / y
-		}
-		return x % y
-	case api.IbAnd:
-		return x & y
-	case api.IbOr:
-		return x | y
-	case api.IbXor:
-		return x ^ y
-	case api.IbShl:
-		return x << (y & 63)
-	case api.IbShr:
-		return x >> (y & 63)
-	}
-	return 0
+	return b
 }
 
 // compare runs a program and its module, and says how they end.
@@ -202,14 +32,14 @@ func compare(t *testing.T, p api.Program, steps int, seen ends) {
 	if b.End == api.EnUndefined || wrong == api.ErrLong {
 		return
 	}
-	c := run(m, 200*used+1000)
-	if !sem.Agree(b, c) || b.End != api.EnSteps && fmt.Sprint(b) != fmt.Sprint(c) {
+	c := run(t, m, 200*used+1000)
+	if !irsem.Agree(b, c) || b.End != api.EnSteps && fmt.Sprint(b) != fmt.Sprint(c) {
 		t.Fatalf("%s\ndoes %v in %d steps, its module %v\n%s", text(p), b, used, c, lowered(t, p))
 	}
 	seen[fmt.Sprint(b.End, b.Code)]++
 }
 
-// P9.1: modules do what their programs do, but in at most 200 s + 1000 steps where those need s.
+// P9.3: modules do what their programs do, in at most 200 s + 1000 steps where those need s; if those are cut short, both agree.
 func TestMeaning(t *testing.T) {
 	seen := ends{}
 	programs(t, 1500, func(p api.Program) {
@@ -219,7 +49,7 @@ func TestMeaning(t *testing.T) {
 	seen.expect(t, 10, "1 0", "2 1", "2 2", "2 3", "4 0")
 }
 
-// P9.1: so do modules of programs that are generated.
+// P9.3: so do modules of programs that are generated.
 func TestMeaningGenerated(t *testing.T) {
 	seen := ends{}
 	for seed := range uint64(200) {
@@ -233,7 +63,7 @@ func TestMeaningGenerated(t *testing.T) {
 	}
 }
 
-// P9.1: what is told apart by order alone, in programs that say so.
+// P9.3: what is told apart by order alone, in programs that say so.
 func TestMeaningOfOrder(t *testing.T) {
 	for _, c := range []struct{ program, want string }{
 		{"global g: int = 1; func f(): int { g = g + 1; return g; } func main() { print g * 10 + f(); print f() * 10 + g; print g; }", "[12 33 3] 1 0"},
@@ -252,9 +82,47 @@ func TestMeaningOfOrder(t *testing.T) {
 	} {
 		p := read(t, c.program)
 		m, e := lower.Lower(p, with())
-		b := run(m, 1000)
+		b := run(t, m, 1000)
 		if got := fmt.Sprint(b.Out, b.End, b.Code); got != c.want || e != api.OK {
 			t.Errorf("%s\ndoes %s (error %d), want %s", c.program, got, e, c.want)
+		}
+		compare(t, p, api.MaxSteps, ends{})
+	}
+}
+
+// P9.3: with each number of steps, from none to more than a program takes.
+func TestMeaningOfAllSteps(t *testing.T) {
+	seen := ends{}
+	programs(t, 80, func(p api.Program) {
+		_, used, _, _ := sem.Run(p, 200)
+		for steps := range used + 3 {
+			compare(t, p, steps, seen)
+		}
+	})
+	if seen["1 0"] < 50 || seen["4 0"] < 1000 {
+		t.Errorf("ends: %v", seen)
+	}
+}
+
+// P9.3: programs that print as much as they may, or more, or take all steps.
+func TestMeaningOfLongRuns(t *testing.T) {
+	for _, c := range []struct {
+		program string
+		out     int
+		end     int
+	}{
+		{"func main() { for i in 0 .. 2000 { print i; } }", 2000, api.EnDone},
+		{"func main() { for i in 0 .. 2001 { print i; } }", 2000, api.EnSteps},
+		{"func main() { for i in 0 .. 2000 { print i; } trap; }", 2000, api.EnTrap},
+		{"func main() { let n: int = 0; while true upto 1000 { while true upto 1000 { while true upto 1000 { n = n + 1; print n & 1; } } } }", 2000, api.EnSteps},
+		{"func main() { while true upto 1000 { while true upto 1000 { } } }", 0, api.EnSteps},
+		{"func main() { for i in 0 .. 6000 { let a: small[16]; let b: int[16]; let c: int[16]; } print 1; }", 0, api.EnSteps},
+		{"func main() { for i in 0 .. 4000 { let a: small[16]; let b: int[16]; let c: int[16]; } print 1; }", 1, api.EnDone},
+		{"func f() { } func main() { for i in 0 .. 6000 { f(); } print 1; }", 1, api.EnDone},
+	} {
+		p := read(t, c.program)
+		if b, _, _, e := sem.Run(p, api.MaxSteps); e != api.OK || len(b.Out) != c.out || b.End != c.end {
+			t.Errorf("%s\ndoes %v (error %d)", c.program, b, e)
 		}
 		compare(t, p, api.MaxSteps, ends{})
 	}
