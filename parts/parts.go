@@ -1,0 +1,129 @@
+// Package parts has what passes on modules share: limits that are right, copies of modules, operands that can be changed, blocks in another order.
+package parts
+
+import (
+	"slices"
+
+	"cupel/api"
+)
+
+// IsLimit reports whether a limit is right.
+func IsLimit(x api.Limit) bool { return x.Most >= -1 && AreFaults(x.Faults) }
+
+// AreFaults reports whether a list consists of numbers of faults, ascending, each once.
+func AreFaults(list []int) bool {
+	last := 0
+	for _, n := range list {
+		if n <= last || n > api.MaxFaults {
+			return false
+		}
+		last = n
+	}
+	return true
+}
+
+// Copy returns the same module in new memory.
+func Copy(m api.Module) api.Module {
+	m.Cells, m.Arrays, m.Funcs = slices.Clone(m.Cells), slices.Clone(m.Arrays), slices.Clone(m.Funcs)
+	for i := range m.Funcs {
+		f := &m.Funcs[i]
+		f.Arrays, f.Blocks = slices.Clone(f.Arrays), slices.Clone(f.Blocks)
+		for b := range f.Blocks {
+			f.Blocks[b].Code = copyCode(f.Blocks[b].Code)
+		}
+	}
+	return m
+}
+
+func copyCode(list []api.Instr) []api.Instr {
+	list = slices.Clone(list)
+	for i := range list {
+		x := &list[i]
+		x.Args, x.Arrays, x.From = slices.Clone(x.Args), slices.Clone(x.Arrays), slices.Clone(x.From)
+	}
+	return list
+}
+
+// Operands returns the operands of an instruction, in order.
+func Operands(x *api.Instr) []*api.Opd {
+	var list []*api.Opd
+	switch x.Op {
+	case api.IxCopy, api.IxLoad, api.IxPut, api.IxPrint:
+		list = append(list, &x.A)
+	case api.IxBin, api.IxCheck, api.IxStore:
+		list = append(list, &x.A, &x.B)
+	}
+	for i := range x.Args {
+		list = append(list, &x.Args[i])
+	}
+	return list
+}
+
+// EndOperands returns the operand of an end, if it has one; result says whether its function has one.
+func EndOperands(t *api.Term, result bool) []*api.Opd {
+	if t.Op == api.TmBranch || t.Op == api.TmReturn && result {
+		return []*api.Opd{&t.A}
+	}
+	return nil
+}
+
+// Targets returns the blocks to which an end leads, each once, To before Else.
+func Targets(t api.Term) []int {
+	switch {
+	case t.Op == api.TmJump, t.Op == api.TmBranch && t.To == t.Else:
+		return []int{t.To}
+	case t.Op == api.TmBranch:
+		return []int{t.To, t.Else}
+	}
+	return nil
+}
+
+// Phis returns how many phis a block has.
+func Phis(b api.Block) int {
+	for i, x := range b.Code {
+		if x.Op != api.IxPhi {
+			return i
+		}
+	}
+	return len(b.Code)
+}
+
+// Arrange gives a function these blocks of it alone, in this order. Ends lead to none of the others; what belongs to others in phis is left out.
+func Arrange(f *api.IFunc, order []int) {
+	number := map[int]int{}
+	for i, b := range order {
+		number[b] = i
+	}
+	blocks := make([]api.Block, len(order))
+	for i, b := range order {
+		blocks[i] = f.Blocks[b]
+		end, phis := &blocks[i].End, blocks[i].Code[:Phis(f.Blocks[b])]
+		switch end.Op {
+		case api.TmJump:
+			end.To = number[end.To]
+		case api.TmBranch:
+			end.To, end.Else = number[end.To], number[end.Else]
+		}
+		for j := range phis {
+			arrangePhi(&phis[j], number)
+		}
+	}
+	f.Blocks = blocks
+}
+
+// arrangePhi gives the blocks of a phi their new numbers, and leaves out those that have none.
+func arrangePhi(x *api.Instr, number map[int]int) {
+	args := map[int]api.Opd{}
+	var from []int
+	for i, b := range x.From {
+		if n, kept := number[b]; kept {
+			args[n] = x.Args[i]
+			from = append(from, n)
+		}
+	}
+	slices.Sort(from)
+	x.From, x.Args = from, nil
+	for _, n := range from {
+		x.Args = append(x.Args, args[n])
+	}
+}

@@ -1,0 +1,114 @@
+package parts_test
+
+import (
+	"fmt"
+	"testing"
+
+	"cupel/api"
+	"cupel/ir"
+	"cupel/parts"
+)
+
+func read(t *testing.T, text string) api.Module {
+	t.Helper()
+	m, at, e := ir.Parse(text)
+	if e != api.OK {
+		t.Fatalf("Parse(%q): error %d at %d", text, e, at)
+	}
+	return m
+}
+
+func TestIsLimit(t *testing.T) {
+	for _, c := range []struct {
+		x    api.Limit
+		want bool
+	}{
+		{api.Limit{}, true},
+		{api.Limit{Most: -1, Faults: []int{1, 2, 24}}, true},
+		{api.Limit{Most: 7, Faults: []int{24}}, true},
+		{api.Limit{Most: -2}, false},
+		{api.Limit{Faults: []int{0}}, false},
+		{api.Limit{Faults: []int{25}}, false},
+		{api.Limit{Faults: []int{3, 3}}, false},
+		{api.Limit{Faults: []int{3, 2}}, false},
+	} {
+		if is := parts.IsLimit(c.x); is != c.want {
+			t.Errorf("%v: %v", c.x, is)
+		}
+	}
+}
+
+const code = `cell c = 1; array x[2]; main f; func f params 0 regs 3 { global x; b0: r0 = 5; r0 = add r1, r2; check r0, r1; r0 = load a0[r1]; store a0[r1] = r2; r0 = get c0; put c0 = r1; print r1; branch r1, b1, b1; b1: r0 = phi b0: r1; jump b2; b2: r0 = call g(r2, 4, r1); trap; }
+func g params 3 regs 3 result { b0: branch r0, b1, b2; b1: return r1; b2: return r2; }`
+
+// All operands in order, each of which can be changed.
+func TestOperands(t *testing.T) {
+	m := read(t, code)
+	var seen []string
+	for _, f := range m.Funcs {
+		for b := range f.Blocks {
+			for i := range f.Blocks[b].Code {
+				x := &f.Blocks[b].Code[i]
+				list := ""
+				for _, o := range parts.Operands(x) {
+					list += fmt.Sprint(o.Reg, " ")
+					o.Reg, o.Imm = 0, 0
+				}
+				seen = append(seen, list)
+			}
+			list := "end "
+			for _, o := range parts.EndOperands(&f.Blocks[b].End, f.Result) {
+				list += fmt.Sprint(o.Reg, " ")
+				o.Reg = 0
+			}
+			seen = append(seen, list+fmt.Sprint(parts.Targets(f.Blocks[b].End)))
+		}
+	}
+	want := "[-1  1 2  0 1  1  1 2   1  1  end 1 [1] 1  end [2] 2 -1 1  end [] end 0 [1 2] end 1 [] end 2 []]"
+	if got := fmt.Sprint(seen); got != want {
+		t.Errorf("%q, want %q", got, want)
+	}
+	changed := `cell c = 1; array x[2]; main f; func f params 0 regs 3 { global x; b0: r0 = r0; r0 = add r0, r0; check r0, r0; r0 = load a0[r0]; store a0[r0] = r0; r0 = get c0; put c0 = r0; print r0; branch r0, b1, b1; b1: r0 = phi b0: r0; jump b2; b2: r0 = call g(r0, r0, r0); trap; }
+func g params 3 regs 3 result { b0: branch r0, b1, b2; b1: return r0; b2: return r0; }`
+	if !ir.Same(m, read(t, changed)) {
+		t.Errorf("%v", m)
+	}
+}
+
+// A copy does not change with what it is a copy of.
+func TestCopy(t *testing.T) {
+	m := read(t, code)
+	c := parts.Copy(m)
+	if !ir.Same(c, m) {
+		t.Fatalf("%v", c)
+	}
+	f := m.Funcs[0]
+	f.Blocks[0].Code[0].To, f.Blocks[1].Code[0].Args[0].Reg, f.Blocks[1].Code[0].From[0], f.Blocks[2].End.Op = 1, 2, 2, api.TmReturn
+	f.Arrays[0].Global, m.Cells[0].Init, m.Arrays[0].Len, m.Funcs[1].Name = 1, 2, 3, "h"
+	if !ir.Same(c, read(t, code)) {
+		t.Errorf("%v", c)
+	}
+}
+
+// Blocks are put in another order, others are left out.
+func TestArrange(t *testing.T) {
+	const head = "main f; func f params 0 regs 1 { "
+	const body = "b0: branch 1, b2, b1; b1: jump b4; b2: branch 2, b4, b1; b3: jump b4; b4: r0 = phi b1: 1, b2: 2, b3: 3; r0 = phi b1: 4, b2: 5, b3: 6; print r0; return; }"
+	for _, c := range []struct {
+		order []int
+		want  string
+	}{
+		{[]int{0, 1, 2, 3, 4}, body},
+		{[]int{0, 1, 2, 4}, "b0: branch 1, b2, b1; b1: jump b3; b2: branch 2, b3, b1; b3: r0 = phi b1: 1, b2: 2; r0 = phi b1: 4, b2: 5; print r0; return; }"},
+		{[]int{0, 4, 2, 3, 1}, "b0: branch 1, b2, b4; b1: r0 = phi b2: 2, b3: 3, b4: 1; r0 = phi b2: 5, b3: 6, b4: 4; print r0; return; b2: branch 2, b1, b4; b3: jump b1; b4: jump b1; }"},
+	} {
+		m := read(t, head+body)
+		parts.Arrange(&m.Funcs[0], c.order)
+		if !ir.Same(m, read(t, head+c.want)) {
+			t.Errorf("%v: %v", c.order, m)
+		}
+	}
+	if n := parts.Phis(read(t, head+body).Funcs[0].Blocks[4]); n != 2 {
+		t.Errorf("%d phis", n)
+	}
+}
