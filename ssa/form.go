@@ -18,7 +18,7 @@ func isForm(f api.IFunc, g api.Graph) bool {
 	known := func(o api.Opd, at place) bool {
 		d, is := made[o.Reg]
 		switch {
-		case o.Reg < f.Params:
+		case o.Reg < f.Params: // or a constant, which has -1
 			return true
 		case is && d.block == at.block:
 			return d.index < at.index
