@@ -1,11 +1,23 @@
-// Package parts has what passes on modules share: limits that are right, copies of modules, operands that can be changed, blocks in another order.
+// Package parts has what passes on modules share: arguments that are right, records of applications, copies of modules, operands that can be changed, blocks in another order.
 package parts
 
 import (
 	"slices"
 
 	"cupel/api"
+	"cupel/ir"
 )
+
+// Arguments returns the error that the arguments of a pass have, if there is one: that of the module, or ErrArg.
+func Arguments(m api.Module, k int, x api.Limit) api.Errno {
+	if e := ir.Check(m); e != api.OK {
+		return e
+	}
+	if k < 0 || k >= len(m.Funcs) || !IsLimit(x) {
+		return api.ErrArg
+	}
+	return api.OK
+}
 
 // IsLimit reports whether a limit is right.
 func IsLimit(x api.Limit) bool { return x.Most >= -1 && AreFaults(x.Faults) }
@@ -19,6 +31,21 @@ func AreFaults(list []int) bool {
 		}
 		last = n
 	}
+	return true
+}
+
+// Record is what a pass has made of a function: at most so many applications, or, if Most is -1, any number.
+type Record struct {
+	Pass, Func, Most int
+	List             []api.Applied
+}
+
+// Add reports whether one more application may be made, and adds it then.
+func (r *Record) Add(rule, block, index int) bool {
+	if len(r.List) == r.Most {
+		return false
+	}
+	r.List = append(r.List, api.Applied{Pass: r.Pass, Rule: rule, Func: r.Func, Block: block, Index: index})
 	return true
 }
 

@@ -2,6 +2,7 @@ package parts_test
 
 import (
 	"fmt"
+	"slices"
 	"testing"
 
 	"cupel/api"
@@ -34,6 +35,53 @@ func TestIsLimit(t *testing.T) {
 	} {
 		if is := parts.IsLimit(c.x); is != c.want {
 			t.Errorf("%v: %v", c.x, is)
+		}
+	}
+}
+
+// The error of a module comes before ErrArg.
+func TestArguments(t *testing.T) {
+	m := read(t, code)
+	long := read(t, code)
+	long.Funcs[1].Regs = 301
+	for _, c := range []struct {
+		m    api.Module
+		k    int
+		x    api.Limit
+		want api.Errno
+	}{
+		{m, 0, api.Limit{}, api.OK},
+		{m, 1, api.Limit{Most: -1, Faults: []int{3, 24}}, api.OK},
+		{m, 2, api.Limit{}, api.ErrArg},
+		{m, -1, api.Limit{}, api.ErrArg},
+		{m, 0, api.Limit{Most: -2}, api.ErrArg},
+		{m, 1, api.Limit{Faults: []int{25}}, api.ErrArg},
+		{long, 0, api.Limit{}, api.ErrLong},
+		{long, 2, api.Limit{Most: -2}, api.ErrLong},
+		{api.Module{}, 0, api.Limit{}, api.ErrArg},
+	} {
+		if e := parts.Arguments(c.m, c.k, c.x); e != c.want {
+			t.Errorf("%d, %v: error %d, want %d", c.k, c.x, e, c.want)
+		}
+	}
+}
+
+// A record has as many applications as there may be at most.
+func TestRecord(t *testing.T) {
+	for most := -1; most < 6; most++ {
+		r := parts.Record{Pass: api.PsFold, Func: 3, Most: most}
+		var want []api.Applied
+		for i := range 4 {
+			may := most == -1 || i < most
+			if added := r.Add(2, 5, i-1); added != may {
+				t.Errorf("Most %d: application %d: %v", most, i, added)
+			}
+			if may {
+				want = append(want, api.Applied{Pass: api.PsFold, Rule: 2, Func: 3, Block: 5, Index: i - 1})
+			}
+		}
+		if !slices.Equal(r.List, want) {
+			t.Errorf("Most %d: %v", most, r.List)
 		}
 	}
 }
