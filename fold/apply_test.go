@@ -9,6 +9,7 @@ import (
 
 	"cupel/api"
 	"cupel/ir"
+	"cupel/samples"
 )
 
 // P13.1, rule 1: the operands of all instructions, in order, each time that they occur.
@@ -46,26 +47,26 @@ func TestBranches(t *testing.T) {
 	var rows []row
 	for _, v := range []int64{1, -1, 2, 1 << 32, math.MinInt64} {
 		rows = append(rows,
-			row{"not 0", "0 regs 0", fmt.Sprintf("b0: branch %d, b1, b2; ", v) + ends, "b0: jump b1; " + ends, "b0:jump"},
-			row{"a register that is not 0", "0 regs 1", fmt.Sprintf("b0: r0 = %d; branch r0, b1, b2; ", v) + ends, fmt.Sprintf("b0: r0 = %d; jump b1; ", v) + ends, "b0:end b0:jump"})
+			row{"not 0", "0 regs 0", fmt.Sprintf("b0: branch %d, b1, b2; ", v) + ends, "b0: jump b1; " + ends, "b0:end/2"},
+			row{"a register that is not 0", "0 regs 1", fmt.Sprintf("b0: r0 = %d; branch r0, b1, b2; ", v) + ends, fmt.Sprintf("b0: r0 = %d; jump b1; ", v) + ends, "b0:end b0:end/2"})
 	}
 	const join = "b2: r0 = phi b0: 4, b1: 5; r1 = phi b0: 6, b1: 7; print 1; return;"
 	expectSound(t, append(rows, []row{
-		{"0", "0 regs 0", "b0: branch 0, b1, b2; " + ends, "b0: jump b2; " + ends, "b0:jump"},
-		{"a register that is 0", "0 regs 1", "b0: r0 = 0; branch r0, b1, b2; " + ends, "b0: r0 = 0; jump b2; " + ends, "b0:end b0:jump"},
-		{"the other way about", "0 regs 0", "b0: branch 1, b2, b1; " + ends, "b0: jump b2; " + ends, "b0:jump"},
+		{"0", "0 regs 0", "b0: branch 0, b1, b2; " + ends, "b0: jump b2; " + ends, "b0:end/2"},
+		{"a register that is 0", "0 regs 1", "b0: r0 = 0; branch r0, b1, b2; " + ends, "b0: r0 = 0; jump b2; " + ends, "b0:end b0:end/2"},
+		{"the other way about", "0 regs 0", "b0: branch 1, b2, b1; " + ends, "b0: jump b2; " + ends, "b0:end/2"},
 		{"what varies", "1 regs 1", "b0: branch r0, b1, b2; " + ends, "b0: branch r0, b1, b2; " + ends, ""},
-		{"one block twice", "0 regs 1", "b0: branch 1, b1, b1; b1: r0 = phi b0: 3; return;", "b0: jump b1; b1: r0 = phi b0: 3; return;", "b0:jump"},
-		{"one block twice, by 0", "0 regs 2", "b0: r0 = 0; branch r0, b1, b1; b1: r1 = phi b0: r0; return;", "b0: r0 = 0; jump b1; b1: r1 = phi b0: 0; return;", "b0:end b0:jump b1:0"},
+		{"one block twice", "0 regs 1", "b0: branch 1, b1, b1; b1: r0 = phi b0: 3; return;", "b0: jump b1; b1: r0 = phi b0: 3; return;", "b0:end/2"},
+		{"one block twice, by 0", "0 regs 2", "b0: r0 = 0; branch r0, b1, b1; b1: r1 = phi b0: r0; return;", "b0: r0 = 0; jump b1; b1: r1 = phi b0: 0; return;", "b0:end b0:end/2 b1:0"},
 		{"one block twice, by what varies", "1 regs 2", "b0: branch r0, b1, b1; b1: r1 = phi b0: 3; print r1; return;", "b0: branch r0, b1, b1; b1: r1 = phi b0: 3; print 3; return;", "b1:1"},
-		{"phis of the block where it leads", "0 regs 2", "b0: branch 0, b1, b2; b1: jump b2; " + join, "b0: jump b2; b1: jump b2; " + join, "b0:jump"},
-		{"phis of the other one", "0 regs 2", "b0: branch 1, b1, b2; b1: jump b2; " + join, "b0: jump b1; b1: jump b2; b2: r0 = phi b1: 5; r1 = phi b1: 7; print 1; return;", "b0:jump"},
-		{"phis that have no other operand", "0 regs 2", "b0: branch 1, b2, b1; b1: r0 = phi b0: 4; r1 = phi b0: 6; print r1; return; b2: return;", "b0: jump b2; b1: r0 = phi; r1 = phi; print r1; return; b2: return;", "b0:jump"},
-		{"a loop that is left", "0 regs 2", "b0: jump b1; b1: r0 = phi b0: 4, b1: r1; r1 = sub r0, 4; branch r1, b1, b2; b2: print r1; return;", "b0: jump b1; b1: r0 = phi b0: 4; r1 = sub 4, 4; jump b2; b2: print 0; return;", "b1:1 b1:end b1:jump b2:0"},
-		{"a loop that is not left", "0 regs 3", "b0: jump b1; b1: r0 = phi b0: 4, b1: r1; r1 = or r0, 4; branch r1, b1, b2; b2: r2 = phi b1: r1; print r2; return;", "b0: jump b1; b1: r0 = phi b0: 4, b1: 4; r1 = or 4, 4; jump b1; b2: r2 = phi; print r2; return;", "b1:0 b1:1 b1:end b1:jump"},
-		{"blocks that are not executable", "0 regs 4", "b0: r0 = 1; branch r0, b1, b2; b1: return; b2: r1 = phi b0: r0, b3: 1; r2 = add r0, r0; print r1; branch 1, b3, b4; b3: r3 = phi b2: r0; branch r0, b2, b4; b4: return;", "b0: r0 = 1; jump b1; b1: return; b2: r1 = phi b3: 1; r2 = add r0, r0; print r1; branch 1, b3, b4; b3: r3 = phi b2: r0; branch r0, b2, b4; b4: return;", "b0:end b0:jump"},
+		{"phis of the block where it leads", "0 regs 2", "b0: branch 0, b1, b2; b1: jump b2; " + join, "b0: jump b2; b1: jump b2; " + join, "b0:end/2"},
+		{"phis of the other one", "0 regs 2", "b0: branch 1, b1, b2; b1: jump b2; " + join, "b0: jump b1; b1: jump b2; b2: r0 = phi b1: 5; r1 = phi b1: 7; print 1; return;", "b0:end/2"},
+		{"phis that have no other operand", "0 regs 2", "b0: branch 1, b2, b1; b1: r0 = phi b0: 4; r1 = phi b0: 6; print r1; return; b2: return;", "b0: jump b2; b1: r0 = phi; r1 = phi; print r1; return; b2: return;", "b0:end/2"},
+		{"a loop that is left", "0 regs 2", "b0: jump b1; b1: r0 = phi b0: 4, b1: r1; r1 = sub r0, 4; branch r1, b1, b2; b2: print r1; return;", "b0: jump b1; b1: r0 = phi b0: 4; r1 = sub 4, 4; jump b2; b2: print 0; return;", "b1:1 b1:end b1:end/2 b2:0"},
+		{"a loop that is not left", "0 regs 3", "b0: jump b1; b1: r0 = phi b0: 4, b1: r1; r1 = or r0, 4; branch r1, b1, b2; b2: r2 = phi b1: r1; print r2; return;", "b0: jump b1; b1: r0 = phi b0: 4, b1: 4; r1 = or 4, 4; jump b1; b2: r2 = phi; print r2; return;", "b1:0 b1:1 b1:end b1:end/2"},
+		{"blocks that are not executable", "0 regs 4", "b0: r0 = 1; branch r0, b1, b2; b1: return; b2: r1 = phi b0: r0, b3: 1; r2 = add r0, r0; print r1; branch 1, b3, b4; b3: r3 = phi b2: r0; branch r0, b2, b4; b4: return;", "b0: r0 = 1; jump b1; b1: return; b2: r1 = phi b3: 1; r2 = add r0, r0; print r1; branch 1, b3, b4; b3: r3 = phi b2: r0; branch r0, b2, b4; b4: return;", "b0:end b0:end/2"},
 		{"blocks that are not reached", "0 regs 1 result", "b0: return 1; b1: r0 = 1; branch r0, b1, b2; b2: return r0;", "b0: return 1; b1: r0 = 1; branch r0, b1, b2; b2: return r0;", ""},
-		{"what belongs to another edge of the block", "1 regs 3", "b0: r1 = 1; branch r0, b1, b2; b1: branch r1, b2, b3; b2: r2 = phi b0: r1, b1: r1; print r2; return; b3: return;", "b0: r1 = 1; branch r0, b1, b2; b1: jump b2; b2: r2 = phi b0: 1, b1: 1; print 1; return; b3: return;", "b1:end b1:jump b2:0 b2:0 b2:1"},
+		{"what belongs to another edge of the block", "1 regs 3", "b0: r1 = 1; branch r0, b1, b2; b1: branch r1, b2, b3; b2: r2 = phi b0: r1, b1: r1; print r2; return; b3: return;", "b0: r1 = 1; branch r0, b1, b2; b1: jump b2; b2: r2 = phi b0: 1, b1: 1; print 1; return; b3: return;", "b1:end b1:end/2 b2:0 b2:0 b2:1"},
 	}...))
 }
 
@@ -73,9 +74,9 @@ func TestBranches(t *testing.T) {
 func TestOrder(t *testing.T) {
 	expectSound(t, []row{
 		{"numbers of blocks", "0 regs 2", "b0: jump b2; b1: print r0; print r1; return; b2: r0 = 1; r1 = r0; jump b1;", "b0: jump b2; b1: print 1; print 1; return; b2: r0 = 1; r1 = 1; jump b1;", "b1:0 b1:1 b2:1"},
-		{"a phi before a branch that leaves it out", "0 regs 2", "b0: r0 = 0; jump b2; b1: r1 = phi b2: r0, b3: r0; print r1; return; b2: branch r0, b1, b3; b3: jump b1;", "b0: r0 = 0; jump b2; b1: r1 = phi b3: 0; print 0; return; b2: jump b3; b3: jump b1;", "b1:0 b1:1 b2:end b2:jump"},
-		{"a phi behind it", "0 regs 2", "b0: r0 = 0; branch r0, b3, b1; b1: jump b2; b2: jump b3; b3: r1 = phi b0: r0, b2: r0; print r1; return;", "b0: r0 = 0; jump b1; b1: jump b2; b2: jump b3; b3: r1 = phi b2: 0; print 0; return;", "b0:end b0:jump b3:0 b3:1"},
-		{"the example", "0 regs 3", "b0: r0 = 2; r1 = add r0, 3; branch r1, b1, b2; b1: print r1; return; b2: r2 = phi b0: r1; print r2; return;", "b0: r0 = 2; r1 = add 2, 3; jump b1; b1: print 5; return; b2: r2 = phi; print r2; return;", "b0:1 b0:end b0:jump b1:0"},
+		{"a phi before a branch that leaves it out", "0 regs 2", "b0: r0 = 0; jump b2; b1: r1 = phi b2: r0, b3: r0; print r1; return; b2: branch r0, b1, b3; b3: jump b1;", "b0: r0 = 0; jump b2; b1: r1 = phi b3: 0; print 0; return; b2: jump b3; b3: jump b1;", "b1:0 b1:1 b2:end b2:end/2"},
+		{"a phi behind it", "0 regs 2", "b0: r0 = 0; branch r0, b3, b1; b1: jump b2; b2: jump b3; b3: r1 = phi b0: r0, b2: r0; print r1; return;", "b0: r0 = 0; jump b1; b1: jump b2; b2: jump b3; b3: r1 = phi b2: 0; print 0; return;", "b0:end b0:end/2 b3:0 b3:1"},
+		{"the example", "0 regs 3", "b0: r0 = 2; r1 = add r0, 3; branch r1, b1, b2; b1: print r1; return; b2: r2 = phi b0: r1; print r2; return;", "b0: r0 = 2; r1 = add 2, 3; jump b1; b1: print 5; return; b2: r2 = phi; print r2; return;", "b0:1 b0:end b0:end/2 b1:0"},
 	})
 }
 
@@ -95,40 +96,40 @@ var steps = []string{
 
 // P13.1: the first so many applications.
 func TestMost(t *testing.T) {
-	const made = "b0:1 b0:1 b0:end b0:jump b1:0 b2:0 b2:1 b2:1 b2:2"
-	m := of(t, "0 regs 4", steps[0])
+	const made = "b0:1 b0:1 b0:end b0:end/2 b1:0 b2:0 b2:1 b2:1 b2:2"
+	m := samples.Of(t, "0 regs 4", steps[0])
 	for most := -1; most < 14; most++ {
 		count := most
 		if most < 0 || most > 9 {
 			count = 9
 		}
-		got, list := folded(t, m, 0, api.Limit{Most: most})
-		if want := of(t, "0 regs 4", steps[count]); !ir.Same(got, want) {
-			t.Errorf("Most %d: %s", most, text(got))
+		got, list := pass.Made(t, m, 0, api.Limit{Most: most})
+		if want := samples.Of(t, "0 regs 4", steps[count]); !ir.Same(got, want) {
+			t.Errorf("Most %d: %s", most, samples.Text(got))
 		}
-		if want := applied(t, 0, made)[:count]; !slices.Equal(list, want) {
+		if want := pass.Applied(0, made)[:count]; !slices.Equal(list, want) {
 			t.Errorf("Most %d: %v", most, list)
 		}
 	}
-	got, list := folded(t, m, 0, api.Limit{Most: math.MaxInt})
-	if !ir.Same(got, of(t, "0 regs 4", steps[9])) || len(list) != 9 {
-		t.Errorf("%v: %s", list, text(got))
+	got, list := pass.Made(t, m, 0, api.Limit{Most: math.MaxInt})
+	if !ir.Same(got, samples.Of(t, "0 regs 4", steps[9])) || len(list) != 9 {
+		t.Errorf("%v: %s", list, samples.Text(got))
 	}
 }
 
 // P13.1: a second function of a module; others stay as they are.
 func TestOtherFunctions(t *testing.T) {
 	const code = "main h; func f params 0 regs 2 { b0: r0 = 1; r1 = %s; branch %s; b1: return; b2: return; } func g params 0 regs 1 { b0: r0 = 1; print %s; return; } func h params 0 regs 1 { b0: r0 = 1; call f(); call g(); r0 = 1; return; }"
-	m := read(t, fmt.Sprintf(code, "r0", "r1, b1, b2", "r0"))
-	made, list := folded(t, m, 0, all())
-	if want := read(t, fmt.Sprintf(strings.Replace(code, "branch %s", "%s", 1), "1", "jump b1", "r0")); !ir.Same(made, want) || !slices.Equal(list, applied(t, 0, "b0:1 b0:end b0:jump")) {
-		t.Errorf("%v: %s", list, text(made))
+	m := samples.Read(t, fmt.Sprintf(code, "r0", "r1, b1, b2", "r0"))
+	made, list := pass.Made(t, m, 0, samples.All())
+	if want := samples.Read(t, fmt.Sprintf(strings.Replace(code, "branch %s", "%s", 1), "1", "jump b1", "r0")); !ir.Same(made, want) || !slices.Equal(list, pass.Applied(0, "b0:1 b0:end b0:end/2")) {
+		t.Errorf("%v: %s", list, samples.Text(made))
 	}
-	made, list = folded(t, m, 1, all())
-	if want := read(t, fmt.Sprintf(code, "r0", "r1, b1, b2", "1")); !ir.Same(made, want) || !slices.Equal(list, applied(t, 1, "b0:1")) {
-		t.Errorf("%v: %s", list, text(made))
+	made, list = pass.Made(t, m, 1, samples.All())
+	if want := samples.Read(t, fmt.Sprintf(code, "r0", "r1, b1, b2", "1")); !ir.Same(made, want) || !slices.Equal(list, pass.Applied(1, "b0:1")) {
+		t.Errorf("%v: %s", list, samples.Text(made))
 	}
-	fail(t, m, 2, all(), api.ErrDown)
+	pass.ExpectError(t, m, 2, samples.All(), api.ErrDown)
 }
 
 // P13.1: there is no greatest number of applications: 59 edges lead to a block with 100 phis.
@@ -154,5 +155,5 @@ func TestManyApplications(t *testing.T) {
 	for i := range phis {
 		made += strings.Repeat(fmt.Sprintf("b59:%d ", i), edges)
 	}
-	expect(t, all(), []row{{"phis", fmt.Sprintf("1 regs %d", 2+phis), body("r1"), body("7"), made}})
+	expect(t, samples.All(), []row{{"phis", fmt.Sprintf("1 regs %d", 2+phis), body("r1"), body("7"), made}})
 }

@@ -7,6 +7,7 @@ import (
 
 	"cupel/api"
 	"cupel/irsem"
+	"cupel/samples"
 )
 
 // P13.1: parameters vary, and so does what is loaded, got, or the result of a call; copies have the fact of their operand.
@@ -40,9 +41,9 @@ func TestOperations(t *testing.T) {
 					result, made = v, "b0:1 b0:2"
 				}
 				r := row{word, "0 regs 2", fmt.Sprintf(code, a, word, "r0", b, "r1"), fmt.Sprintf(code, a, word, a, b, result), made}
-				expect(t, all(), []row{r})
+				expect(t, samples.All(), []row{r})
 				if kind != api.IbLt-api.IbAdd || a != b {
-					expect(t, all(api.FtEqualLess), []row{r})
+					expect(t, samples.All(api.FtEqualLess), []row{r})
 				}
 			}
 		}
@@ -60,10 +61,10 @@ func TestMeets(t *testing.T) {
 		{"a constant and what varies", "1 regs 3 result", two + "b3: r2 = phi b1: r1, b2: r0; return r2;", two + "b3: r2 = phi b1: 4, b2: r0; return r2;", "b3:0"},
 		{"what varies and a constant", "1 regs 3 result", two + "b3: r2 = phi b1: r0, b2: r1; return r2;", two + "b3: r2 = phi b1: r0, b2: 4; return r2;", "b3:0"},
 		{"the same that varies", "1 regs 3 result", two + "b3: r2 = phi b1: r0, b2: r0; return r2;", two + "b3: r2 = phi b1: r0, b2: r0; return r2;", ""},
-		{"an edge that is not executable", "1 regs 3 result", "b0: r1 = 4; branch r1, b1, b2; b1: jump b3; b2: jump b3; b3: r2 = phi b1: r1, b2: r0; return r2;", "b0: r1 = 4; jump b1; b1: jump b3; b2: jump b3; b3: r2 = phi b1: 4, b2: r0; return 4;", "b0:end b0:jump b3:0 b3:end"},
+		{"an edge that is not executable", "1 regs 3 result", "b0: r1 = 4; branch r1, b1, b2; b1: jump b3; b2: jump b3; b3: r2 = phi b1: r1, b2: r0; return r2;", "b0: r1 = 4; jump b1; b1: jump b3; b2: jump b3; b3: r2 = phi b1: 4, b2: r0; return 4;", "b0:end b0:end/2 b3:0 b3:end"},
 		{"a block that is not reached", "1 regs 3 result", "b0: r1 = 4; jump b2; b1: jump b2; b2: r2 = phi b0: r1, b1: r0; return r2;", "b0: r1 = 4; jump b2; b1: jump b2; b2: r2 = phi b0: 4, b1: r0; return 4;", "b2:0 b2:end"},
 		{"an operand that is not executable stays", "0 regs 3 result", "b0: r1 = 4; jump b2; b1: r0 = 5; jump b2; b2: r2 = phi b0: r1, b1: r1; return r2;", "b0: r1 = 4; jump b2; b1: r0 = 5; jump b2; b2: r2 = phi b0: 4, b1: r1; return 4;", "b2:0 b2:end"},
-		{"what executable edges say of each other", "0 regs 3 result", "b0: r0 = 1; branch r0, b1, b2; b1: r1 = 2; jump b3; b2: jump b3; b3: r2 = phi b1: r1, b2: 3; return r2;", "b0: r0 = 1; jump b1; b1: r1 = 2; jump b3; b2: jump b3; b3: r2 = phi b1: 2, b2: 3; return 2;", "b0:end b0:jump b3:0 b3:end"},
+		{"what executable edges say of each other", "0 regs 3 result", "b0: r0 = 1; branch r0, b1, b2; b1: r1 = 2; jump b3; b2: jump b3; b3: r2 = phi b1: r1, b2: 3; return r2;", "b0: r0 = 1; jump b1; b1: r1 = 2; jump b3; b2: jump b3; b3: r2 = phi b1: 2, b2: 3; return 2;", "b0:end b0:end/2 b3:0 b3:end"},
 	})
 }
 
@@ -73,7 +74,7 @@ func TestLoops(t *testing.T) {
 		{"the example", "0 regs 1", "b0: jump b1; b1: r0 = phi b0: 1, b1: r0; print r0; jump b1;", "b0: jump b1; b1: r0 = phi b0: 1, b1: 1; print 1; jump b1;", "b1:0 b1:1"},
 		{"counting", "0 regs 2", "b0: jump b1; b1: r0 = phi b0: 0, b1: r1; r1 = add r0, 1; print r0; jump b1;", "b0: jump b1; b1: r0 = phi b0: 0, b1: r1; r1 = add r0, 1; print r0; jump b1;", ""},
 		{"an operation that changes nothing", "1 regs 3", "b0: jump b1; b1: r1 = phi b0: 6, b1: r2; r2 = or r1, 2; branch r0, b1, b2; b2: print r2; return;", "b0: jump b1; b1: r1 = phi b0: 6, b1: 6; r2 = or 6, 2; branch r0, b1, b2; b2: print 6; return;", "b1:0 b1:1 b2:0"},
-		{"a way that is never gone", "1 regs 3", "b0: jump b1; b1: r1 = phi b0: 1, b4: r2; branch r1, b2, b3; b2: jump b4; b3: jump b4; b4: r2 = phi b2: r1, b3: 2; branch r0, b1, b5; b5: print r2; return;", "b0: jump b1; b1: r1 = phi b0: 1, b4: 1; jump b2; b2: jump b4; b3: jump b4; b4: r2 = phi b2: 1, b3: 2; branch r0, b1, b5; b5: print 1; return;", "b1:0 b1:end b1:jump b4:0 b5:0"},
+		{"a way that is never gone", "1 regs 3", "b0: jump b1; b1: r1 = phi b0: 1, b4: r2; branch r1, b2, b3; b2: jump b4; b3: jump b4; b4: r2 = phi b2: r1, b3: 2; branch r0, b1, b5; b5: print r2; return;", "b0: jump b1; b1: r1 = phi b0: 1, b4: 1; jump b2; b2: jump b4; b3: jump b4; b4: r2 = phi b2: 1, b3: 2; branch r0, b1, b5; b5: print 1; return;", "b1:0 b1:end b1:end/2 b4:0 b5:0"},
 		{"a way that is gone later", "1 regs 4", "b0: jump b1; b1: r1 = phi b0: 1, b4: r3; branch r1, b2, b3; b2: jump b4; b3: jump b4; b4: r2 = phi b2: r1, b3: 2; r3 = sub r1, 1; branch r0, b1, b5; b5: print r2; return;", "b0: jump b1; b1: r1 = phi b0: 1, b4: r3; branch r1, b2, b3; b2: jump b4; b3: jump b4; b4: r2 = phi b2: r1, b3: 2; r3 = sub r1, 1; branch r0, b1, b5; b5: print r2; return;", ""},
 		{"two that exchange what is equal", "1 regs 3", "b0: jump b1; b1: r1 = phi b0: 3, b1: r2; r2 = phi b0: 3, b1: r1; branch r0, b1, b2; b2: print r1; return;", "b0: jump b1; b1: r1 = phi b0: 3, b1: 3; r2 = phi b0: 3, b1: 3; branch r0, b1, b2; b2: print 3; return;", "b1:0 b1:1 b2:0"},
 		{"two that exchange what is not", "1 regs 3", "b0: jump b1; b1: r1 = phi b0: 3, b1: r2; r2 = phi b0: 4, b1: r1; branch r0, b1, b2; b2: print r1; return;", "b0: jump b1; b1: r1 = phi b0: 3, b1: r2; r2 = phi b0: 4, b1: r1; branch r0, b1, b2; b2: print r1; return;", ""},
@@ -84,14 +85,14 @@ func TestLoops(t *testing.T) {
 func TestEqualLess(t *testing.T) {
 	rows := []row{
 		{"less", "0 regs 2", "b0: r0 = 3; r1 = lt r0, 3; print r1; return;", "b0: r0 = 3; r1 = lt 3, 3; print 1; return;", "b0:1 b0:2"},
-		{"of constants", "0 regs 1", "b0: r0 = lt 3, 3; branch r0, b1, b2; b1: return; b2: return;", "b0: r0 = lt 3, 3; jump b1; b1: return; b2: return;", "b0:end b0:jump"},
+		{"of constants", "0 regs 1", "b0: r0 = lt 3, 3; branch r0, b1, b2; b1: return; b2: return;", "b0: r0 = lt 3, 3; jump b1; b1: return; b2: return;", "b0:end b0:end/2"},
 		{"truly less", "0 regs 2", "b0: r0 = lt 2, 3; r1 = lt 3, 2; print r0; print r1; return;", "b0: r0 = lt 2, 3; r1 = lt 3, 2; print 1; print 0; return;", "b0:2 b0:3"},
 		{"of what varies", "1 regs 2", "b0: r1 = lt r0, r0; print r1; return;", "b0: r1 = lt r0, r0; print r1; return;", ""},
 		{"others", "0 regs 3", "b0: r0 = ne 3, 3; r1 = le 3, 3; r2 = eq 3, 3; print r0; print r1; print r2; return;", "b0: r0 = ne 3, 3; r1 = le 3, 3; r2 = eq 3, 3; print 0; print 1; print 1; return;", "b0:3 b0:4 b0:5"},
 	}
-	expect(t, all(api.FtEqualLess), rows)
-	expect(t, all(api.FtUndefined, api.FtEqualLess, api.FtFirstOnly, api.MaxFaults), rows)
-	expectSound(t, []row{{"no fault", "0 regs 1", "b0: r0 = lt 3, 3; branch r0, b1, b2; b1: return; b2: return;", "b0: r0 = lt 3, 3; jump b2; b1: return; b2: return;", "b0:end b0:jump"}})
+	expect(t, samples.All(api.FtEqualLess), rows)
+	expect(t, samples.All(api.FtUndefined, api.FtEqualLess, api.FtFirstOnly, api.MaxFaults), rows)
+	expectSound(t, []row{{"no fault", "0 regs 1", "b0: r0 = lt 3, 3; branch r0, b1, b2; b1: return; b2: return;", "b0: r0 = lt 3, 3; jump b2; b1: return; b2: return;", "b0:end b0:end/2"}})
 }
 
 // P13.1: with a fault, a phi has the fact of the first one of its Args.
@@ -103,17 +104,17 @@ func TestFirstOnly(t *testing.T) {
 		{"what varies and a constant", "1 regs 3", two + "b3: r2 = phi b1: r0, b2: 4; print r2; return;", two + "b3: r2 = phi b1: r0, b2: 4; print r2; return;", ""},
 		{"counting", "0 regs 2", "b0: jump b1; b1: r0 = phi b0: 0, b1: r1; r1 = add r0, 1; print r1; jump b1;", "b0: jump b1; b1: r0 = phi b0: 0, b1: 1; r1 = add 0, 1; print 1; jump b1;", "b1:0 b1:1 b1:2"},
 		// The first one belongs to an edge that is not executable.
-		{"a way that is never gone", "1 regs 3", "b0: r1 = 0; branch r1, b1, b2; b1: jump b3; b2: jump b3; b3: r2 = phi b1: 6, b2: r1; print r2; return;", "b0: r1 = 0; jump b2; b1: jump b3; b2: jump b3; b3: r2 = phi b1: 6, b2: 0; print 6; return;", "b0:end b0:jump b3:0 b3:1"},
-		{"what varies there", "1 regs 3", "b0: r1 = 0; branch r1, b1, b2; b1: jump b3; b2: jump b3; b3: r2 = phi b1: r0, b2: r1; print r2; return;", "b0: r1 = 0; jump b2; b1: jump b3; b2: jump b3; b3: r2 = phi b1: r0, b2: 0; print r2; return;", "b0:end b0:jump b3:0"},
-		{"an edge that is left out", "0 regs 2", "b0: branch 1, b1, b2; b1: jump b2; b2: r0 = phi b0: 5, b1: 6; print r0; return;", "b0: jump b1; b1: jump b2; b2: r0 = phi b1: 6; print 5; return;", "b0:jump b2:1"},
+		{"a way that is never gone", "1 regs 3", "b0: r1 = 0; branch r1, b1, b2; b1: jump b3; b2: jump b3; b3: r2 = phi b1: 6, b2: r1; print r2; return;", "b0: r1 = 0; jump b2; b1: jump b3; b2: jump b3; b3: r2 = phi b1: 6, b2: 0; print 6; return;", "b0:end b0:end/2 b3:0 b3:1"},
+		{"what varies there", "1 regs 3", "b0: r1 = 0; branch r1, b1, b2; b1: jump b3; b2: jump b3; b3: r2 = phi b1: r0, b2: r1; print r2; return;", "b0: r1 = 0; jump b2; b1: jump b3; b2: jump b3; b3: r2 = phi b1: r0, b2: 0; print r2; return;", "b0:end b0:end/2 b3:0"},
+		{"an edge that is left out", "0 regs 2", "b0: branch 1, b1, b2; b1: jump b2; b2: r0 = phi b0: 5, b1: 6; print r0; return;", "b0: jump b1; b1: jump b2; b2: r0 = phi b1: 6; print 5; return;", "b0:end/2 b2:1"},
 		// Of the first one nothing is known: so it stays with what reads the phi, and with the blocks behind a branch by it.
 		{"what is not defined", "0 regs 4", "b0: r0 = 2; jump b2; b1: jump b2; b2: r1 = phi b0: r0, b1: 3; jump b4; b3: jump b4; b4: r2 = phi b2: r0, b3: r3; print r1; return;", "b0: r0 = 2; jump b2; b1: jump b2; b2: r1 = phi b0: 2, b1: 3; jump b4; b3: jump b4; b4: r2 = phi b2: 2, b3: r3; print 2; return;", "b2:0 b4:0 b4:1"},
 		{"a branch by what is not defined", "0 regs 4", "b0: r0 = 2; jump b2; b1: jump b3; b2: jump b3; b3: r1 = phi b1: r3, b2: r0; r2 = add r1, r0; print r2; branch r1, b4, b5; b4: print r0; return; b5: print r0; return;", "b0: r0 = 2; jump b2; b1: jump b3; b2: jump b3; b3: r1 = phi b1: r3, b2: 2; r2 = add r1, 2; print r2; branch r1, b4, b5; b4: print r0; return; b5: print r0; return;", "b3:0 b3:1"},
 		{"what is defined by it alone", "0 regs 3", "b0: r0 = 2; jump b2; b1: jump b3; b2: jump b3; b3: r1 = phi b1: r2, b2: r0; r2 = add r1, 1; print r2; return;", "b0: r0 = 2; jump b2; b1: jump b3; b2: jump b3; b3: r1 = phi b1: r2, b2: 2; r2 = add r1, 1; print r2; return;", "b3:0"},
 		{"what varies with it", "1 regs 4", "b0: r1 = 2; jump b2; b1: jump b3; b2: jump b3; b3: r2 = phi b1: r3, b2: r1; r3 = add r2, r0; branch r3, b4, b5; b4: print r1; return; b5: return;", "b0: r1 = 2; jump b2; b1: jump b3; b2: jump b3; b3: r2 = phi b1: r3, b2: 2; r3 = add r2, r0; branch r3, b4, b5; b4: print 2; return; b5: return;", "b3:0 b4:0"},
 	}
-	expect(t, all(api.FtFirstOnly), rows)
-	expect(t, all(1, 2, api.FtFirstOnly, 5, 24), rows)
+	expect(t, samples.All(api.FtFirstOnly), rows)
+	expect(t, samples.All(1, 2, api.FtFirstOnly, 5, 24), rows)
 }
 
 // P13.1: faults of other layers do not matter.
@@ -122,7 +123,7 @@ func TestOtherFaults(t *testing.T) {
 		if fault == 0 || fault == api.FtEqualLess || fault == api.FtFirstOnly {
 			continue
 		}
-		expect(t, all(fault), []row{
+		expect(t, samples.All(fault), []row{
 			{"less", "0 regs 1", "b0: r0 = lt 3, 3; print r0; return;", "b0: r0 = lt 3, 3; print 0; return;", "b0:1"},
 			{"a phi", "1 regs 2", "b0: branch r0, b1, b2; b1: jump b2; b2: r1 = phi b0: 1, b1: 2; print r1; return;", "b0: branch r0, b1, b2; b1: jump b2; b2: r1 = phi b0: 1, b1: 2; print r1; return;", ""},
 			{"a division", "1 regs 2", "b0: r1 = div 4, 0; print r1; return;", "b0: r1 = div 4, 0; print r1; return;", ""},

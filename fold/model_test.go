@@ -149,7 +149,7 @@ func led(t api.Term, v int64) int {
 }
 
 // modelRun makes so many applications.
-func modelRun(m api.Module, k int, x api.Limit) (api.Module, []api.Applied) {
+func modelRun(m api.Module, k int, x api.Limit) (api.Module, []api.Applied, api.Errno) {
 	m = parts.Copy(m)
 	d := newModel(m.Funcs[k], x.Faults)
 	var list []api.Applied
@@ -162,7 +162,7 @@ func modelRun(m api.Module, k int, x api.Limit) (api.Module, []api.Applied) {
 		list = append(list, a)
 	}
 	m.Funcs[k] = d.f
-	return m, list
+	return m, list, api.OK
 }
 
 // operands returns the operands of an instruction, but for those of phis that belong to edges that are not executable.

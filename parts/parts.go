@@ -19,6 +19,18 @@ func Arguments(m api.Module, k int, x api.Limit) api.Errno {
 	return api.OK
 }
 
+// Start returns a copy of a module for a pass to change, or the error of its arguments, or that of the check which the function has to pass.
+func Start(m api.Module, k int, x api.Limit, check func(m api.Module, k int) api.Errno) (api.Module, api.Errno) {
+	e := Arguments(m, k, x)
+	if e == api.OK {
+		e = check(m, k)
+	}
+	if e != api.OK {
+		return api.Module{}, e
+	}
+	return Copy(m), api.OK
+}
+
 // IsLimit reports whether a limit is right.
 func IsLimit(x api.Limit) bool { return x.Most >= -1 && AreFaults(x.Faults) }
 
@@ -48,6 +60,17 @@ func (r *Record) Add(rule, block, index int) bool {
 	r.List = append(r.List, api.Applied{Pass: r.Pass, Rule: rule, Func: r.Func, Block: block, Index: index})
 	return true
 }
+
+// Bounded returns a record for a pass that may make MaxApply applications: there is room for one more, which IsLong reports.
+func Bounded(pass, k, most int) Record {
+	if most < 0 || most > api.MaxApply {
+		most = api.MaxApply + 1
+	}
+	return Record{Pass: pass, Func: k, Most: most}
+}
+
+// IsLong reports whether there are more than MaxApply applications.
+func (r Record) IsLong() bool { return len(r.List) > api.MaxApply }
 
 // Copy returns the same module in new memory.
 func Copy(m api.Module) api.Module {

@@ -2,6 +2,7 @@ package parts_test
 
 import (
 	"fmt"
+	"math"
 	"slices"
 	"testing"
 
@@ -83,6 +84,56 @@ func TestRecord(t *testing.T) {
 		if !slices.Equal(r.List, want) {
 			t.Errorf("Most %d: %v", most, r.List)
 		}
+	}
+}
+
+// Start asks the arguments first, then the check, and copies the module.
+func TestStart(t *testing.T) {
+	m := read(t, code)
+	check := func(e api.Errno) func(api.Module, int) api.Errno {
+		return func(asked api.Module, k int) api.Errno {
+			if k != 1 || !ir.Same(asked, m) {
+				t.Errorf("asked for %d of %v", k, asked)
+			}
+			return e
+		}
+	}
+	c, e := parts.Start(m, 1, api.Limit{}, check(api.OK))
+	if e != api.OK || !ir.Same(c, m) {
+		t.Errorf("error %d: %v", e, c)
+	}
+	c.Funcs[1].Name = "h"
+	if !ir.Same(m, read(t, code)) {
+		t.Errorf("%v", m)
+	}
+	if c, e := parts.Start(m, 1, api.Limit{}, check(api.ErrDown)); e != api.ErrDown || len(c.Funcs) > 0 {
+		t.Errorf("error %d: %v", e, c)
+	}
+	if c, e := parts.Start(m, 2, api.Limit{}, check(api.ErrDown)); e != api.ErrArg || len(c.Funcs) > 0 {
+		t.Errorf("error %d: %v", e, c)
+	}
+}
+
+// A bounded record has room for one application more than there may be.
+func TestBounded(t *testing.T) {
+	for _, c := range []struct {
+		most, count int
+		long        bool
+	}{{-1, 4001, true}, {0, 0, false}, {7, 7, false}, {4000, 4000, false}, {4001, 4001, true}, {math.MaxInt, 4001, true}} {
+		r, count := parts.Bounded(api.PsPeep, 3, c.most), 0
+		for count < 5000 && r.Add(2, 1, count) {
+			count++
+		}
+		if count != c.count || r.IsLong() != c.long || len(r.List) != count || count > 0 && r.List[0] != (api.Applied{Pass: api.PsPeep, Rule: 2, Func: 3, Block: 1}) {
+			t.Errorf("Most %d: %d applications, long: %v", c.most, count, r.IsLong())
+		}
+	}
+	r := parts.Bounded(api.PsPeep, 0, -1)
+	for range 4000 {
+		r.Add(1, 0, 0)
+	}
+	if r.IsLong() {
+		t.Error("4000 applications are too many")
 	}
 }
 

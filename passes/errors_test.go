@@ -1,0 +1,167 @@
+package passes
+
+import (
+	"math"
+	"reflect"
+	"slices"
+	"testing"
+
+	"cupel/api"
+	"cupel/ir"
+	"cupel/samples"
+	"cupel/ssa"
+)
+
+func wrongLimits() []api.Limit {
+	list := []api.Limit{{Most: -2}, {Most: math.MinInt}, {Most: -2, Faults: []int{1}}}
+	for _, faults := range [][]int{{0}, {-1}, {25}, {math.MinInt}, {math.MaxInt}, {1, 1}, {2, 1}, {0, 1}, {1, 2, 25}, {3, 4, 4}, {4, 3}, {24, 24}, make([]int, 30)} {
+		list = append(list, api.Limit{Most: -1, Faults: faults}, api.Limit{Faults: faults})
+	}
+	return list
+}
+
+// P13.1, P14.1: limits that are not right.
+func TestWrongLimits(t *testing.T) {
+	each(t, func(t *testing.T, p subject) {
+		m := samples.Read(t, many)
+		for k := -1; k <= len(m.Funcs); k++ {
+			for _, x := range wrongLimits() {
+				p.ExpectError(t, m, k, x, api.ErrArg)
+			}
+		}
+	})
+}
+
+// P13.1, P14.1: limits that are right: faults of other layers do not matter, and the first applications are made.
+func TestLimits(t *testing.T) {
+	each(t, func(t *testing.T, p subject) {
+		m := samples.Read(t, many)
+		var faults, own []int
+		for fault := range api.MaxFaults + 1 {
+			if slices.Contains(p.Faults, fault) {
+				own = append(own, fault)
+			}
+			if fault > 0 {
+				faults = append(faults, fault)
+			}
+			for k := 1; k < len(m.Funcs); k++ {
+				all := p.ask(m, k, samples.All(own...))
+				for _, most := range []int{-1, 0, 1, 2, 3, math.MaxInt} {
+					got, list := p.Made(t, m, k, api.Limit{Most: most, Faults: faults})
+					count := len(all.list)
+					if most >= 0 {
+						count = min(most, count)
+					}
+					if !slices.Equal(list, all.list[:count]) || count == len(all.list) && !ir.Same(got, all.m) || most == 0 && !ir.Same(got, m) {
+						t.Errorf("%d, Most %d, faults %v: %v\n%s", k, most, faults, list, samples.Text(got))
+					}
+				}
+			}
+		}
+	})
+}
+
+// P13.1, P14.1: the error of ir.Check comes first, then that of the arguments, then that of the form, whatever Most is.
+func TestOrderOfErrors(t *testing.T) {
+	wrong := []struct {
+		change func(m *api.Module)
+		want   api.Errno
+	}{
+		{func(m *api.Module) { m.Main = 9 }, api.ErrArg},
+		{func(m *api.Module) { m.Funcs = nil }, api.ErrArg},
+		{func(m *api.Module) { m.Funcs[3].Regs = 301 }, api.ErrLong},
+		{func(m *api.Module) { m.Funcs[1].Name = "m" }, api.ErrArg},
+		{func(m *api.Module) { m.Funcs[2].Blocks[1].Code[0].From[1] = 3 }, api.ErrArg},
+		{func(m *api.Module) { m.Cells = make([]api.Cell, 41) }, api.ErrLong},
+	}
+	each(t, func(t *testing.T, p subject) {
+		both := append(p.limits(), wrongLimits()...)
+		for _, c := range wrong {
+			m := samples.Read(t, many)
+			c.change(&m)
+			for k := -1; k < 5; k++ {
+				for _, x := range both {
+					p.ExpectError(t, m, k, x, c.want)
+				}
+			}
+		}
+		m := samples.Read(t, many)
+		for _, x := range both {
+			for _, k := range []int{-1, 4, math.MinInt, math.MaxInt} {
+				p.ExpectError(t, m, k, x, api.ErrArg)
+			}
+		}
+		for _, x := range p.limits() {
+			p.ExpectError(t, m, 0, x, api.ErrDown)
+		}
+		p.ExpectError(t, api.Module{}, 0, samples.All(), api.ErrArg)
+	})
+}
+
+// P13.1, P14.1: functions that are not in static single assignment form.
+func TestForm(t *testing.T) {
+	each(t, func(t *testing.T, p subject) {
+		for _, body := range []string{
+			"b0: r1 = 1; r1 = 1; return;",
+			"b0: r0 = 1; return;",
+			"b0: print r1; r1 = 2; return;",
+			"b0: branch r0, b1, b2; b1: r1 = 1; jump b2; b2: print r1; return;",
+			"b0: jump b1; b1: r1 = phi b0: r1; return;",
+			"b0: return; b1: r1 = 1; r1 = 2; return;",
+		} {
+			for _, x := range p.limits() {
+				p.ExpectError(t, samples.Of(t, "1 regs 2", body), 0, x, api.ErrDown)
+			}
+		}
+		for _, body := range []string{"b0: return; b1: print r1; return;", "b0: jump b1; b1: r1 = phi b0: 3, b2: r1; return; b2: jump b1;"} {
+			p.Made(t, samples.Of(t, "1 regs 2", body), 0, samples.All())
+		}
+	})
+}
+
+// change sets one number or truth value of a module to something else.
+func change(m *api.Module, dice *samples.Dice, value int64) {
+	var leaves []reflect.Value
+	visit(reflect.ValueOf(m), func(v reflect.Value) {
+		if v.CanInt() || v.Kind() == reflect.Bool {
+			leaves = append(leaves, v)
+		}
+	})
+	if v := leaves[dice.IntN(len(leaves))]; v.Kind() == reflect.Bool {
+		v.SetBool(!v.Bool())
+	} else {
+		v.SetInt(value)
+	}
+}
+
+// P13.4, P14.4, R1: passes return for modules in which anything was changed, valid or not, and any other arguments.
+func TestAllReturn(t *testing.T) {
+	values := []int64{math.MinInt, -2, -1, 0, 1, 2, 3, 4, 5, 9, 14, 15, 16, 300, 301, math.MaxInt}
+	each(t, func(t *testing.T, p subject) {
+		dice := samples.NewDice(6)
+		seen := map[api.Errno]int{}
+		for seed := range uint64(2500) {
+			m := samples.Function(t, seed, 1+int(seed%14))
+			change(&m, dice, values[dice.IntN(len(values))])
+			k, x := 0, p.limits()[dice.IntN(len(p.limits()))]
+			if dice.IntN(4) == 0 {
+				k = int(values[dice.IntN(len(values))])
+			}
+			e := ir.Check(m)
+			if e == api.OK && (k < 0 || k >= len(m.Funcs)) {
+				e = api.ErrArg
+			}
+			if e == api.OK {
+				e = ssa.Check(m, k)
+			}
+			if seen[e]++; e == api.OK {
+				p.Made(t, m, k, x)
+			} else {
+				p.ExpectError(t, m, k, x, e)
+			}
+		}
+		if seen[api.OK] < 200 || seen[api.ErrArg] < 1000 || seen[api.ErrDown] < 50 || seen[api.ErrLong] < 1 {
+			t.Errorf("errors: %v", seen)
+		}
+	})
+}

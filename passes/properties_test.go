@@ -1,0 +1,81 @@
+package passes
+
+import (
+	"testing"
+
+	"cupel/api"
+	"cupel/ir"
+	"cupel/samples"
+)
+
+// P13.2, P14.2: runs stay the same with each number of applications. (Made looks for static single assignment form.)
+func TestRunsStay(t *testing.T) {
+	each(t, func(t *testing.T, p subject) {
+		printed, cut := 0, 0
+		samples.Functions(t, 500, 14, func(m api.Module) {
+			_, list := p.Made(t, m, 0, samples.All())
+			for most := range len(list) + 1 {
+				made, _ := p.Made(t, m, 0, api.Limit{Most: most})
+				samples.ExpectKept(t, m, made)
+			}
+			b := samples.Run(t, m, 700)
+			printed += len(b.Out)
+			if b.End == api.EnSteps {
+				cut++
+			}
+		})
+		if printed < 4000 || cut < 60 || cut > 400 {
+			t.Errorf("%d numbers printed, %d runs cut short", printed, cut)
+		}
+	})
+}
+
+// P13.2, P13.3, P14.2, P14.3: all functions of a module, one after the other, and again.
+func TestAllFunctions(t *testing.T) {
+	each(t, func(t *testing.T, p subject) {
+		count := 0
+		look := func(m api.Module) {
+			start := m
+			for k := range m.Funcs {
+				made, list := p.Made(t, m, k, samples.All())
+				p.expectNoMore(t, made, k)
+				m = made
+				count += len(list)
+			}
+			samples.ExpectKept(t, start, m)
+			for k := range m.Funcs {
+				p.expectNoMore(t, m, k)
+			}
+		}
+		samples.Functions(t, 600, 60, look)
+		samples.Programs(200, look)
+		if count < 10000 {
+			t.Errorf("%d applications", count)
+		}
+	})
+}
+
+// expectNoMore wants a pass to leave a module as it is.
+func (p subject) expectNoMore(t *testing.T, m api.Module, k int) {
+	t.Helper()
+	if made, list := p.Made(t, m, k, samples.All()); len(list) > 0 || !ir.Same(made, m) {
+		t.Fatalf("%s\nRun of %d again: %v\n%s", samples.Text(m), k, list, samples.Text(made))
+	}
+}
+
+// P13.2, P14.2: with each fault, some functions do something else.
+func TestFaultsDiffer(t *testing.T) {
+	each(t, func(t *testing.T, p subject) {
+		for _, fault := range p.Faults {
+			differ := 0
+			samples.Functions(t, 1500, 14, func(m api.Module) {
+				if made, _, e := p.Run(m, 0, samples.All(fault)); e != api.OK || !samples.IsKept(t, m, made) {
+					differ++
+				}
+			})
+			if differ < 4 || differ > 500 {
+				t.Errorf("fault %d: %d modules", fault, differ)
+			}
+		}
+	})
+}

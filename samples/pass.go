@@ -1,0 +1,149 @@
+package samples
+
+import (
+	"slices"
+	"strconv"
+	"strings"
+
+	"cupel/api"
+	"cupel/ir"
+	"cupel/ssa"
+)
+
+// Work is what a pass does to a function of a module.
+type Work func(m api.Module, k int, x api.Limit) (api.Module, []api.Applied, api.Errno)
+
+// Pass is a pass on functions in static single assignment form, with its number, the faults that it looks at, and what it has to do by another account, if there is one.
+type Pass struct {
+	Number int
+	Run    Work
+	Faults []int
+	Model  Work
+}
+
+// FaultLists returns all lists of faults of a pass, the one without any first.
+func (p Pass) FaultLists() [][]int {
+	all := [][]int{nil}
+	for _, fault := range p.Faults {
+		for _, list := range all {
+			all = append(all, append(slices.Clone(list), fault))
+		}
+	}
+	return all
+}
+
+// Made returns what a pass makes of a function, and its applications; the module has to be valid, and the function in static single assignment form.
+func (p Pass) Made(t T, m api.Module, k int, x api.Limit) (api.Module, []api.Applied) {
+	t.Helper()
+	made, list, e := p.Run(m, k, x)
+	if e != api.OK {
+		t.Fatalf("%s\nRun of %d, %v: error %d", Text(m), k, x, e)
+	}
+	if e := ssa.Check(made, k); e != api.OK {
+		t.Fatalf("%s\nRun of %d, %v: error %d of\n%+v", Text(m), k, x, e, made)
+	}
+	return made, list
+}
+
+// ExpectError wants an error of a pass, and nothing besides.
+func (p Pass) ExpectError(t T, m api.Module, k int, x api.Limit, want api.Errno) {
+	t.Helper()
+	made, list, e := p.Run(m, k, x)
+	if e != want || len(list) > 0 || !ir.Same(made, api.Module{}) {
+		t.Errorf("%.2000s\nRun of %d, %v: applications %v, error %d, want %d", Text(m), k, x, list, e, want)
+	}
+}
+
+// Row is a function before and after all applications, and these.
+type Row struct{ What, Head, Before, After, Made string }
+
+// Expect wants what a row says of the function 0 of Of.
+func (p Pass) Expect(t T, x api.Limit, r Row) {
+	t.Helper()
+	made, list := p.Made(t, Of(t, r.Head, r.Before), 0, x)
+	if want := Of(t, r.Head, r.After); !ir.Same(made, want) {
+		t.Errorf("%s: Run of %s\nis %s", r.What, r.Before, Text(made))
+	}
+	if want := p.Applied(0, r.Made); !slices.Equal(list, want) {
+		t.Errorf("%s: Run of %s\napplications %v, want %v", r.What, r.Before, list, want)
+	}
+}
+
+// ExpectSound wants what Expect does without faults, and runs to stay the same.
+func (p Pass) ExpectSound(t T, r Row) {
+	t.Helper()
+	p.Expect(t, All(), r)
+	ExpectKept(t, Of(t, r.Head, r.Before), Of(t, r.Head, r.After))
+}
+
+// Applied reads a list of applications for a function: b1:2/3 is that of the rule 3 at the instruction 2 of the block 1, b1:end that of the rule 1 at its end.
+func (p Pass) Applied(k int, words string) []api.Applied {
+	var list []api.Applied
+	for _, word := range strings.Fields(words) {
+		site, rule, _ := strings.Cut(word, "/")
+		block, index, _ := strings.Cut(site[1:], ":")
+		list = append(list, api.Applied{Pass: p.Number, Rule: number(rule, 1), Func: k, Block: number(block, 0), Index: number(index, -1)})
+	}
+	return list
+}
+
+// number reads a number, or returns another one where there is none.
+func number(text string, otherwise int) int {
+	if n, wrong := strconv.Atoi(text); wrong == nil {
+		return n
+	}
+	return otherwise
+}
+
+// ExpectModel wants of a pass what the model says, and returns it.
+func (p Pass) ExpectModel(t T, m api.Module, k int, x api.Limit) (api.Module, []api.Applied) {
+	t.Helper()
+	got, list := p.Made(t, m, k, x)
+	want, wantList, _ := p.Model(m, k, x)
+	if !ir.Same(got, want) || !slices.Equal(list, wantList) {
+		t.Fatalf("%s\nRun of %d, %v: is\n%s\n%v\nwant\n%s\n%v", Text(m), k, x, Text(got), list, Text(want), wantList)
+	}
+	return got, list
+}
+
+// Count says how often rules were applied, and by which lists of faults how many functions became different.
+type Count struct{ Rules, Changed map[int]int }
+
+// ExpectModelOf wants of functions what the model says, for each list of faults, and for one of them with each number of applications.
+func (p Pass) ExpectModelOf(t T, count, blocks int) Count {
+	t.Helper()
+	c, turn := Count{map[int]int{}, map[int]int{}}, 0
+	Functions(t, count, blocks, func(m api.Module) {
+		plain, _ := p.ExpectModel(t, m, 0, All())
+		lists := p.FaultLists()
+		for i, faults := range lists {
+			made, list := p.ExpectModel(t, m, 0, All(faults...))
+			for _, a := range list {
+				c.Rules[a.Rule]++
+			}
+			if !ir.Same(made, plain) {
+				c.Changed[i]++
+			}
+			for most := 0; i == turn%len(lists) && most < len(list)+2; most++ {
+				p.ExpectModel(t, m, 0, api.Limit{Most: most, Faults: faults})
+			}
+		}
+		turn++
+	})
+	return c
+}
+
+// ExpectModelOfPrograms wants what the model says of the functions of generated programs, and returns how many applications there were.
+func (p Pass) ExpectModelOfPrograms(t T, count int) int {
+	t.Helper()
+	all := 0
+	Programs(count, func(m api.Module) {
+		for k := range m.Funcs {
+			for _, faults := range p.FaultLists() {
+				_, list := p.ExpectModel(t, m, k, All(faults...))
+				all += len(list)
+			}
+		}
+	})
+	return all
+}

@@ -1,0 +1,164 @@
+package samples_test
+
+import (
+	"fmt"
+	"slices"
+	"strings"
+	"testing"
+
+	"cupel/api"
+	"cupel/flow"
+	"cupel/fold"
+	"cupel/ir"
+	"cupel/parts"
+	"cupel/samples"
+)
+
+// witness keeps what a test is told.
+type witness struct{ told []string }
+
+func (w *witness) Helper() {}
+
+func (w *witness) Errorf(format string, args ...any) {
+	w.told = append(w.told, fmt.Sprintf(format, args...))
+}
+
+func (w *witness) Fatalf(format string, args ...any) {
+	w.Errorf(format, args...)
+	panic(w)
+}
+
+// told returns what a test is told by a function.
+func told(f func(t samples.T)) (list []string) {
+	var w witness
+	defer func() {
+		if recover() != nil {
+			list = w.told
+		}
+	}()
+	f(&w)
+	return w.told
+}
+
+// Functions are the same for the same seed, different for others, and have all that there is: instructions, ends, loops, blocks that are not reached.
+func TestFunctions(t *testing.T) {
+	ops, kinds, ends := map[int]int{}, map[int]int{}, map[int]int{}
+	loops, lost, turn := 0, 0, uint64(0)
+	var last api.Module
+	samples.Functions(t, 300, 20, func(m api.Module) {
+		f := m.Funcs[0]
+		if want := 1 + int(turn%20); len(f.Blocks) != want {
+			t.Fatalf("%d blocks, want %d", len(f.Blocks), want)
+		}
+		if !ir.Same(m, samples.Function(t, turn, len(f.Blocks))) || ir.Same(m, last) {
+			t.Fatalf("seed %d: %s", turn, samples.Text(m))
+		}
+		turn, last = turn+1, m
+		for _, block := range f.Blocks {
+			ends[block.End.Op]++
+			for _, x := range block.Code {
+				ops[x.Op]++
+				kinds[x.Kind]++
+			}
+		}
+		list, _ := flow.Loops(m, 0)
+		g, _ := flow.Make(m, 0)
+		loops, lost = loops+len(list), lost+len(f.Blocks)-len(g.Order)
+	})
+	for op := api.IxCopy; op <= api.IxPhi; op++ {
+		if ops[op] < 100 {
+			t.Errorf("instructions: %v", ops)
+		}
+	}
+	for kind := api.IbAdd; kind <= api.IbLe; kind++ {
+		if kinds[kind] < 50 {
+			t.Errorf("operations: %v", kinds)
+		}
+	}
+	for end := api.TmJump; end <= api.TmTrap; end++ {
+		if ends[end] < 20 {
+			t.Errorf("ends: %v", ends)
+		}
+	}
+	if loops < 100 || lost < 100 {
+		t.Errorf("%d loops, %d blocks that are not reached", loops, lost)
+	}
+}
+
+func TestPrograms(t *testing.T) {
+	count, phis := 0, 0
+	samples.Programs(40, func(m api.Module) {
+		count++
+		for _, f := range m.Funcs {
+			for _, block := range f.Blocks {
+				phis += parts.Phis(block)
+			}
+		}
+	})
+	if count < 30 || phis < 100 {
+		t.Errorf("%d programs, %d phis", count, phis)
+	}
+}
+
+const (
+	before = "b0: r0 = 2; r1 = add r0, 1; print r1; return;"
+	after  = "b0: r0 = 2; r1 = add 2, 1; print 3; return;"
+	head   = "0 regs 2"
+)
+
+// A pass is compared with what it has to make, and applications with theirs.
+func TestPass(t *testing.T) {
+	p := samples.Pass{Number: api.PsFold, Run: fold.Run, Faults: []int{api.FtEqualLess, api.FtFirstOnly}, Model: fold.Run}
+	row := samples.Row{What: "a row", Head: head, Before: before, After: after, Made: "b0:1 b0:2"}
+	m := samples.Of(t, head, before)
+	wrongText, wrongList := row, row
+	wrongText.After, wrongList.Made = before, "b0:1 b0:2/2"
+	for _, c := range []struct {
+		what string
+		ask  func(t samples.T)
+		want int // how many things are wrong
+	}{
+		{"a row", func(t samples.T) { p.ExpectSound(t, row) }, 0},
+		{"another function", func(t samples.T) { p.ExpectSound(t, wrongText) }, 1},
+		{"other applications", func(t samples.T) { p.Expect(t, samples.All(), wrongList) }, 1},
+		{"an error", func(t samples.T) { p.ExpectError(t, m, 9, samples.All(), api.ErrArg) }, 0},
+		{"another error", func(t samples.T) { p.ExpectError(t, m, 9, samples.All(), api.ErrDown) }, 1},
+		{"no error", func(t samples.T) { p.ExpectError(t, m, 0, samples.All(), api.OK) }, 1},
+		{"an error where none is expected", func(t samples.T) { p.Made(t, m, 9, samples.All()) }, 1},
+		{"a model", func(t samples.T) { p.ExpectModel(t, m, 0, samples.All()) }, 0},
+		{"the same run", func(t samples.T) { samples.ExpectKept(t, m, samples.Of(t, head, after)) }, 0},
+		{"another run", func(t samples.T) {
+			samples.ExpectKept(t, m, samples.Of(t, head, strings.Replace(after, "3", "4", 1)))
+		}, 1},
+		{"another end", func(t samples.T) {
+			samples.ExpectKept(t, m, samples.Of(t, head, strings.Replace(before, "return", "trap", 1)))
+		}, 1},
+		{"a run that is cut short", func(t samples.T) { samples.ExpectKept(t, m, samples.Of(t, head, "b0: jump b1; b1: jump b1;")) }, 1},
+		{"no text", func(t samples.T) { samples.Read(t, "main") }, 1},
+	} {
+		if list := told(c.ask); len(list) != c.want {
+			t.Errorf("%s: %q", c.what, list)
+		}
+	}
+	other := p
+	other.Model = func(m api.Module, k int, x api.Limit) (api.Module, []api.Applied, api.Errno) { return m, nil, api.OK }
+	if list := told(func(t samples.T) { other.ExpectModel(t, m, 0, samples.All()) }); len(list) != 1 {
+		t.Errorf("another model: %q", list)
+	}
+}
+
+func TestFaultLists(t *testing.T) {
+	p := samples.Pass{Faults: []int{3, 5, 9}}
+	want := [][]int{nil, {3}, {5}, {3, 5}, {9}, {3, 9}, {5, 9}, {3, 5, 9}}
+	if got := p.FaultLists(); !slices.EqualFunc(got, want, slices.Equal) {
+		t.Errorf("%v", got)
+	}
+}
+
+func TestApplied(t *testing.T) {
+	p := samples.Pass{Number: api.PsPeep}
+	want := []api.Applied{{Pass: api.PsPeep, Rule: 1, Func: 4, Block: 2, Index: 13}, {Pass: api.PsPeep, Rule: 17, Func: 4, Block: 10, Index: -1}, {Pass: api.PsPeep, Rule: 2, Func: 4}}
+	if got := p.Applied(4, "b2:13 b10:end/17 b0:0/2"); !slices.Equal(got, want) {
+		t.Errorf("%v", got)
+	}
+}
