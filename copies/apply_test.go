@@ -14,7 +14,7 @@ import (
 
 // P14.1: blocks in reverse postorder, in sweeps; the first rule that can be applied; the same place again.
 func TestOrder(t *testing.T) {
-	expectSound(t, []row{
+	samples.ExpectSoundRows(t, pass, []row{
 		{"reverse postorder", "1 regs 4", "b0: r1 = r0; branch r0, b1, b3; b1: print r1; jump b2; b2: r2 = r1; return; b3: r3 = r1; jump b2;", "b0: r1 = r0; branch r0, b1, b3; b1: print r0; jump b2; b2: r2 = r0; return; b3: r3 = r0; jump b2;", "b3:0 b1:0 b2:0"},
 		{"a second sweep", "1 regs 5", "b0: jump b1; b1: r1 = phi b0: r0, b2: r3; r2 = add r1, 1; branch r2, b2, b3; b2: r3 = phi b1: r1; jump b1; b3: r4 = add r0, 1; print r4; return;", "b0: jump b1; b1: r1 = r0; r2 = add r0, 1; branch r2, b2, b3; b2: r3 = r0; jump b1; b3: r4 = r2; print r2; return;", "b2:0/2 b1:0 b1:0/2 b1:1 b3:0/3 b3:1 b2:0"},
 		{"the rule 1 before others", "1 regs 4", "b0: r1 = r0; r2 = add r0, r1; r3 = add r1, r1; print r3; return;", "b0: r1 = r0; r2 = add r0, r0; r3 = r2; print r2; return;", "b0:1 b0:2 b0:2 b0:2/3 b0:3"},
@@ -39,20 +39,7 @@ var steps = []string{
 
 // P14.1: the first so many applications.
 func TestMost(t *testing.T) {
-	made := pass.Applied(0, "b1:0 b1:0/2 b1:1 b1:1/4 b1:1 b1:1/3 b1:2 b1:end b2:0")
-	m := samples.Of(t, "1 regs 5", steps[0])
-	for _, most := range []int{-1, 0, 1, 2, 3, 4, 5, 6, 7, 8, 9, 10, 11, 3999, 4000, 4001, math.MaxInt} {
-		count := most
-		if most < 0 || most > 9 {
-			count = 9
-		}
-		got, list := pass.Made(t, m, 0, api.Limit{Most: most})
-		want := samples.Of(t, "1 regs 5", steps[count])
-		if !ir.Same(got, want) || !slices.Equal(list, made[:count]) {
-			t.Errorf("Most %d: %v\n%s", most, list, samples.Text(got))
-		}
-		samples.ExpectKept(t, m, want)
-	}
+	pass.ExpectSteps(t, "1 regs 5", steps, "b1:0 b1:0/2 b1:1 b1:1/4 b1:1 b1:1/3 b1:2 b1:end b2:0")
 }
 
 // P14.1: a second function of a module; others stay as they are.
@@ -99,7 +86,7 @@ func TestTooMany(t *testing.T) {
 		made += fmt.Sprintf("b58:%d ", phis+i)
 	}
 	head := fmt.Sprintf("1 regs %d", 2+phis)
-	expect(t, samples.All(), []row{{"4000", head, many(phis, 10, "r1"), many(phis, 10, "r0"), made}})
+	samples.ExpectRows(t, pass, samples.All(), []row{{"4000", head, many(phis, 10, "r1"), many(phis, 10, "r0"), made}})
 
 	m := samples.Of(t, head, many(phis, 11, "r1"))
 	for _, x := range []api.Limit{samples.All(), samples.All(api.FtMinus), {Most: 4001}, {Most: 4002}, {Most: math.MaxInt}} {

@@ -11,7 +11,7 @@ import (
 
 // P14.1, rule 4: a check is left out if an equal one is above it.
 func TestChecks(t *testing.T) {
-	expectSound(t, []row{
+	samples.ExpectSoundRows(t, pass, []row{
 		{"equal ones", "2 regs 2", "b0: check r0, r1; check r0, r1; check r0, r1; print r0; return;", "b0: check r0, r1; print r0; return;", "b0:1/4 b0:1/4"},
 		{"constants", "0 regs 0", "b0: check 1, 4; check 1, 4; return;", "b0: check 1, 4; return;", "b0:1/4"},
 		{"the last one", "1 regs 1 result", "b0: check r0, 4; check r0, 4; return r0;", "b0: check r0, 4; return r0;", "b0:1/4"},
@@ -67,8 +67,8 @@ func TestLoads(t *testing.T) {
 			kept("a call after a store", array, fmt.Sprintf("store %s[r0] = 3; r3 = call g(0, 1; a0); ", array)),
 		)
 	}
-	expectSound(t, rows)
-	expectSound(t, []row{
+	samples.ExpectSoundRows(t, pass, rows)
+	samples.ExpectSoundRows(t, pass, []row{
 		{"a constant index", "0 regs 2", "b0: r0 = load a0[1]; r1 = load a0[1]; print r1; return;", "b0: r0 = load a0[1]; r1 = r0; print r0; return;", "b0:1/5 b0:2"},
 		same("another constant of the same element", "0 regs 2", "b0: r0 = load a0[1]; r1 = load a0[3]; print r1; return;"),
 		same("the block before", "1 regs 4", "b0: r1 = load a0[r0]; store a2[r0] = 5; jump b1; b1: r2 = load a0[r0]; r3 = load a2[r0]; print r2; print r3; return;"),
@@ -96,7 +96,7 @@ func TestSmall(t *testing.T) {
 			rows = append(rows, loaded("any "+value, array, fmt.Sprintf("store %s[r0] = %s; ", array, value), value))
 		}
 	}
-	expectSound(t, rows)
+	samples.ExpectSoundRows(t, pass, rows)
 }
 
 // P14.1, rule 5: arrays that are given by the caller.
@@ -121,13 +121,13 @@ func TestOverStore(t *testing.T) {
 		kept("a call", "a0", "r3 = load a0[r0]; call g(0, 1; a0); "),
 		kept("nothing", "a0", "store a0[r1] = 8; "),
 	}
-	expect(t, samples.All(api.FtOverStore), rows)
-	expect(t, samples.All(1, api.FtOverStore, api.FtDivision, api.MaxFaults), rows)
+	samples.ExpectRows(t, pass, samples.All(api.FtOverStore), rows)
+	samples.ExpectRows(t, pass, samples.All(1, api.FtOverStore, api.FtDivision, api.MaxFaults), rows)
 }
 
 // P14.1, rule 6: what a get becomes by what comes before it in its block.
 func TestGets(t *testing.T) {
-	expectSound(t, []row{
+	samples.ExpectSoundRows(t, pass, []row{
 		{"a get", "0 regs 2", "b0: r0 = get c0; r1 = get c0; print r1; return;", "b0: r0 = get c0; r1 = r0; print r0; return;", "b0:1/6 b0:2"},
 		{"a put", "1 regs 2", "b0: put c0 = r0; r1 = get c0; print r1; return;", "b0: put c0 = r0; r1 = r0; print r0; return;", "b0:1/6 b0:2"},
 		{"a put of a constant", "0 regs 1", "b0: put c1 = 300; r0 = get c1; print r0; return;", "b0: put c1 = 300; r0 = 300; print 300; return;", "b0:1/6 b0:2"},
@@ -153,8 +153,8 @@ func TestOverCall(t *testing.T) {
 		same("a load", "0 regs 2", "b0: r0 = load a0[0]; call g(0, 1; a0); r1 = load a0[0]; return;"),
 		same("the block before", "0 regs 2", "b0: r0 = get c0; jump b1; b1: r1 = get c0; return;"),
 	}
-	expect(t, samples.All(api.FtOverCall), rows)
-	expect(t, samples.All(api.FtFirstOnly, api.FtOverCall, api.FtOverGet), rows)
+	samples.ExpectRows(t, pass, samples.All(api.FtOverCall), rows)
+	samples.ExpectRows(t, pass, samples.All(api.FtFirstOnly, api.FtOverCall, api.FtOverGet), rows)
 }
 
 // P14.1: faults of other layers do not matter, nor those of this layer for other rules.
@@ -167,7 +167,7 @@ func TestOtherFaults(t *testing.T) {
 	for own, r := range rows {
 		for fault := range api.MaxFaults {
 			if fault+1 != own {
-				expect(t, samples.All(fault+1), []row{r})
+				samples.ExpectRows(t, pass, samples.All(fault+1), []row{r})
 			}
 		}
 	}

@@ -2,13 +2,15 @@ package copies_test
 
 import (
 	"testing"
+
+	"cupel/samples"
 )
 
 // P14.1, rule 1: the operands of all instructions and ends, in order, each time that they occur.
 func TestOperands(t *testing.T) {
 	const head = "2 regs 6"
 	const first = "b0: r2 = r0; r3 = r1; "
-	expectSound(t, []row{
+	samples.ExpectSoundRows(t, pass, []row{
 		{"a copy", head, first + "r4 = r2; return;", first + "r4 = r0; return;", "b0:2"},
 		{"an operation", head, first + "r4 = sub r2, r3; return;", first + "r4 = sub r0, r1; return;", "b0:2 b0:2"},
 		{"an operation of a register with itself", head, first + "r4 = sub r3, r3; return;", first + "r4 = sub r1, r1; return;", "b0:2 b0:2"},
@@ -33,7 +35,7 @@ func TestOperands(t *testing.T) {
 
 // P14.1, rule 1: a register becomes the operand of its copy, which may be a constant, or that of another copy.
 func TestChains(t *testing.T) {
-	expectSound(t, []row{
+	samples.ExpectSoundRows(t, pass, []row{
 		{"a constant", "0 regs 2 result", "b0: r0 = -7; r1 = add r0, r0; return r1;", "b0: r0 = -7; r1 = add -7, -7; return r1;", "b0:1 b0:1"},
 		{"a chain", "1 regs 4 result", "b0: r3 = r0; r1 = r3; r2 = r1; return r2;", "b0: r3 = r0; r1 = r0; r2 = r0; return r0;", "b0:1 b0:2 b0:end"},
 		{"a copy that comes later in the text", "1 regs 3 result", "b0: jump b2; b1: return r2; b2: r1 = r0; r2 = r1; jump b1;", "b0: jump b2; b1: return r0; b2: r1 = r0; r2 = r0; jump b1;", "b2:1 b1:end"},
@@ -44,7 +46,7 @@ func TestChains(t *testing.T) {
 
 // P14.1: blocks that are not reached stay as they are, and so does what belongs to them in phis.
 func TestNotReached(t *testing.T) {
-	expectSound(t, []row{
+	samples.ExpectSoundRows(t, pass, []row{
 		same("a block", "1 regs 6 result", "b0: return r0; b1: r1 = r0; r2 = add r1, r0; r3 = add r1, r0; print r2; r4 = get c0; r5 = get c0; check r1, 4; check r1, 4; return r1;"),
 		{"an operand of a phi", "1 regs 3 result", "b0: r1 = r0; jump b2; b1: jump b2; b2: r2 = phi b0: r1, b1: r1; return r2;", "b0: r1 = r0; jump b2; b1: jump b2; b2: r2 = phi b0: r0, b1: r1; return r2;", "b2:0"},
 		same("one that is different", "1 regs 3 result", "b0: jump b2; b1: jump b2; b2: r1 = phi b0: r0, b1: 4; return r1;"),

@@ -9,17 +9,7 @@ import (
 
 // P14.1: functions of all kinds, with all numbers of applications.
 func TestMade(t *testing.T) {
-	c := pass.ExpectModelOf(t, 800, 14)
-	for rule := 1; rule <= 6; rule++ {
-		if c.Rules[rule] < 1000 {
-			t.Errorf("%v", c)
-		}
-	}
-	for i := range pass.FaultLists() {
-		if i == 0 && c.Changed[i] > 0 || i > 0 && c.Changed[i] < 30 {
-			t.Errorf("%v", c)
-		}
-	}
+	pass.ExpectModelOf(t, 800, 14).ExpectEnough(t, 6, 1000, 30)
 }
 
 // P14.1: functions of up to 60 blocks.

@@ -12,7 +12,7 @@ import (
 func TestPhis(t *testing.T) {
 	const two = "b0: branch r0, b1, b2; b1: jump b3; b2: jump b3; b3: "
 	const loop = "b0: jump b1; b1: "
-	expectSound(t, []row{
+	samples.ExpectSoundRows(t, pass, []row{
 		{"a single operand", "1 regs 2 result", "b0: jump b1; b1: r1 = phi b0: r0; return r1;", "b0: jump b1; b1: r1 = r0; return r0;", "b1:0/2 b1:end"},
 		{"one edge for both ways", "1 regs 2 result", "b0: branch r0, b1, b1; b1: r1 = phi b0: r0; return r1;", "b0: branch r0, b1, b1; b1: r1 = r0; return r0;", "b1:0/2 b1:end"},
 		{"equal registers", "1 regs 2 result", two + "r1 = phi b1: r0, b2: r0; return r1;", two + "r1 = r0; return r0;", "b3:0/2 b3:end"},
@@ -30,7 +30,7 @@ func TestPhis(t *testing.T) {
 		same("a phi that counts", "1 regs 3", loop+"r1 = phi b0: 0, b1: r2; r2 = add r1, 1; branch r0, b1, b2; b2: print r1; return;"),
 		same("a block without edges", "0 regs 1", "b0: return; b1: r0 = phi; return;"),
 	})
-	expectSound(t, []row{
+	samples.ExpectSoundRows(t, pass, []row{
 		{"behind the others", "1 regs 5", two + "r1 = phi b1: r0, b2: r0; r2 = phi b1: 1, b2: 2; r3 = phi b1: 3, b2: 4; print r2; return;", two + "r2 = phi b1: 1, b2: 2; r3 = phi b1: 3, b2: 4; r1 = r0; print r2; return;", "b3:0/2"},
 		{"before what others have become", "1 regs 5", two + "r1 = phi b1: r0, b2: r0; r2 = phi b1: 1, b2: 2; r3 = phi b1: 3, b2: 3; r4 = phi b1: 3, b2: 4; print r4; return;", two + "r2 = phi b1: 1, b2: 2; r4 = phi b1: 3, b2: 4; r3 = 3; r1 = r0; print r4; return;", "b3:0/2 b3:1/2"},
 		{"the next one is looked at", "1 regs 4", two + "r1 = phi b1: r0, b2: r0; r2 = phi b1: 7, b2: 7; r3 = phi b1: 8, b2: 8; print r1; print r2; print r3; return;", two + "r3 = 8; r2 = 7; r1 = r0; print r0; print 7; print 8; return;", "b3:0/2 b3:0/2 b3:0/2 b3:3 b3:4 b3:5"},
@@ -46,33 +46,33 @@ func TestOperations(t *testing.T) {
 	const code = "b0: r2 = %s r0, r1; r3 = %s %s; print r2; print r3; return;"
 	for _, word := range words {
 		made := fmt.Sprintf("b0: r2 = %s r0, r1; r3 = r2; print r2; print r2; return;", word)
-		expectSound(t, []row{{word, "2 regs 4", fmt.Sprintf(code, word, word, "r0, r1"), made, "b0:1/3 b0:3"}})
+		samples.ExpectSoundRows(t, pass, []row{{word, "2 regs 4", fmt.Sprintf(code, word, word, "r0, r1"), made, "b0:1/3 b0:3"}})
 		exchanged := fmt.Sprintf(code, word, word, "r1, r0")
 		r := row{word + " exchanged", "2 regs 4", exchanged, made, "b0:1/3 b0:3"}
 		if turns[word] {
-			expectSound(t, []row{r})
+			samples.ExpectSoundRows(t, pass, []row{r})
 		} else {
-			expectSound(t, []row{same(r.What, r.Head, exchanged)})
+			samples.ExpectSoundRows(t, pass, []row{same(r.What, r.Head, exchanged)})
 		}
 		if turns[word] || word == "sub" {
-			expect(t, samples.All(api.FtMinus), []row{r})
+			samples.ExpectRows(t, pass, samples.All(api.FtMinus), []row{r})
 		} else {
-			expect(t, samples.All(api.FtMinus), []row{same(r.What, r.Head, exchanged)})
+			samples.ExpectRows(t, pass, samples.All(api.FtMinus), []row{same(r.What, r.Head, exchanged)})
 		}
 		for _, other := range words {
 			if other != word {
-				expectSound(t, []row{same(word+" and "+other, "2 regs 4", fmt.Sprintf(code, word, other, "r0, r1"))})
+				samples.ExpectSoundRows(t, pass, []row{same(word+" and "+other, "2 regs 4", fmt.Sprintf(code, word, other, "r0, r1"))})
 			}
 		}
 		for _, pair := range []string{"r0, r0", "r1, r1", "r0, 1", "0, r1"} {
-			expectSound(t, []row{same("other operands", "2 regs 4", fmt.Sprintf(code, word, word, pair))})
+			samples.ExpectSoundRows(t, pass, []row{same("other operands", "2 regs 4", fmt.Sprintf(code, word, word, pair))})
 		}
 	}
 }
 
 // P14.1, rule 3: what is above, and which one of it is the nearest.
 func TestNearest(t *testing.T) {
-	expectSound(t, []row{
+	samples.ExpectSoundRows(t, pass, []row{
 		{"constants", "1 regs 4", "b0: r1 = add 2, r0; r2 = add r0, 2; r3 = add 2, 3; print r2; return;", "b0: r1 = add 2, r0; r2 = r1; r3 = add 2, 3; print r1; return;", "b0:1/3 b0:3"},
 		{"two constants", "1 regs 4", "b0: r1 = sub 2, 3; r2 = sub 3, 2; r3 = sub 2, 3; print r3; return;", "b0: r1 = sub 2, 3; r2 = sub 3, 2; r3 = r1; print r1; return;", "b0:2/3 b0:3"},
 		same("one below", "1 regs 4", "b0: branch r0, b1, b2; b1: r1 = add r0, 2; jump b2; b2: r2 = add r0, 2; print r2; return;"),

@@ -16,7 +16,7 @@ import (
 func TestOperands(t *testing.T) {
 	const head = "0 regs 6"
 	first := "b0: r0 = 1; r1 = 2; "
-	expectSound(t, []row{
+	samples.ExpectSoundRows(t, pass, []row{
 		{"a copy", head, first + "r2 = r0; return;", first + "r2 = 1; return;", "b0:2"},
 		{"an operation", head, first + "r2 = sub r0, r1; return;", first + "r2 = sub 1, 2; return;", "b0:2 b0:2"},
 		{"an operation of a register with itself", head, first + "r2 = mul r1, r1; return;", first + "r2 = mul 2, 2; return;", "b0:2 b0:2"},
@@ -51,7 +51,7 @@ func TestBranches(t *testing.T) {
 			row{"a register that is not 0", "0 regs 1", fmt.Sprintf("b0: r0 = %d; branch r0, b1, b2; ", v) + ends, fmt.Sprintf("b0: r0 = %d; jump b1; ", v) + ends, "b0:end b0:end/2"})
 	}
 	const join = "b2: r0 = phi b0: 4, b1: 5; r1 = phi b0: 6, b1: 7; print 1; return;"
-	expectSound(t, append(rows, []row{
+	samples.ExpectSoundRows(t, pass, append(rows, []row{
 		{"0", "0 regs 0", "b0: branch 0, b1, b2; " + ends, "b0: jump b2; " + ends, "b0:end/2"},
 		{"a register that is 0", "0 regs 1", "b0: r0 = 0; branch r0, b1, b2; " + ends, "b0: r0 = 0; jump b2; " + ends, "b0:end b0:end/2"},
 		{"the other way about", "0 regs 0", "b0: branch 1, b2, b1; " + ends, "b0: jump b2; " + ends, "b0:end/2"},
@@ -72,7 +72,7 @@ func TestBranches(t *testing.T) {
 
 // P13.1: the blocks are gone through as they are numbered, and the facts are found before.
 func TestOrder(t *testing.T) {
-	expectSound(t, []row{
+	samples.ExpectSoundRows(t, pass, []row{
 		{"numbers of blocks", "0 regs 2", "b0: jump b2; b1: print r0; print r1; return; b2: r0 = 1; r1 = r0; jump b1;", "b0: jump b2; b1: print 1; print 1; return; b2: r0 = 1; r1 = 1; jump b1;", "b1:0 b1:1 b2:1"},
 		{"a phi before a branch that leaves it out", "0 regs 2", "b0: r0 = 0; jump b2; b1: r1 = phi b2: r0, b3: r0; print r1; return; b2: branch r0, b1, b3; b3: jump b1;", "b0: r0 = 0; jump b2; b1: r1 = phi b3: 0; print 0; return; b2: jump b3; b3: jump b1;", "b1:0 b1:1 b2:end b2:end/2"},
 		{"a phi behind it", "0 regs 2", "b0: r0 = 0; branch r0, b3, b1; b1: jump b2; b2: jump b3; b3: r1 = phi b0: r0, b2: r0; print r1; return;", "b0: r0 = 0; jump b1; b1: jump b2; b2: jump b3; b3: r1 = phi b2: 0; print 0; return;", "b0:end b0:end/2 b3:0 b3:1"},
@@ -96,25 +96,7 @@ var steps = []string{
 
 // P13.1: the first so many applications.
 func TestMost(t *testing.T) {
-	const made = "b0:1 b0:1 b0:end b0:end/2 b1:0 b2:0 b2:1 b2:1 b2:2"
-	m := samples.Of(t, "0 regs 4", steps[0])
-	for most := -1; most < 14; most++ {
-		count := most
-		if most < 0 || most > 9 {
-			count = 9
-		}
-		got, list := pass.Made(t, m, 0, api.Limit{Most: most})
-		if want := samples.Of(t, "0 regs 4", steps[count]); !ir.Same(got, want) {
-			t.Errorf("Most %d: %s", most, samples.Text(got))
-		}
-		if want := pass.Applied(0, made)[:count]; !slices.Equal(list, want) {
-			t.Errorf("Most %d: %v", most, list)
-		}
-	}
-	got, list := pass.Made(t, m, 0, api.Limit{Most: math.MaxInt})
-	if !ir.Same(got, samples.Of(t, "0 regs 4", steps[9])) || len(list) != 9 {
-		t.Errorf("%v: %s", list, samples.Text(got))
-	}
+	pass.ExpectSteps(t, "0 regs 4", steps, "b0:1 b0:1 b0:end b0:end/2 b1:0 b2:0 b2:1 b2:1 b2:2")
 }
 
 // P13.1: a second function of a module; others stay as they are.
@@ -155,5 +137,5 @@ func TestManyApplications(t *testing.T) {
 	for i := range phis {
 		made += strings.Repeat(fmt.Sprintf("b59:%d ", i), edges)
 	}
-	expect(t, samples.All(), []row{{"phis", fmt.Sprintf("1 regs %d", 2+phis), body("r1"), body("7"), made}})
+	samples.ExpectRows(t, pass, samples.All(), []row{{"phis", fmt.Sprintf("1 regs %d", 2+phis), body("r1"), body("7"), made}})
 }

@@ -12,7 +12,7 @@ import (
 
 // P13.1: parameters vary, and so does what is loaded, got, or the result of a call; copies have the fact of their operand.
 func TestSources(t *testing.T) {
-	expectSound(t, []row{
+	samples.ExpectSoundRows(t, pass, []row{
 		{"parameters", "2 regs 3 result", "b0: r2 = r1; print r0; print r2; return r1;", "b0: r2 = r1; print r0; print r2; return r1;", ""},
 		{"a parameter that is always 0", "1 regs 2", "b0: r1 = mul r0, 0; print r1; return;", "b0: r1 = mul r0, 0; print r1; return;", ""},
 		{"a load", "0 regs 1", "b0: r0 = load a0[0]; print r0; return;", "b0: r0 = load a0[0]; print r0; return;", ""},
@@ -41,9 +41,9 @@ func TestOperations(t *testing.T) {
 					result, made = v, "b0:1 b0:2"
 				}
 				r := row{word, "0 regs 2", fmt.Sprintf(code, a, word, "r0", b, "r1"), fmt.Sprintf(code, a, word, a, b, result), made}
-				expect(t, samples.All(), []row{r})
+				samples.ExpectRows(t, pass, samples.All(), []row{r})
 				if kind != api.IbLt-api.IbAdd || a != b {
-					expect(t, samples.All(api.FtEqualLess), []row{r})
+					samples.ExpectRows(t, pass, samples.All(api.FtEqualLess), []row{r})
 				}
 			}
 		}
@@ -53,7 +53,7 @@ func TestOperations(t *testing.T) {
 // P13.1: what traps varies, and what is made of it; a phi has what belongs to executable edges.
 func TestMeets(t *testing.T) {
 	const two = "b0: r1 = 4; branch r0, b1, b2; b1: jump b3; b2: jump b3; "
-	expectSound(t, []row{
+	samples.ExpectSoundRows(t, pass, []row{
 		{"a trap", "0 regs 3", "b0: r0 = 0; r1 = rem 5, r0; r2 = add r1, 1; print r2; return;", "b0: r0 = 0; r1 = rem 5, 0; r2 = add r1, 1; print r2; return;", "b0:1"},
 		{"equal constants", "1 regs 3 result", two + "b3: r2 = phi b1: r1, b2: 4; return r2;", two + "b3: r2 = phi b1: 4, b2: 4; return 4;", "b3:0 b3:end"},
 		{"equal registers", "1 regs 3 result", two + "b3: r2 = phi b1: r1, b2: r1; return r2;", two + "b3: r2 = phi b1: 4, b2: 4; return 4;", "b3:0 b3:0 b3:end"},
@@ -70,7 +70,7 @@ func TestMeets(t *testing.T) {
 
 // P13.1: the facts are the least ones, so that loops do not make vary what stays the same.
 func TestLoops(t *testing.T) {
-	expectSound(t, []row{
+	samples.ExpectSoundRows(t, pass, []row{
 		{"the example", "0 regs 1", "b0: jump b1; b1: r0 = phi b0: 1, b1: r0; print r0; jump b1;", "b0: jump b1; b1: r0 = phi b0: 1, b1: 1; print 1; jump b1;", "b1:0 b1:1"},
 		{"counting", "0 regs 2", "b0: jump b1; b1: r0 = phi b0: 0, b1: r1; r1 = add r0, 1; print r0; jump b1;", "b0: jump b1; b1: r0 = phi b0: 0, b1: r1; r1 = add r0, 1; print r0; jump b1;", ""},
 		{"an operation that changes nothing", "1 regs 3", "b0: jump b1; b1: r1 = phi b0: 6, b1: r2; r2 = or r1, 2; branch r0, b1, b2; b2: print r2; return;", "b0: jump b1; b1: r1 = phi b0: 6, b1: 6; r2 = or 6, 2; branch r0, b1, b2; b2: print 6; return;", "b1:0 b1:1 b2:0"},
@@ -90,9 +90,9 @@ func TestEqualLess(t *testing.T) {
 		{"of what varies", "1 regs 2", "b0: r1 = lt r0, r0; print r1; return;", "b0: r1 = lt r0, r0; print r1; return;", ""},
 		{"others", "0 regs 3", "b0: r0 = ne 3, 3; r1 = le 3, 3; r2 = eq 3, 3; print r0; print r1; print r2; return;", "b0: r0 = ne 3, 3; r1 = le 3, 3; r2 = eq 3, 3; print 0; print 1; print 1; return;", "b0:3 b0:4 b0:5"},
 	}
-	expect(t, samples.All(api.FtEqualLess), rows)
-	expect(t, samples.All(api.FtUndefined, api.FtEqualLess, api.FtFirstOnly, api.MaxFaults), rows)
-	expectSound(t, []row{{"no fault", "0 regs 1", "b0: r0 = lt 3, 3; branch r0, b1, b2; b1: return; b2: return;", "b0: r0 = lt 3, 3; jump b2; b1: return; b2: return;", "b0:end b0:end/2"}})
+	samples.ExpectRows(t, pass, samples.All(api.FtEqualLess), rows)
+	samples.ExpectRows(t, pass, samples.All(api.FtUndefined, api.FtEqualLess, api.FtFirstOnly, api.MaxFaults), rows)
+	samples.ExpectSoundRows(t, pass, []row{{"no fault", "0 regs 1", "b0: r0 = lt 3, 3; branch r0, b1, b2; b1: return; b2: return;", "b0: r0 = lt 3, 3; jump b2; b1: return; b2: return;", "b0:end b0:end/2"}})
 }
 
 // P13.1: with a fault, a phi has the fact of the first one of its Args.
@@ -113,8 +113,8 @@ func TestFirstOnly(t *testing.T) {
 		{"what is defined by it alone", "0 regs 3", "b0: r0 = 2; jump b2; b1: jump b3; b2: jump b3; b3: r1 = phi b1: r2, b2: r0; r2 = add r1, 1; print r2; return;", "b0: r0 = 2; jump b2; b1: jump b3; b2: jump b3; b3: r1 = phi b1: r2, b2: 2; r2 = add r1, 1; print r2; return;", "b3:0"},
 		{"what varies with it", "1 regs 4", "b0: r1 = 2; jump b2; b1: jump b3; b2: jump b3; b3: r2 = phi b1: r3, b2: r1; r3 = add r2, r0; branch r3, b4, b5; b4: print r1; return; b5: return;", "b0: r1 = 2; jump b2; b1: jump b3; b2: jump b3; b3: r2 = phi b1: r3, b2: 2; r3 = add r2, r0; branch r3, b4, b5; b4: print 2; return; b5: return;", "b3:0 b4:0"},
 	}
-	expect(t, samples.All(api.FtFirstOnly), rows)
-	expect(t, samples.All(1, 2, api.FtFirstOnly, 5, 24), rows)
+	samples.ExpectRows(t, pass, samples.All(api.FtFirstOnly), rows)
+	samples.ExpectRows(t, pass, samples.All(1, 2, api.FtFirstOnly, 5, 24), rows)
 }
 
 // P13.1: faults of other layers do not matter.
@@ -123,7 +123,7 @@ func TestOtherFaults(t *testing.T) {
 		if fault == 0 || fault == api.FtEqualLess || fault == api.FtFirstOnly {
 			continue
 		}
-		expect(t, samples.All(fault), []row{
+		samples.ExpectRows(t, pass, samples.All(fault), []row{
 			{"less", "0 regs 1", "b0: r0 = lt 3, 3; print r0; return;", "b0: r0 = lt 3, 3; print 0; return;", "b0:1"},
 			{"a phi", "1 regs 2", "b0: branch r0, b1, b2; b1: jump b2; b2: r1 = phi b0: 1, b1: 2; print r1; return;", "b0: branch r0, b1, b2; b1: jump b2; b2: r1 = phi b0: 1, b1: 2; print r1; return;", ""},
 			{"a division", "1 regs 2", "b0: r1 = div 4, 0; print r1; return;", "b0: r1 = div 4, 0; print r1; return;", ""},

@@ -1,8 +1,6 @@
 package fold_test
 
 import (
-	"testing"
-
 	"cupel/api"
 	"cupel/fold"
 	"cupel/samples"
@@ -12,17 +10,3 @@ var pass = samples.Pass{Number: api.PsFold, Run: fold.Run, Faults: []int{api.FtE
 
 // row is a samples.Row whose fields need no names.
 type row struct{ What, Head, Before, After, Made string }
-
-func expect(t *testing.T, x api.Limit, rows []row) {
-	t.Helper()
-	for _, r := range rows {
-		pass.Expect(t, x, samples.Row(r))
-	}
-}
-
-func expectSound(t *testing.T, rows []row) {
-	t.Helper()
-	for _, r := range rows {
-		pass.ExpectSound(t, samples.Row(r))
-	}
-}

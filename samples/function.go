@@ -129,6 +129,8 @@ func (k *maker) instr() api.Instr {
 		{Op: api.IxStore, To: -1, Array: k.IntN(4)},
 		{Op: api.IxGet, Cell: k.IntN(2)},
 		{Op: api.IxPut, To: -1, Cell: k.IntN(2)},
+		{Op: api.IxPut, To: -1, Cell: k.IntN(2)},
+		{Op: api.IxPut, To: -1, Cell: k.IntN(2)},
 		{Op: api.IxPrint, To: -1},
 		{Op: api.IxPrint, To: -1},
 		{Op: api.IxPrint, To: -1},

@@ -1,6 +1,7 @@
 package samples
 
 import (
+	"math"
 	"slices"
 	"strconv"
 	"strings"
@@ -76,6 +77,47 @@ func (p Pass) ExpectSound(t T, r Row) {
 	ExpectKept(t, Of(t, r.Head, r.Before), Of(t, r.Head, r.After))
 }
 
+// fields are those of a Row. Tests have a type of their own with them, so that they can write rows without the names of fields.
+type fields interface {
+	~struct{ What, Head, Before, After, Made string }
+}
+
+// ExpectRows wants of a pass what rows say.
+func ExpectRows[R fields](t T, p Pass, x api.Limit, rows []R) {
+	t.Helper()
+	for _, r := range rows {
+		p.Expect(t, x, Row(r))
+	}
+}
+
+// ExpectSoundRows wants what ExpectRows does without faults, and runs to stay the same.
+func ExpectSoundRows[R fields](t T, p Pass, rows []R) {
+	t.Helper()
+	for _, r := range rows {
+		p.ExpectSound(t, Row(r))
+	}
+}
+
+// ExpectSteps wants the first so many applications, whatever the limit: the bodies are those after 0, 1, 2 .. of them.
+func (p Pass) ExpectSteps(t T, head string, bodies []string, made string) {
+	t.Helper()
+	words, last := strings.Fields(made), len(bodies)-1
+	limits := []int{-1, 3999, 4000, 4001, math.MaxInt}
+	for most := range last + 4 {
+		limits = append(limits, most)
+	}
+	for _, most := range limits {
+		count := most
+		if most < 0 || most > last {
+			count = last
+		}
+		p.Expect(t, api.Limit{Most: most}, Row{"Most " + strconv.Itoa(most), head, bodies[0], bodies[count], strings.Join(words[:count], " ")})
+	}
+	for _, body := range bodies {
+		ExpectKept(t, Of(t, head, bodies[0]), Of(t, head, body))
+	}
+}
+
 // Applied reads a list of applications for a function: b1:2/3 is that of the rule 3 at the instruction 2 of the block 1, b1:end that of the rule 1 at its end.
 func (p Pass) Applied(k int, words string) []api.Applied {
 	var list []api.Applied
@@ -109,10 +151,28 @@ func (p Pass) ExpectModel(t T, m api.Module, k int, x api.Limit) (api.Module, []
 // Count says how often rules were applied, and by which lists of faults how many functions became different.
 type Count struct{ Rules, Changed map[int]int }
 
+// ExpectEnough wants each of the rules, up to the last one, to have been applied so often, and each list of faults to have changed so many functions.
+func (c Count) ExpectEnough(t T, last, applied, changed int) {
+	t.Helper()
+	for rule := 1; rule <= last; rule++ {
+		if c.Rules[rule] < applied {
+			t.Errorf("the rule %d: applied %d times", rule, c.Rules[rule])
+		}
+	}
+	for i := range len(c.Changed) {
+		if n := c.Changed[i]; i == 0 && n > 0 || i > 0 && n < changed {
+			t.Errorf("the list %d of faults: %d functions changed", i, n)
+		}
+	}
+}
+
 // ExpectModelOf wants of functions what the model says, for each list of faults, and for one of them with each number of applications.
 func (p Pass) ExpectModelOf(t T, count, blocks int) Count {
 	t.Helper()
 	c, turn := Count{map[int]int{}, map[int]int{}}, 0
+	for i := range p.FaultLists() {
+		c.Changed[i] = 0
+	}
 	Functions(t, count, blocks, func(m api.Module) {
 		plain, _ := p.ExpectModel(t, m, 0, All())
 		lists := p.FaultLists()

@@ -106,6 +106,9 @@ const (
 	head   = "0 regs 2"
 )
 
+// steps are the bodies after 0, 1, 2 applications.
+var steps = []string{before, strings.Replace(after, "3", "r1", 1), after}
+
 // A pass is compared with what it has to make, and applications with theirs.
 func TestPass(t *testing.T) {
 	p := samples.Pass{Number: api.PsFold, Run: fold.Run, Faults: []int{api.FtEqualLess, api.FtFirstOnly}, Model: fold.Run}
@@ -121,6 +124,12 @@ func TestPass(t *testing.T) {
 		{"a row", func(t samples.T) { p.ExpectSound(t, row) }, 0},
 		{"another function", func(t samples.T) { p.ExpectSound(t, wrongText) }, 1},
 		{"other applications", func(t samples.T) { p.Expect(t, samples.All(), wrongList) }, 1},
+		{"rows", func(t samples.T) { samples.ExpectRows(t, p, samples.All(), []samples.Row{row, wrongText, wrongList}) }, 2},
+		{"rows of runs", func(t samples.T) { samples.ExpectSoundRows(t, p, []samples.Row{row, wrongText, wrongList}) }, 2},
+		{"steps", func(t samples.T) { p.ExpectSteps(t, head, steps, row.Made) }, 0},
+		{"a wrong step", func(t samples.T) { p.ExpectSteps(t, head, []string{before, before, after}, row.Made) }, 1},
+		{"a wrong application", func(t samples.T) { p.ExpectSteps(t, head, steps, "b0:1/2 b0:2") }, 10},
+		{"a step too few", func(t samples.T) { p.ExpectSteps(t, head, steps[:2], row.Made) }, 16},
 		{"an error", func(t samples.T) { p.ExpectError(t, m, 9, samples.All(), api.ErrArg) }, 0},
 		{"another error", func(t samples.T) { p.ExpectError(t, m, 9, samples.All(), api.ErrDown) }, 1},
 		{"no error", func(t samples.T) { p.ExpectError(t, m, 0, samples.All(), api.OK) }, 1},
@@ -144,6 +153,22 @@ func TestPass(t *testing.T) {
 	other.Model = func(m api.Module, k int, x api.Limit) (api.Module, []api.Applied, api.Errno) { return m, nil, api.OK }
 	if list := told(func(t samples.T) { other.ExpectModel(t, m, 0, samples.All()) }); len(list) != 1 {
 		t.Errorf("another model: %q", list)
+	}
+}
+
+// Counts are enough if each of them is, and if nothing changes without faults.
+func TestEnough(t *testing.T) {
+	c := samples.Count{Rules: map[int]int{1: 5, 2: 6, 3: 7}, Changed: map[int]int{0: 0, 1: 2, 2: 3}}
+	for _, a := range []struct{ last, applied, changed, want int }{
+		{3, 5, 2, 0}, {3, 6, 2, 1}, {3, 8, 2, 3}, {4, 5, 2, 1}, {2, 7, 2, 2}, {3, 5, 3, 1}, {3, 5, 4, 2}, {0, 9, 1, 0},
+	} {
+		if list := told(func(t samples.T) { c.ExpectEnough(t, a.last, a.applied, a.changed) }); len(list) != a.want {
+			t.Errorf("%v: %q", a, list)
+		}
+	}
+	c.Changed[0] = 1
+	if list := told(func(t samples.T) { c.ExpectEnough(t, 3, 5, 2) }); len(list) != 1 {
+		t.Errorf("%q", list)
 	}
 }
 

@@ -1,0 +1,15 @@
+package dead_test
+
+import (
+	"cupel/api"
+	"cupel/dead"
+	"cupel/samples"
+)
+
+var pass = samples.Pass{Number: api.PsDead, Run: dead.Run, Faults: []int{api.FtDivision, api.FtOverGet}, Model: modelRun}
+
+// row is a samples.Row whose fields need no names.
+type row struct{ What, Head, Before, After, Made string }
+
+// same is a row of a function that stays as it is.
+func same(what, head, body string) row { return row{what, head, body, body, ""} }
