@@ -8,7 +8,6 @@ import (
 	"testing"
 
 	"cupel/api"
-	"cupel/ir"
 	"cupel/samples"
 )
 
@@ -42,19 +41,11 @@ func TestMost(t *testing.T) {
 	pass.ExpectSteps(t, "1 regs 5", steps, "b1:0 b1:0/2 b1:1 b1:1/4 b1:1 b1:1/3 b1:2 b1:end b2:0")
 }
 
-// P14.1: a second function of a module; others stay as they are.
+// P14.1: one function of a module; others stay as they are.
 func TestOtherFunctions(t *testing.T) {
-	const code = "cell c = 1; main h; func f params 1 regs 2 { b0: r1 = r0; print %s; return; } func g params 0 regs 3 { b0: r0 = get c0; r1 = get c0; %s r2 = add %s; return; } func h params 0 regs 1 { b0: r0 = 1; call f(r0); call g(); r0 = 1; return; }"
-	m := samples.Read(t, fmt.Sprintf(code, "r1", "check r0, 2; check r1, 2;", "r1, r1"))
-	made, list := pass.Made(t, m, 0, samples.All())
-	if want := samples.Read(t, fmt.Sprintf(code, "r0", "check r0, 2; check r1, 2;", "r1, r1")); !ir.Same(made, want) || !slices.Equal(list, pass.Applied(0, "b0:1")) {
-		t.Errorf("%v: %s", list, samples.Text(made))
-	}
-	made, list = pass.Made(t, m, 1, samples.All())
-	if want := samples.Read(t, strings.Replace(fmt.Sprintf(code, "r1", "check r0, 2;", "r0, r0"), "r1 = get c0", "r1 = r0", 1)); !ir.Same(made, want) || !slices.Equal(list, pass.Applied(1, "b0:1/6 b0:3 b0:3/4 b0:3 b0:3")) {
-		t.Errorf("%v: %s", list, samples.Text(made))
-	}
-	pass.ExpectError(t, m, 2, samples.All(), api.ErrDown)
+	const text = "cell c = 1; main h; func f params 1 regs 2 { b0: r1 = r0; print %s; return; } func g params 0 regs 3 { b0: r0 = get c0; %s return; } func h params 0 regs 1 { b0: r0 = 1; call f(r0); call g(); r0 = 1; return; }"
+	pass.ExpectEach(t, text, samples.Part{Before: "r1", After: "r0", Made: "b0:1"}, samples.Part{Before: "r1 = get c0; check r0, 2; check r1, 2; r2 = add r1, r1;", After: "r1 = r0; check r0, 2; r2 = add r0, r0;", Made: "b0:1/6 b0:3 b0:3/4 b0:3 b0:3"})
+	pass.ExpectError(t, samples.Read(t, strings.NewReplacer("print %s;", "", "%s", "").Replace(text)), 2, samples.All(), api.ErrDown)
 }
 
 // many is the body of a function with so many operands that are copies: 57 blocks lead to one with phis, which have two other operands, and then come prints of a copy.

@@ -1,11 +1,6 @@
 package copies_test
 
-import (
-	"testing"
-
-	"cupel/api"
-	"cupel/samples"
-)
+import "testing"
 
 // P14.1: functions of all kinds, with all numbers of applications.
 func TestMade(t *testing.T) {
@@ -13,13 +8,7 @@ func TestMade(t *testing.T) {
 }
 
 // P14.1: functions of up to 60 blocks.
-func TestMadeLong(t *testing.T) {
-	samples.Functions(t, 200, 60, func(m api.Module) {
-		for _, faults := range pass.FaultLists() {
-			pass.ExpectModel(t, m, 0, samples.All(faults...))
-		}
-	})
-}
+func TestMadeLong(t *testing.T) { pass.ExpectModelOfLong(t, 200) }
 
 // P14.1: the functions of programs.
 func TestPrograms(t *testing.T) {

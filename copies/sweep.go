@@ -52,27 +52,15 @@ func (s *sweeper) note(x api.Instr) {
 	}
 }
 
-// sweep goes through the function once, and reports whether it has made an application.
-func (s *sweeper) sweep() bool {
-	before := len(s.record.List)
-	for _, b := range s.graph.Order {
-		at := place{b, 0}
-		for at.index < len(s.code(b)) {
-			if !s.change(at) {
-				at.index++
-			}
-		}
-		for s.changeEnd(b) {
-		}
-	}
-	return len(s.record.List) > before
-}
-
 // change applies the first rule that can be applied at a place, and reports whether it has.
-func (s *sweeper) change(at place) bool {
-	for i, find := range s.rules {
+func (s *sweeper) change(b, i int) bool {
+	if i == len(s.code(b)) {
+		return s.changeEnd(b)
+	}
+	at := place{b, i}
+	for n, find := range s.rules {
 		if apply := find(s, at); apply != nil {
-			may := s.record.Add(i+1, at.block, at.index)
+			may := s.record.Add(n+1, b, i)
 			if may {
 				apply()
 			}

@@ -2,12 +2,10 @@ package dead_test
 
 import (
 	"fmt"
-	"slices"
 	"strings"
 	"testing"
 
 	"cupel/api"
-	"cupel/ir"
 	"cupel/samples"
 )
 
@@ -80,17 +78,9 @@ func TestAllLeftOut(t *testing.T) {
 	samples.ExpectRows(t, pass, api.Limit{Most: 399}, []row{{"without the blocks", "1 regs 1", before, "b0: put c0 = 1; return; b1: return;", made}})
 }
 
-// P15.1: a second function of a module; others stay as they are.
+// P15.1: one function of a module; others stay as they are.
 func TestOtherFunctions(t *testing.T) {
-	const code = "cell c = 1; main h; func f params 1 regs 2 { b0: %s return; } func g params 0 regs 3 { local[4]; b0: %s return; } func h params 0 regs 1 { b0: r0 = 1; call f(r0); call g(); r0 = 1; return; }"
-	const ofF, ofG = "r1 = r0;", "check 0, 2; store a0[1] = 1; put c0 = 3; put c0 = 4;"
-	m := samples.Read(t, fmt.Sprintf(code, ofF, ofG))
-	for k, c := range []struct{ f, g, made string }{{"", ofG, "b0:0"}, {ofF, "put c0 = 4;", "b0:2/4 b0:1/3 b0:0/2"}} {
-		made, list := pass.Made(t, m, k, samples.All())
-		if want := samples.Read(t, fmt.Sprintf(code, c.f, c.g)); !ir.Same(made, want) || !slices.Equal(list, pass.Applied(k, c.made)) {
-			t.Errorf("%d: %v: %s", k, list, samples.Text(made))
-		}
-		samples.ExpectKept(t, m, made)
-	}
-	pass.ExpectError(t, m, 2, samples.All(), api.ErrDown)
+	const text = "cell c = 1; main h; func f params 1 regs 2 { b0: %s return; } func g params 0 regs 3 { local[4]; b0: %s return; } func h params 0 regs 1 { b0: r0 = 1; call f(r0); call g(); r0 = 1; return; }"
+	pass.ExpectEach(t, text, samples.Part{Before: "r1 = r0;", Made: "b0:0"}, samples.Part{Before: "check 0, 2; store a0[1] = 1; put c0 = 3; put c0 = 4;", After: "put c0 = 4;", Made: "b0:2/4 b0:1/3 b0:0/2"})
+	pass.ExpectError(t, samples.Read(t, strings.ReplaceAll(text, "%s", "")), 2, samples.All(), api.ErrDown)
 }

@@ -1,33 +1,20 @@
 package dead_test
 
 import (
-	"fmt"
 	"regexp"
 	"slices"
 	"strconv"
 	"strings"
 
 	"cupel/api"
-	"cupel/ir"
+	"cupel/samples"
 )
 
 // The model changes the canonical text of a module: what the chapter asks for are words, which are looked for anew in all lines each time.
 
 type model struct {
-	head   string // up to the first block
-	decls  []string
-	blocks [][]line // instructions, and the end behind them
-	tail   string   // behind the last one
+	samples.Listing
 	faults []int
-}
-
-type line struct {
-	text  string
-	words []string
-}
-
-func lineOf(text string) line {
-	return line{text, strings.FieldsFunc(text, func(r rune) bool { return strings.ContainsRune(" ,:;()[]=", r) })}
 }
 
 var (
@@ -37,7 +24,7 @@ var (
 
 // modelRun makes so many applications.
 func modelRun(m api.Module, k int, x api.Limit) (api.Module, []api.Applied, api.Errno) {
-	d := newModel(m, k, x.Faults)
+	d := &model{samples.ListingOf(m, k), x.Faults}
 	list, most := []api.Applied{}, x.Most
 	may := func(rule, block, index int) bool {
 		if rule == 0 || most == 0 {
@@ -49,10 +36,10 @@ func modelRun(m api.Module, k int, x api.Limit) (api.Module, []api.Applied, api.
 	}
 	for last := -1; last < len(list); {
 		last = len(list)
-		for b := len(d.blocks) - 1; b >= 0; b-- {
-			for i := len(d.blocks[b]) - 2; i >= 0; i-- {
+		for b := len(d.Blocks) - 1; b >= 0; b-- {
+			for i := len(d.Blocks[b]) - 2; i >= 0; i-- {
 				if may(d.rule(b, i), b, i) {
-					d.blocks[b] = slices.Delete(d.blocks[b], i, i+1)
+					d.Blocks[b] = slices.Delete(d.Blocks[b], i, i+1)
 				}
 			}
 		}
@@ -61,45 +48,13 @@ func modelRun(m api.Module, k int, x api.Limit) (api.Module, []api.Applied, api.
 			d.leave(numbers)
 		}
 	}
-	made, _, e := ir.Parse(d.String())
+	made, e := d.Module()
 	return made, list, e
-}
-
-func newModel(m api.Module, k int, faults []int) *model {
-	text, _ := ir.Print(m)
-	funcs := strings.SplitAfter(text, "}\n")
-	blocks := strings.Split(funcs[k], "\n\tb")
-	d := &model{
-		head:   strings.Join(funcs[:k], "") + blocks[0],
-		decls:  strings.Split(blocks[0], "\n\t")[1:],
-		tail:   "}\n" + strings.Join(funcs[k+1:], ""),
-		faults: faults,
-	}
-	for _, part := range blocks[1:] {
-		var block []line
-		for _, s := range strings.Split(strings.TrimSuffix(part, "\n}\n"), "\n\t\t")[1:] {
-			block = append(block, lineOf(s))
-		}
-		d.blocks = append(d.blocks, block)
-	}
-	return d
-}
-
-func (d *model) String() string {
-	var s strings.Builder
-	s.WriteString(d.head)
-	for b, block := range d.blocks {
-		fmt.Fprintf(&s, "\n\tb%d:", b)
-		for _, l := range block {
-			s.WriteString("\n\t\t" + l.text)
-		}
-	}
-	return s.String() + "\n" + d.tail
 }
 
 // rule returns which rule there is for an instruction, or 0.
 func (d *model) rule(b, i int) int {
-	w := d.blocks[b][i].words
+	w := d.Blocks[b][i].Words
 	switch {
 	case registerName.MatchString(w[0]) && w[1] != "call" && !d.traps(w) && !d.uses(w[0]):
 		return 1
@@ -107,7 +62,7 @@ func (d *model) rule(b, i int) int {
 		return 2
 	case w[0] == "store" && d.isUnread(w[1]):
 		return 3
-	case w[0] == "put" && d.isHidden(w[1], d.blocks[b][i+1:]):
+	case w[0] == "put" && d.isHidden(w[1], d.Blocks[b][i+1:]):
 		return 4
 	}
 	return 0
@@ -119,9 +74,9 @@ func (d *model) traps(w []string) bool {
 
 // uses reports whether a register stands anywhere but where it is defined.
 func (d *model) uses(r string) bool {
-	for _, block := range d.blocks {
+	for _, block := range d.Blocks {
 		for _, l := range block {
-			if i := slices.Index(l.words, r); i > 0 || i == 0 && slices.Contains(l.words[1:], r) {
+			if i := slices.Index(l.Words, r); i > 0 || i == 0 && slices.Contains(l.Words[1:], r) {
 				return true
 			}
 		}
@@ -136,12 +91,12 @@ func isWithin(index, bound string) bool {
 }
 
 func (d *model) isUnread(array string) bool {
-	if n, _ := strconv.Atoi(array[1:]); !strings.HasPrefix(d.decls[n], "local") {
+	if n, _ := strconv.Atoi(array[1:]); !strings.HasPrefix(d.Decls[n], "local") {
 		return false
 	}
-	for _, block := range d.blocks {
+	for _, block := range d.Blocks {
 		for _, l := range block {
-			if l.words[0] != "store" && slices.Contains(l.words, array) {
+			if l.Words[0] != "store" && slices.Contains(l.Words, array) {
 				return false
 			}
 		}
@@ -150,13 +105,13 @@ func (d *model) isUnread(array string) bool {
 }
 
 // isHidden reports whether what is put into a cell is never seen, by the lines behind that.
-func (d *model) isHidden(cell string, behind []line) bool {
+func (d *model) isHidden(cell string, behind []samples.Line) bool {
 	for _, l := range behind {
-		if slices.Contains(l.words, "call") {
+		if slices.Contains(l.Words, "call") {
 			return false
 		}
-		if slices.Contains(l.words, cell) && (l.words[0] == "put" || !slices.Contains(d.faults, api.FtOverGet)) {
-			return l.words[0] == "put"
+		if slices.Contains(l.Words, cell) && (l.Words[0] == "put" || !slices.Contains(d.faults, api.FtOverGet)) {
+			return l.Words[0] == "put"
 		}
 	}
 	return false
@@ -167,16 +122,16 @@ func (d *model) reached() (numbers map[string]int, first int) {
 	numbers = map[string]int{"b0": 0}
 	for count := 0; count < len(numbers); {
 		count = len(numbers)
-		for b, block := range d.blocks {
+		for b, block := range d.Blocks {
 			if _, is := numbers[nameOf(b)]; is {
-				for _, to := range blockName.FindAllString(block[len(block)-1].text, -1) {
+				for _, to := range blockName.FindAllString(block[len(block)-1].Text, -1) {
 					numbers[to] = 0
 				}
 			}
 		}
 	}
 	first, next := -1, 0
-	for b := range d.blocks {
+	for b := range d.Blocks {
 		if _, is := numbers[nameOf(b)]; is {
 			numbers[nameOf(b)] = next
 			next++
@@ -191,16 +146,16 @@ func nameOf(b int) string { return "b" + strconv.Itoa(b) }
 
 // leave leaves out all blocks that have no number.
 func (d *model) leave(numbers map[string]int) {
-	var kept [][]line
-	for b, code := range d.blocks {
+	var kept [][]samples.Line
+	for b, code := range d.Blocks {
 		if _, is := numbers[nameOf(b)]; is {
 			for i, l := range code {
-				code[i] = lineOf(renumber(l.text, numbers))
+				code[i] = samples.LineOf(renumber(l.Text, numbers))
 			}
 			kept = append(kept, code)
 		}
 	}
-	d.blocks = kept
+	d.Blocks = kept
 }
 
 // renumber gives blocks their numbers in a line; what belongs to others in a phi is left out.

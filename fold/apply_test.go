@@ -3,12 +3,10 @@ package fold_test
 import (
 	"fmt"
 	"math"
-	"slices"
 	"strings"
 	"testing"
 
 	"cupel/api"
-	"cupel/ir"
 	"cupel/samples"
 )
 
@@ -99,19 +97,11 @@ func TestMost(t *testing.T) {
 	pass.ExpectSteps(t, "0 regs 4", steps, "b0:1 b0:1 b0:end b0:end/2 b1:0 b2:0 b2:1 b2:1 b2:2")
 }
 
-// P13.1: a second function of a module; others stay as they are.
+// P13.1: one function of a module; others stay as they are.
 func TestOtherFunctions(t *testing.T) {
-	const code = "main h; func f params 0 regs 2 { b0: r0 = 1; r1 = %s; branch %s; b1: return; b2: return; } func g params 0 regs 1 { b0: r0 = 1; print %s; return; } func h params 0 regs 1 { b0: r0 = 1; call f(); call g(); r0 = 1; return; }"
-	m := samples.Read(t, fmt.Sprintf(code, "r0", "r1, b1, b2", "r0"))
-	made, list := pass.Made(t, m, 0, samples.All())
-	if want := samples.Read(t, fmt.Sprintf(strings.Replace(code, "branch %s", "%s", 1), "1", "jump b1", "r0")); !ir.Same(made, want) || !slices.Equal(list, pass.Applied(0, "b0:1 b0:end b0:end/2")) {
-		t.Errorf("%v: %s", list, samples.Text(made))
-	}
-	made, list = pass.Made(t, m, 1, samples.All())
-	if want := samples.Read(t, fmt.Sprintf(code, "r0", "r1, b1, b2", "1")); !ir.Same(made, want) || !slices.Equal(list, pass.Applied(1, "b0:1")) {
-		t.Errorf("%v: %s", list, samples.Text(made))
-	}
-	pass.ExpectError(t, m, 2, samples.All(), api.ErrDown)
+	const text = "main h; func f params 0 regs 2 { b0: r0 = 1; r1 = %s b1: return; b2: return; } func g params 0 regs 1 { b0: r0 = 1; print %s; return; } func h params 0 regs 1 { b0: r0 = 1; call f(); call g(); r0 = 1; return; }"
+	pass.ExpectEach(t, text, samples.Part{Before: "r0; branch r1, b1, b2;", After: "1; jump b1;", Made: "b0:1 b0:end b0:end/2"}, samples.Part{Before: "r0", After: "1", Made: "b0:1"})
+	pass.ExpectError(t, samples.Read(t, strings.NewReplacer("= %s", "= 1; return;", "%s", "1").Replace(text)), 2, samples.All(), api.ErrDown)
 }
 
 // P13.1: there is no greatest number of applications: 59 edges lead to a block with 100 phis.

@@ -17,13 +17,7 @@ func TestMade(t *testing.T) {
 }
 
 // P13.1: functions of up to 60 blocks.
-func TestMadeLong(t *testing.T) {
-	samples.Functions(t, 300, 60, func(m api.Module) {
-		for _, faults := range pass.FaultLists() {
-			pass.ExpectModel(t, m, 0, samples.All(faults...))
-		}
-	})
-}
+func TestMadeLong(t *testing.T) { pass.ExpectModelOfLong(t, 300) }
 
 // P13.1: the functions of programs.
 func TestPrograms(t *testing.T) {

@@ -1,4 +1,4 @@
-// Package parts has what passes on modules share: arguments that are right, records of applications, copies of modules, operands that can be changed, blocks in another order.
+// Package parts has what passes on modules share: arguments that are right, records of applications, sweeps, copies of modules, operands that can be changed, blocks in another order.
 package parts
 
 import (
@@ -71,6 +71,20 @@ func Bounded(pass, k, most int) Record {
 
 // IsLong reports whether there are more than MaxApply applications.
 func (r Record) IsLong() bool { return len(r.List) > api.MaxApply }
+
+// Sweep goes through these blocks of a function, and in each through the indices of its instructions and that behind them, which stands for its end. What changes something at a place reports that it has, and the same place is looked at again. Once something has changed there is another sweep.
+func Sweep(f *api.IFunc, blocks []int, change func(b, i int) bool) {
+	for again := true; again; {
+		again = false
+		for _, b := range blocks {
+			for i := 0; i <= len(f.Blocks[b].Code); i++ {
+				for change(b, i) {
+					again = true
+				}
+			}
+		}
+	}
+}
 
 // Copy returns the same module in new memory.
 func Copy(m api.Module) api.Module {

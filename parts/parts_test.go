@@ -137,6 +137,35 @@ func TestBounded(t *testing.T) {
 	}
 }
 
+// A sweep looks at each place until nothing changes there, also where instructions are left out, and there is another one if anything has changed.
+func TestSweep(t *testing.T) {
+	m := read(t, "main f; func f params 0 regs 0 { b0: print 2; print 9; print 0; jump b2; b1: print 1; return; b2: print 9; branch 1, b1, b1; }")
+	f := &m.Funcs[0]
+	var seen []string
+	parts.Sweep(f, []int{2, 0}, func(b, i int) bool {
+		seen = append(seen, fmt.Sprint(b, ":", i))
+		block := &f.Blocks[b]
+		switch {
+		case i == len(block.Code):
+			is := block.End.Op == api.TmBranch
+			block.End = api.Term{Op: api.TmTrap}
+			return is
+		case block.Code[i].A.Imm == 9:
+			block.Code = slices.Delete(block.Code, i, i+1)
+			return true
+		}
+		block.Code[i].A.Imm--
+		return block.Code[i].A.Imm >= 0
+	})
+	want := "[2:0 2:0 2:0 0:0 0:0 0:0 0:1 0:1 0:2 2:0 0:0 0:1 0:2]"
+	if got := fmt.Sprint(seen); got != want {
+		t.Errorf("%s, want %s", got, want)
+	}
+	if ops := []int{f.Blocks[0].End.Op, f.Blocks[1].End.Op, f.Blocks[2].End.Op}; !slices.Equal(ops, []int{api.TmTrap, api.TmReturn, api.TmTrap}) {
+		t.Errorf("ends %v", ops)
+	}
+}
+
 const code = `cell c = 1; array x[2]; main f; func f params 0 regs 3 { global x; b0: r0 = 5; r0 = add r1, r2; check r0, r1; r0 = load a0[r1]; store a0[r1] = r2; r0 = get c0; put c0 = r1; print r1; branch r1, b1, b1; b1: r0 = phi b0: r1; jump b2; b2: r0 = call g(r2, 4, r1); trap; }
 func g params 3 regs 3 result { b0: branch r0, b1, b2; b1: return r1; b2: return r2; }`
 

@@ -12,7 +12,7 @@ import (
 	"cupel/samples"
 )
 
-// P1 with the rules of memory and state, and with them P13.4, P14.4 and P15.4.
+// P1 with the rules of memory and state, and with them P13.4, P14.4, P15.4 and P16.4.
 
 // limits are different ones; each call has new lists.
 func (p subject) limits() []api.Limit {

@@ -8,7 +8,7 @@ import (
 	"cupel/samples"
 )
 
-// P13.2, P14.2, P15.2: runs stay the same with each number of applications. (Made looks for static single assignment form.)
+// P13.2, P14.2, P15.2, P16.2: runs stay the same with each number of applications. (Made looks for static single assignment form.)
 func TestRunsStay(t *testing.T) {
 	each(t, func(t *testing.T, p subject) {
 		printed, cut := 0, 0
@@ -30,7 +30,7 @@ func TestRunsStay(t *testing.T) {
 	})
 }
 
-// P13.2, P13.3, P14.2, P14.3, P15.2, P15.3: all functions of a module, one after the other, and again.
+// P13.2, P13.3, P14.2, P14.3, P15.2, P15.3, P16.2, P16.3: all functions of a module, one after the other, and again.
 func TestAllFunctions(t *testing.T) {
 	each(t, func(t *testing.T, p subject) {
 		count := 0
@@ -47,7 +47,7 @@ func TestAllFunctions(t *testing.T) {
 				p.expectNoMore(t, m, k)
 			}
 		}
-		samples.Functions(t, 600, 60, look)
+		samples.Functions(t, 1300, 60, look)
 		samples.Programs(200, look)
 		if count < 10000 {
 			t.Errorf("%d applications", count)
@@ -63,7 +63,7 @@ func (p subject) expectNoMore(t *testing.T, m api.Module, k int) {
 	}
 }
 
-// P13.2, P14.2, P15.2: with each fault, some functions do something else.
+// P13.2, P14.2, P15.2, P16.2: with each fault, some functions do something else.
 func TestFaultsDiffer(t *testing.T) {
 	each(t, func(t *testing.T, p subject) {
 		for _, fault := range p.Faults {

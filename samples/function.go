@@ -17,6 +17,8 @@ type maker struct {
 	g     api.Graph
 	sites []site // where the registers after the parameters are defined
 	most  int    // how likely operations are, besides all other instructions
+
+	chained map[*api.Instr]bool // operations that are in a chain
 }
 
 type site struct{ block, index int }
@@ -45,6 +47,9 @@ func Function(t T, seed uint64, blocks int) api.Module {
 		if !k.isReached(b) {
 			k.operands(b)
 		}
+	}
+	if k.IntN(2) == 0 {
+		k.chains()
 	}
 	if e := ssa.Check(m, 0); e != api.OK {
 		t.Fatalf("seed %d, %d blocks: error %d of %+v", seed, blocks, e, m)

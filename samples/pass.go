@@ -118,6 +118,33 @@ func (p Pass) ExpectSteps(t T, head string, bodies []string, made string) {
 	}
 }
 
+// Part is what one function of a text is before and after all applications, and these.
+type Part struct{ Before, After, Made string }
+
+// ExpectEach wants of the first functions of a module what their parts say, of each one alone while the others stay as they are, and runs to stay the same. The text of the module has a %s for each part.
+func (p Pass) ExpectEach(t T, text string, list ...Part) {
+	t.Helper()
+	fill := func(changed int) api.Module {
+		filled := text
+		for k, part := range list {
+			code := part.Before
+			if k == changed {
+				code = part.After
+			}
+			filled = strings.Replace(filled, "%s", code, 1)
+		}
+		return Read(t, filled)
+	}
+	m := fill(-1)
+	for k, part := range list {
+		made, applied := p.Made(t, m, k, All())
+		if !ir.Same(made, fill(k)) || !slices.Equal(applied, p.Applied(k, part.Made)) {
+			t.Errorf("Run of %d: %v, want %s\n%s", k, applied, part.Made, Text(made))
+		}
+		ExpectKept(t, m, made)
+	}
+}
+
 // Applied reads a list of applications for a function: b1:2/3 is that of the rule 3 at the instruction 2 of the block 1, b1:end that of the rule 1 at its end.
 func (p Pass) Applied(k int, words string) []api.Applied {
 	var list []api.Applied
@@ -191,6 +218,16 @@ func (p Pass) ExpectModelOf(t T, count, blocks int) Count {
 		turn++
 	})
 	return c
+}
+
+// ExpectModelOfLong wants what the model says of functions of up to 60 blocks.
+func (p Pass) ExpectModelOfLong(t T, count int) {
+	t.Helper()
+	Functions(t, count, api.MaxIBlocks, func(m api.Module) {
+		for _, faults := range p.FaultLists() {
+			p.ExpectModel(t, m, 0, All(faults...))
+		}
+	})
 }
 
 // ExpectModelOfPrograms wants what the model says of the functions of generated programs, and returns how many applications there were.

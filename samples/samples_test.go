@@ -85,6 +85,77 @@ func TestFunctions(t *testing.T) {
 	}
 }
 
+// Many operations, checks and branches are of what others have as their results.
+func TestChains(t *testing.T) {
+	counts := map[string]int{}
+	samples.Functions(t, 600, 14, func(m api.Module) {
+		made := map[int]api.Instr{}
+		for _, block := range m.Funcs[0].Blocks {
+			for _, x := range block.Code {
+				if x.Op == api.IxBin {
+					made[x.To] = x
+				}
+			}
+		}
+		isBy := func(x api.Instr, kinds ...int) bool { return slices.Contains(kinds, x.Kind) && x.B.Reg < 0 }
+		for _, block := range m.Funcs[0].Blocks {
+			for _, x := range block.Code {
+				y := made[x.A.Reg]
+				switch {
+				case x.Op == api.IxBin && isBy(x, y.Kind) && isBy(y, y.Kind):
+					counts["the same by constants"]++
+				case x.Op == api.IxBin && isBy(x, api.IbEq, api.IbNe) && y.Kind >= api.IbEq:
+					counts["comparisons"]++
+				case x.Op == api.IxCheck && isBy(y, api.IbAnd):
+					counts["masks"]++
+				case x.Op == api.IxPrint && y.Op == api.IxBin:
+					counts["prints"]++
+				}
+			}
+			if y := made[block.End.A.Reg]; block.End.Op == api.TmBranch && isBy(y, api.IbEq, api.IbNe) {
+				counts["branches"]++
+			}
+		}
+	})
+	for _, what := range []string{"the same by constants", "comparisons", "masks", "prints", "branches"} {
+		if counts[what] < 15 {
+			t.Errorf("%v", counts)
+		}
+	}
+}
+
+// A listing has the lines of a function, and is read again with those that have changed.
+func TestListing(t *testing.T) {
+	m := samples.Of(t, "1 regs 3", "b0: r1 = add r0, -1; store a0[r1] = 2; branch r1, b1, b1; b1: r2 = phi b0: r1; call g(r2, 1; a0); return;")
+	for k := range m.Funcs {
+		if made, e := samples.ListingOf(m, k).Module(); e != api.OK || !ir.Same(made, m) {
+			t.Errorf("%d: error %d: %s", k, e, samples.Text(made))
+		}
+	}
+	l := samples.ListingOf(m, 0)
+	if want := []string{"local[2];", "local[3] small;", "global x;", "global y;"}; !slices.Equal(l.Decls, want) {
+		t.Errorf("%q", l.Decls)
+	}
+	var words []string
+	for _, block := range l.Blocks {
+		for _, line := range block {
+			words = append(words, strings.Join(line.Words, "|"))
+		}
+	}
+	if want := []string{"r1|add|r0|-1", "store|a0|r1|2", "branch|r1|b1|b1", "r2|phi|b0|r1", "call|g|r2|1|a0", "return"}; !slices.Equal(words, want) {
+		t.Errorf("%q", words)
+	}
+	l.Blocks[0][1], l.Blocks[0][2] = samples.LineOf("print 7;"), samples.LineOf("jump b1;")
+	want := samples.Of(t, "1 regs 3", "b0: r1 = add r0, -1; print 7; jump b1; b1: r2 = phi b0: r1; call g(r2, 1; a0); return;")
+	if made, e := l.Module(); e != api.OK || !ir.Same(made, want) {
+		t.Errorf("error %d: %s", e, samples.Text(made))
+	}
+	l.Blocks[1][0] = samples.LineOf("prints 7;")
+	if _, e := l.Module(); e != api.ErrForm {
+		t.Errorf("error %d", e)
+	}
+}
+
 func TestPrograms(t *testing.T) {
 	count, phis := 0, 0
 	samples.Programs(40, func(m api.Module) {
@@ -108,6 +179,11 @@ const (
 
 // steps are the bodies after 0, 1, 2 applications.
 var steps = []string{before, strings.Replace(after, "3", "r1", 1), after}
+
+// two is a text of two functions, which the parts are for.
+const two = "main f; func f params 0 regs 1 { b0: r0 = 7; print %s; return; } func g params 0 regs 2 { b0: r1 = %s; return; }"
+
+var first, second = samples.Part{Before: "r0", After: "7", Made: "b0:1"}, samples.Part{Before: "8; print r1", After: "8; print 8", Made: "b0:1"}
 
 // A pass is compared with what it has to make, and applications with theirs.
 func TestPass(t *testing.T) {
@@ -134,7 +210,13 @@ func TestPass(t *testing.T) {
 		{"another error", func(t samples.T) { p.ExpectError(t, m, 9, samples.All(), api.ErrDown) }, 1},
 		{"no error", func(t samples.T) { p.ExpectError(t, m, 0, samples.All(), api.OK) }, 1},
 		{"an error where none is expected", func(t samples.T) { p.Made(t, m, 9, samples.All()) }, 1},
+		{"functions", func(t samples.T) { p.ExpectEach(t, two, first, second) }, 0},
+		{"another function of them", func(t samples.T) { p.ExpectEach(t, two, first, first) }, 1},
+		{"other applications of functions", func(t samples.T) {
+			p.ExpectEach(t, two, samples.Part{Before: "r0", After: "7", Made: "b0:1/2"}, second)
+		}, 1},
 		{"a model", func(t samples.T) { p.ExpectModel(t, m, 0, samples.All()) }, 0},
+		{"a model of long functions", func(t samples.T) { p.ExpectModelOfLong(t, 70) }, 0},
 		{"the same run", func(t samples.T) { samples.ExpectKept(t, m, samples.Of(t, head, after)) }, 0},
 		{"another run", func(t samples.T) {
 			samples.ExpectKept(t, m, samples.Of(t, head, strings.Replace(after, "3", "4", 1)))
@@ -151,8 +233,13 @@ func TestPass(t *testing.T) {
 	}
 	other := p
 	other.Model = func(m api.Module, k int, x api.Limit) (api.Module, []api.Applied, api.Errno) { return m, nil, api.OK }
-	if list := told(func(t samples.T) { other.ExpectModel(t, m, 0, samples.All()) }); len(list) != 1 {
-		t.Errorf("another model: %q", list)
+	for _, ask := range []func(t samples.T){
+		func(t samples.T) { other.ExpectModel(t, m, 0, samples.All()) },
+		func(t samples.T) { other.ExpectModelOfLong(t, 70) },
+	} {
+		if list := told(ask); len(list) != 1 {
+			t.Errorf("another model: %q", list)
+		}
 	}
 }
 
