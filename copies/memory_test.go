@@ -108,7 +108,7 @@ func f params 1 regs 3 { param[2]; param[2] small; b0: store a0[0] = r0; store a
 	if want := samples.Read(t, fmt.Sprintf(code, "r0", "r0")); !ir.Same(made, want) || len(list) != 2 {
 		t.Errorf("%v: %s", list, samples.Text(made))
 	}
-	samples.ExpectKept(t, m, made)
+	pass.ExpectKept(t, m, made)
 }
 
 // P14.1, rule 5: with a fault, stores of other elements do not matter.

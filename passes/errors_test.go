@@ -20,7 +20,7 @@ func wrongLimits() []api.Limit {
 	return list
 }
 
-// P13.1, P14.1, P15.1, P16.1: limits that are not right.
+// P13.1, P14.1, P15.1, P16.1, P17.1: limits that are not right.
 func TestWrongLimits(t *testing.T) {
 	each(t, func(t *testing.T, p subject) {
 		m := samples.Read(t, many)
@@ -32,7 +32,7 @@ func TestWrongLimits(t *testing.T) {
 	})
 }
 
-// P13.1, P14.1, P15.1, P16.1: limits that are right: faults of other layers do not matter, and the first applications are made.
+// P13.1, P14.1, P15.1, P16.1, P17.1: limits that are right: faults of other layers do not matter, and the first applications are made.
 func TestLimits(t *testing.T) {
 	each(t, func(t *testing.T, p subject) {
 		m := samples.Read(t, many)
@@ -61,7 +61,7 @@ func TestLimits(t *testing.T) {
 	})
 }
 
-// P13.1, P14.1, P15.1, P16.1: the error of ir.Check comes first, then that of the arguments, then that of the form, whatever Most is.
+// P13.1, P14.1, P15.1, P16.1, P17.1: the error of ir.Check comes first, then that of the arguments, then that of the form, whatever Most is.
 func TestOrderOfErrors(t *testing.T) {
 	wrong := []struct {
 		change func(m *api.Module)
@@ -98,7 +98,7 @@ func TestOrderOfErrors(t *testing.T) {
 	})
 }
 
-// P13.1, P14.1, P15.1, P16.1: functions that are not in static single assignment form.
+// P13.1, P14.1, P15.1, P16.1, P17.1: functions that are not in static single assignment form.
 func TestForm(t *testing.T) {
 	each(t, func(t *testing.T, p subject) {
 		for _, body := range []string{
@@ -134,7 +134,7 @@ func change(m *api.Module, dice *samples.Dice, value int64) {
 	}
 }
 
-// P13.4, P14.4, P15.4, P16.4, R1: passes return for modules in which anything was changed, valid or not, and any other arguments.
+// P13.4, P14.4, P15.4, P16.4, P17.4, R1: passes return for modules in which anything was changed, valid or not, and any other arguments.
 func TestAllReturn(t *testing.T) {
 	values := []int64{math.MinInt, -2, -1, 0, 1, 2, 3, 4, 5, 9, 14, 15, 16, 300, 301, math.MaxInt}
 	each(t, func(t *testing.T, p subject) {

@@ -1,4 +1,4 @@
-// What all passes on functions in static single assignment form promise alike: P13.2 to P13.4, P14.2 to P14.4, P15.2 to P15.4, P16.2 to P16.4, the order of the errors of P13.1, P14.1, P15.1 and P16.1, and P1 for them.
+// What all passes on functions in static single assignment form promise alike: P13.2 to P13.4, P14.2 to P14.4, P15.2 to P15.4, P16.2 to P16.4, P17.2 to P17.4, the order of the errors of P13.1, P14.1, P15.1, P16.1 and P17.1, and P1 for them.
 
 package passes
 
@@ -10,6 +10,7 @@ import (
 	"cupel/copies"
 	"cupel/dead"
 	"cupel/fold"
+	"cupel/hoist"
 	"cupel/ir"
 	"cupel/peep"
 	"cupel/samples"
@@ -27,7 +28,19 @@ func subjects() []subject {
 		{"copies", samples.Pass{Number: api.PsCopies, Run: copies.Run, Faults: []int{api.FtMinus, api.FtOverStore, api.FtOverCall}}},
 		{"dead", samples.Pass{Number: api.PsDead, Run: dead.Run, Faults: []int{api.FtDivision, api.FtOverGet}}},
 		{"peep", samples.Pass{Number: api.PsPeep, Run: peep.Run, Faults: []int{api.FtShift, api.FtNotLess}}},
+		{"hoist", samples.Pass{Number: api.PsHoist, Run: hoist.Run, Faults: []int{api.FtStores, api.FtTrap}, Steps: func(before int) int { return 100*before + 100 }}},
 	}
+}
+
+// grows reports whether a pass may make blocks and registers.
+func (p subject) grows() bool { return p.Number == api.PsHoist }
+
+// blocks returns how many blocks the functions have at most that a pass is tested with: so few that it may make more.
+func (p subject) blocks() int {
+	if p.grows() {
+		return 40
+	}
+	return api.MaxIBlocks
 }
 
 // each runs a test for each pass.
@@ -37,11 +50,11 @@ func each(t *testing.T, test func(t *testing.T, p subject)) {
 	}
 }
 
-// many has cells, arrays of each kind, calls, all instructions, constants, copies, phis of one operand, instructions that are equal, or not used, or without an effect, operations of what others have as their results, branches by constants and comparisons, blocks that are not reached, and loops; the function m is not in static single assignment form.
+// many has cells, arrays of each kind, calls, all instructions, constants, copies, phis of one operand, instructions that are equal, or not used, or without an effect, operations of what others have as their results, branches by constants and comparisons, blocks that are not reached, and a loop with what is the same each time; the function m is not in static single assignment form.
 const many = `cell c = 5; array x[2] small; main m;
 func m params 0 regs 3 { local[2]; b0: r0 = get c0; r0 = add r0, 1; r1 = call g(r0, 2; a0); r1 = call h(1; a0); call f(); return; }
 func g params 2 regs 7 result { param[2]; b0: r2 = 1; store a0[r2] = r2; r3 = load a0[r0]; check r2, 7; branch r2, b1, b2; b1: jump b3; b2: jump b3; b3: r4 = phi b1: r2, b2: r1; check 1, 7; check r2, 7; r5 = load a0[r0]; r6 = load a0[r0]; return r4; }
-func f params 0 regs 11 { global x; local[3]; b0: r0 = 3; r1 = div r0, 0; put c0 = r0; r7 = get c0; print r7; put c0 = 4; r10 = rem 1, r0; store a1[0] = r0; jump b1; b1: r2 = phi b0: 1, b2: r4, b5: r6; r3 = phi b0: r1, b2: r2, b5: 4; r8 = phi b0: r7, b2: r8, b5: r7; r4 = or r2, 1; branch r4, b2, b3; b2: r9 = or 1, r2; branch r3, b1, b4; b3: jump b4; b4: return; b5: r6 = r0; branch 1, b1, b2; }
+func f params 0 regs 13 { global x; local[3]; b0: r0 = 3; r1 = div r0, 0; put c0 = r0; r7 = get c0; print r7; put c0 = 4; r10 = rem 1, r0; store a1[0] = r0; jump b1; b1: r2 = phi b0: 1, b2: r4, b5: r6; r3 = phi b0: r1, b2: r2, b5: 4; r8 = phi b0: r7, b2: r8, b5: r7; r4 = or r2, 1; branch r4, b2, b3; b2: r9 = or 1, r2; r11 = mul r0, r0; r12 = load a1[r11]; print r12; branch r3, b1, b4; b3: jump b4; b4: return; b5: r6 = r0; branch 1, b1, b2; }
 func h params 1 regs 12 result { param[2]; b0: r1 = 2; r2 = call g(r1, r0; a0); branch r0, b1, b1; b1: r3 = phi b0: r1; r5 = phi b0: r2; r4 = lt r3, r3; r6 = lt 2, r5; r7 = and 3, r5; check r7, 4; r8 = lt r7, 2; r9 = eq r8, 0; r10 = div r9, 4; r11 = eq r10, 0; branch r11, b2, b3; b2: return r4; b3: return r9; }`
 
 // answer is what a pass returns.

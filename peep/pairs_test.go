@@ -43,7 +43,7 @@ func TestPairs(t *testing.T) {
 				head, body := pairs(form, first, second)
 				m := samples.Of(t, head, body)
 				made, _ := pass.ExpectModel(t, m, 0, samples.All())
-				samples.ExpectKept(t, m, made)
+				pass.ExpectKept(t, m, made)
 				pass.ExpectModel(t, m, 0, samples.All(pass.Faults...))
 			}
 		}

@@ -46,6 +46,14 @@ func LineOf(text string) Line {
 	return Line{text, strings.FieldsFunc(text, func(r rune) bool { return strings.ContainsRune(" ,:;()[]=", r) })}
 }
 
+// AddRegister gives the function one more register, and returns its name.
+func (l *Listing) AddRegister() string {
+	i := strings.LastIndex(l.head, " regs ") + len(" regs ")
+	count, behind, _ := strings.Cut(l.head[i:], " ")
+	l.head = l.head[:i] + strconv.Itoa(number(count, 0)+1) + " " + behind
+	return "r" + count
+}
+
 // Module returns the module of a listing.
 func (l Listing) Module() (api.Module, api.Errno) {
 	var s strings.Builder

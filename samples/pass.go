@@ -14,12 +14,13 @@ import (
 // Work is what a pass does to a function of a module.
 type Work func(m api.Module, k int, x api.Limit) (api.Module, []api.Applied, api.Errno)
 
-// Pass is a pass on functions in static single assignment form, with its number, the faults that it looks at, and what it has to do by another account, if there is one.
+// Pass is a pass on functions in static single assignment form, with its number, the faults that it looks at, what it has to do by another account, if there is one, and how many steps what it makes may need for so many before, if not as many.
 type Pass struct {
 	Number int
 	Run    Work
 	Faults []int
 	Model  Work
+	Steps  func(before int) int
 }
 
 // FaultLists returns all lists of faults of a pass, the one without any first.
@@ -55,14 +56,25 @@ func (p Pass) ExpectError(t T, m api.Module, k int, x api.Limit, want api.Errno)
 	}
 }
 
-// Row is a function before and after all applications, and these.
+// Row is a function before and after all applications, and these. If it gets another head, there are two, as in "1 regs 2 / 1 regs 3".
 type Row struct{ What, Head, Before, After, Made string }
+
+// modules returns those of a row, before and after.
+func (r Row) modules(t T) (before, after api.Module) {
+	t.Helper()
+	head, other, two := strings.Cut(r.Head, " / ")
+	if !two {
+		other = head
+	}
+	return Of(t, head, r.Before), Of(t, other, r.After)
+}
 
 // Expect wants what a row says of the function 0 of Of.
 func (p Pass) Expect(t T, x api.Limit, r Row) {
 	t.Helper()
-	made, list := p.Made(t, Of(t, r.Head, r.Before), 0, x)
-	if want := Of(t, r.Head, r.After); !ir.Same(made, want) {
+	before, after := r.modules(t)
+	made, list := p.Made(t, before, 0, x)
+	if !ir.Same(made, after) {
 		t.Errorf("%s: Run of %s\nis %s", r.What, r.Before, Text(made))
 	}
 	if want := p.Applied(0, r.Made); !slices.Equal(list, want) {
@@ -74,7 +86,8 @@ func (p Pass) Expect(t T, x api.Limit, r Row) {
 func (p Pass) ExpectSound(t T, r Row) {
 	t.Helper()
 	p.Expect(t, All(), r)
-	ExpectKept(t, Of(t, r.Head, r.Before), Of(t, r.Head, r.After))
+	before, after := r.modules(t)
+	p.ExpectKept(t, before, after)
 }
 
 // fields are those of a Row. Tests have a type of their own with them, so that they can write rows without the names of fields.
@@ -114,7 +127,7 @@ func (p Pass) ExpectSteps(t T, head string, bodies []string, made string) {
 		p.Expect(t, api.Limit{Most: most}, Row{"Most " + strconv.Itoa(most), head, bodies[0], bodies[count], strings.Join(words[:count], " ")})
 	}
 	for _, body := range bodies {
-		ExpectKept(t, Of(t, head, bodies[0]), Of(t, head, body))
+		p.ExpectKept(t, Of(t, head, bodies[0]), Of(t, head, body))
 	}
 }
 
@@ -141,7 +154,7 @@ func (p Pass) ExpectEach(t T, text string, list ...Part) {
 		if !ir.Same(made, fill(k)) || !slices.Equal(applied, p.Applied(k, part.Made)) {
 			t.Errorf("Run of %d: %v, want %s\n%s", k, applied, part.Made, Text(made))
 		}
-		ExpectKept(t, m, made)
+		p.ExpectKept(t, m, made)
 	}
 }
 
@@ -164,11 +177,15 @@ func number(text string, otherwise int) int {
 	return otherwise
 }
 
-// ExpectModel wants of a pass what the model says, and returns it.
+// ExpectModel wants of a pass what the model says, and returns it: nothing if that is an error.
 func (p Pass) ExpectModel(t T, m api.Module, k int, x api.Limit) (api.Module, []api.Applied) {
 	t.Helper()
+	want, wantList, e := p.Model(m, k, x)
+	if e != api.OK {
+		p.ExpectError(t, m, k, x, e)
+		return api.Module{}, nil
+	}
 	got, list := p.Made(t, m, k, x)
-	want, wantList, _ := p.Model(m, k, x)
 	if !ir.Same(got, want) || !slices.Equal(list, wantList) {
 		t.Fatalf("%s\nRun of %d, %v: is\n%s\n%v\nwant\n%s\n%v", Text(m), k, x, Text(got), list, Text(want), wantList)
 	}

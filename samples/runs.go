@@ -15,11 +15,15 @@ func Run(t T, m api.Module, steps int) api.Behaviour {
 	return b
 }
 
-// IsKept reports whether a module does what another one does that it was made of, with as many steps: where that one ends, it does.
-func IsKept(t T, m, made api.Module) bool {
+// IsKept reports whether a module does what another one does that a pass has made it of: where that one ends, it does, with as many steps as it may need.
+func (p Pass) IsKept(t T, m, made api.Module) bool {
 	t.Helper()
 	for _, steps := range []int{0, 1, 2, 5, 12, 40, 150, 700} {
-		a, b := Run(t, m, steps), Run(t, made, steps)
+		need := steps
+		if p.Steps != nil {
+			need = p.Steps(steps)
+		}
+		a, b := Run(t, m, steps), Run(t, made, need)
 		if !irsem.Agree(a, b) || a.End != api.EnSteps && a.End != b.End {
 			return false
 		}
@@ -28,9 +32,9 @@ func IsKept(t T, m, made api.Module) bool {
 }
 
 // ExpectKept wants IsKept.
-func ExpectKept(t T, m, made api.Module) {
+func (p Pass) ExpectKept(t T, m, made api.Module) {
 	t.Helper()
-	if !IsKept(t, m, made) {
+	if !p.IsKept(t, m, made) {
 		t.Fatalf("%s\ndoes something else than\n%s", Text(made), Text(m))
 	}
 }

@@ -150,6 +150,13 @@ func TestListing(t *testing.T) {
 	if made, e := l.Module(); e != api.OK || !ir.Same(made, want) {
 		t.Errorf("error %d: %s", e, samples.Text(made))
 	}
+	name := samples.ListingOf(want, 0)
+	if a, b := name.AddRegister(), name.AddRegister(); a != "r3" || b != "r4" {
+		t.Errorf("registers %s, %s", a, b)
+	}
+	if made, e := name.Module(); e != api.OK || !ir.Same(made, samples.Of(t, "1 regs 5", "b0: r1 = add r0, -1; print 7; jump b1; b1: r2 = phi b0: r1; call g(r2, 1; a0); return;")) {
+		t.Errorf("error %d: %s", e, samples.Text(made))
+	}
 	l.Blocks[1][0] = samples.LineOf("prints 7;")
 	if _, e := l.Module(); e != api.ErrForm {
 		t.Errorf("error %d", e)
@@ -217,14 +224,14 @@ func TestPass(t *testing.T) {
 		}, 1},
 		{"a model", func(t samples.T) { p.ExpectModel(t, m, 0, samples.All()) }, 0},
 		{"a model of long functions", func(t samples.T) { p.ExpectModelOfLong(t, 70) }, 0},
-		{"the same run", func(t samples.T) { samples.ExpectKept(t, m, samples.Of(t, head, after)) }, 0},
+		{"the same run", func(t samples.T) { p.ExpectKept(t, m, samples.Of(t, head, after)) }, 0},
 		{"another run", func(t samples.T) {
-			samples.ExpectKept(t, m, samples.Of(t, head, strings.Replace(after, "3", "4", 1)))
+			p.ExpectKept(t, m, samples.Of(t, head, strings.Replace(after, "3", "4", 1)))
 		}, 1},
 		{"another end", func(t samples.T) {
-			samples.ExpectKept(t, m, samples.Of(t, head, strings.Replace(before, "return", "trap", 1)))
+			p.ExpectKept(t, m, samples.Of(t, head, strings.Replace(before, "return", "trap", 1)))
 		}, 1},
-		{"a run that is cut short", func(t samples.T) { samples.ExpectKept(t, m, samples.Of(t, head, "b0: jump b1; b1: jump b1;")) }, 1},
+		{"a run that is cut short", func(t samples.T) { p.ExpectKept(t, m, samples.Of(t, head, "b0: jump b1; b1: jump b1;")) }, 1},
 		{"no text", func(t samples.T) { samples.Read(t, "main") }, 1},
 	} {
 		if list := told(c.ask); len(list) != c.want {
@@ -239,6 +246,48 @@ func TestPass(t *testing.T) {
 	} {
 		if list := told(ask); len(list) != 1 {
 			t.Errorf("another model: %q", list)
+		}
+	}
+}
+
+// A pass may make a function that gets another head, that needs more steps, or none at all.
+func TestGrowingPass(t *testing.T) {
+	grows := func(m api.Module, k int, x api.Limit) (api.Module, []api.Applied, api.Errno) {
+		made := parts.Copy(m)
+		f := &made.Funcs[k]
+		if f.Regs++; f.Regs > 5 {
+			return api.Module{}, nil, api.ErrLong
+		}
+		f.Blocks[0].Code = slices.Insert(f.Blocks[0].Code, 0, slices.Repeat([]api.Instr{{Op: api.IxPut, To: -1, A: api.Opd{Reg: -1, Imm: 5}}}, 9)...)
+		return made, nil, api.OK
+	}
+	p := samples.Pass{Run: grows, Model: grows, Steps: func(before int) int { return 10 * before }}
+	hurried, fails, never := p, p, p
+	hurried.Steps = nil
+	fails.Run = func(api.Module, int, api.Limit) (api.Module, []api.Applied, api.Errno) {
+		return api.Module{}, nil, api.ErrLong
+	}
+	never.Model = fails.Run
+	row := samples.Row{Head: "0 regs 2 / 0 regs 3", Before: before, After: strings.Replace(before, "b0:", "b0: "+strings.Repeat("put c0 = 5; ", 9), 1)}
+	oneHead := row
+	oneHead.Head = head
+	small, great := samples.Of(t, head, before), samples.Of(t, "0 regs 5", before)
+	for _, c := range []struct {
+		what string
+		ask  func(t samples.T)
+		want int // how many things are wrong
+	}{
+		{"two heads", func(t samples.T) { p.ExpectSound(t, row) }, 0},
+		{"one head", func(t samples.T) { p.ExpectSound(t, oneHead) }, 1},
+		{"too few steps", func(t samples.T) { hurried.ExpectSound(t, row) }, 1},
+		{"another run", func(t samples.T) { p.ExpectKept(t, small, samples.Of(t, head, "b0: trap;")) }, 1},
+		{"the same", func(t samples.T) { p.ExpectModel(t, small, 0, samples.All()) }, 0},
+		{"the same error", func(t samples.T) { p.ExpectModel(t, great, 0, samples.All()) }, 0},
+		{"an error of the pass", func(t samples.T) { fails.ExpectModel(t, small, 0, samples.All()) }, 1},
+		{"an error of the model", func(t samples.T) { never.ExpectModel(t, small, 0, samples.All()) }, 1},
+	} {
+		if list := told(c.ask); len(list) != c.want {
+			t.Errorf("%s: %q", c.what, list)
 		}
 	}
 }
