@@ -8,6 +8,7 @@ import (
 
 	"cupel/api"
 	"cupel/ir"
+	"cupel/parts"
 	"cupel/samples"
 )
 
@@ -28,11 +29,7 @@ func sized(t *testing.T, n size) api.Module {
 // sizeOf returns how much the function 0 has.
 func sizeOf(m api.Module) size {
 	f := m.Funcs[0]
-	n := size{len(f.Blocks), f.Regs, 0}
-	for _, b := range f.Blocks {
-		n.instrs += len(b.Code)
-	}
-	return n
+	return size{len(f.Blocks), f.Regs, parts.Instructions(f)}
 }
 
 // P17.1: ErrLong, if an application that is to be made would make too much, and not otherwise.

@@ -1,4 +1,4 @@
-// Package parts has what passes on modules share: arguments that are right, records of applications, sweeps, copies of modules, operands that can be changed, blocks in another order.
+// Package parts has what passes on modules share: arguments that are right, records of applications, sweeps, copies of modules, counts, operands that can be changed, blocks in another order.
 package parts
 
 import (
@@ -90,13 +90,18 @@ func Sweep(f *api.IFunc, blocks []int, change func(b, i int) bool) {
 func Copy(m api.Module) api.Module {
 	m.Cells, m.Arrays, m.Funcs = slices.Clone(m.Cells), slices.Clone(m.Arrays), slices.Clone(m.Funcs)
 	for i := range m.Funcs {
-		f := &m.Funcs[i]
-		f.Arrays, f.Blocks = slices.Clone(f.Arrays), slices.Clone(f.Blocks)
-		for b := range f.Blocks {
-			f.Blocks[b].Code = copyCode(f.Blocks[b].Code)
-		}
+		m.Funcs[i] = CopyFunc(m.Funcs[i])
 	}
 	return m
+}
+
+// CopyFunc returns the same function in new memory.
+func CopyFunc(f api.IFunc) api.IFunc {
+	f.Arrays, f.Blocks = slices.Clone(f.Arrays), slices.Clone(f.Blocks)
+	for b := range f.Blocks {
+		f.Blocks[b].Code = copyCode(f.Blocks[b].Code)
+	}
+	return f
 }
 
 func copyCode(list []api.Instr) []api.Instr {
@@ -150,6 +155,20 @@ func Phis(b api.Block) int {
 		}
 	}
 	return len(b.Code)
+}
+
+// HasPhi reports whether a function has a phi.
+func HasPhi(f api.IFunc) bool {
+	return slices.ContainsFunc(f.Blocks, func(b api.Block) bool { return Phis(b) > 0 })
+}
+
+// Instructions returns how many instructions a function has.
+func Instructions(f api.IFunc) int {
+	count := 0
+	for _, b := range f.Blocks {
+		count += len(b.Code)
+	}
+	return count
 }
 
 // Arrange gives a function these blocks of it alone, in this order. Ends lead to none of the others; what belongs to others in phis is left out.

@@ -218,6 +218,30 @@ func TestCopy(t *testing.T) {
 	}
 }
 
+// A copy of a function does not change with what it is a copy of.
+func TestCopyFunc(t *testing.T) {
+	m := read(t, code)
+	f := parts.CopyFunc(m.Funcs[0])
+	m.Funcs[0].Blocks[0].Code[0].To, m.Funcs[0].Arrays[0].Global, m.Funcs[0].Blocks[1].Code[0].Args[0].Reg = 2, 1, 2
+	m.Funcs[0] = f
+	if !ir.Same(m, read(t, code)) {
+		t.Errorf("%v", f)
+	}
+}
+
+// What functions have is counted in all their blocks.
+func TestCounts(t *testing.T) {
+	m := read(t, code)
+	for k, want := range []int{10, 0} {
+		if n := parts.Instructions(m.Funcs[k]); n != want {
+			t.Errorf("%d instructions of %d, want %d", n, k, want)
+		}
+		if is := parts.HasPhi(m.Funcs[k]); is != (k == 0) {
+			t.Errorf("%d has a phi: %v", k, is)
+		}
+	}
+}
+
 // Blocks are put in another order, others are left out.
 func TestArrange(t *testing.T) {
 	const head = "main f; func f params 0 regs 1 { "

@@ -8,6 +8,7 @@ import (
 
 	"cupel/api"
 	"cupel/ir"
+	"cupel/parts"
 	"cupel/samples"
 	"cupel/ssa"
 )
@@ -20,10 +21,10 @@ func wrongLimits() []api.Limit {
 	return list
 }
 
-// P13.1, P14.1, P15.1, P16.1, P17.1: limits that are not right.
+// P13.1, P14.1, P15.1, P16.1, P17.1, P18.1: limits that are not right.
 func TestWrongLimits(t *testing.T) {
 	each(t, func(t *testing.T, p subject) {
-		m := samples.Read(t, many)
+		m := samples.Read(t, p.many())
 		for k := -1; k <= len(m.Funcs); k++ {
 			for _, x := range wrongLimits() {
 				p.ExpectError(t, m, k, x, api.ErrArg)
@@ -32,10 +33,10 @@ func TestWrongLimits(t *testing.T) {
 	})
 }
 
-// P13.1, P14.1, P15.1, P16.1, P17.1: limits that are right: faults of other layers do not matter, and the first applications are made.
+// P13.1, P14.1, P15.1, P16.1, P17.1, P18.1: limits that are right: faults of other layers do not matter, and the first applications are made.
 func TestLimits(t *testing.T) {
 	each(t, func(t *testing.T, p subject) {
-		m := samples.Read(t, many)
+		m := samples.Read(t, p.many())
 		var faults, own []int
 		for fault := range api.MaxFaults + 1 {
 			if slices.Contains(p.Faults, fault) {
@@ -61,7 +62,7 @@ func TestLimits(t *testing.T) {
 	})
 }
 
-// P13.1, P14.1, P15.1, P16.1, P17.1: the error of ir.Check comes first, then that of the arguments, then that of the form, whatever Most is.
+// P13.1, P14.1, P15.1, P16.1, P17.1, P18.1: the error of ir.Check comes first, then that of the arguments, then that of the form, whatever Most is.
 func TestOrderOfErrors(t *testing.T) {
 	wrong := []struct {
 		change func(m *api.Module)
@@ -71,23 +72,24 @@ func TestOrderOfErrors(t *testing.T) {
 		{func(m *api.Module) { m.Funcs = nil }, api.ErrArg},
 		{func(m *api.Module) { m.Funcs[3].Regs = 301 }, api.ErrLong},
 		{func(m *api.Module) { m.Funcs[1].Name = "m" }, api.ErrArg},
-		{func(m *api.Module) { m.Funcs[2].Blocks[1].Code[0].From[1] = 3 }, api.ErrArg},
+		{func(m *api.Module) { m.Funcs[2].Blocks[1].End.To = 0 }, api.ErrArg},
+		{func(m *api.Module) { phiOf(m).From[0] = 3 }, api.ErrArg},
 		{func(m *api.Module) { m.Cells = make([]api.Cell, 41) }, api.ErrLong},
 	}
 	each(t, func(t *testing.T, p subject) {
 		both := append(p.limits(), wrongLimits()...)
 		for _, c := range wrong {
-			m := samples.Read(t, many)
+			m := samples.Read(t, p.many())
 			c.change(&m)
-			for k := -1; k < 5; k++ {
+			for k := -1; k <= len(m.Funcs); k++ {
 				for _, x := range both {
 					p.ExpectError(t, m, k, x, c.want)
 				}
 			}
 		}
-		m := samples.Read(t, many)
+		m := samples.Read(t, p.many())
 		for _, x := range both {
-			for _, k := range []int{-1, 4, math.MinInt, math.MaxInt} {
+			for _, k := range []int{-1, len(m.Funcs), math.MinInt, math.MaxInt} {
 				p.ExpectError(t, m, k, x, api.ErrArg)
 			}
 		}
@@ -98,22 +100,46 @@ func TestOrderOfErrors(t *testing.T) {
 	})
 }
 
-// P13.1, P14.1, P15.1, P16.1, P17.1: functions that are not in static single assignment form.
+// phiOf returns the first phi of a module.
+func phiOf(m *api.Module) *api.Instr {
+	for _, f := range m.Funcs {
+		for _, block := range f.Blocks {
+			if parts.Phis(block) > 0 {
+				return &block.Code[0]
+			}
+		}
+	}
+	return nil
+}
+
+// forms returns functions that a pass is not for, and others that it is for.
+func (p subject) forms() (wrong, right []string) {
+	wrong = []string{
+		"b0: r1 = 1; r1 = 1; return;",
+		"b0: r0 = 1; return;",
+		"b0: print r1; r1 = 2; return;",
+		"b0: branch r0, b1, b2; b1: r1 = 1; jump b2; b2: print r1; return;",
+		"b0: jump b1; b1: r1 = phi b0: r1; return;",
+		"b0: return; b1: r1 = 1; r1 = 2; return;",
+	}
+	right = []string{"b0: return; b1: print r1; return;", "b0: jump b1; b1: r1 = phi b0: 3, b2: r1; return; b2: jump b1;"}
+	if p.isPlain() {
+		right = append(wrong[:4:4], wrong[5], right[0])
+		wrong = []string{wrong[4], "b0: jump b1; b1: r1 = phi b0: 3; return;", "b0: return; b1: r1 = phi ; return;", "b0: r1 = 1; jump b1; b1: r1 = phi b0: r1, b2: r1; print r1; return; b2: jump b1;"}
+	}
+	return wrong, right
+}
+
+// P13.1, P14.1, P15.1, P16.1, P17.1, P18.1: functions that are not in static single assignment form, or that have phis.
 func TestForm(t *testing.T) {
 	each(t, func(t *testing.T, p subject) {
-		for _, body := range []string{
-			"b0: r1 = 1; r1 = 1; return;",
-			"b0: r0 = 1; return;",
-			"b0: print r1; r1 = 2; return;",
-			"b0: branch r0, b1, b2; b1: r1 = 1; jump b2; b2: print r1; return;",
-			"b0: jump b1; b1: r1 = phi b0: r1; return;",
-			"b0: return; b1: r1 = 1; r1 = 2; return;",
-		} {
+		wrong, right := p.forms()
+		for _, body := range wrong {
 			for _, x := range p.limits() {
 				p.ExpectError(t, samples.Of(t, "1 regs 2", body), 0, x, api.ErrDown)
 			}
 		}
-		for _, body := range []string{"b0: return; b1: print r1; return;", "b0: jump b1; b1: r1 = phi b0: 3, b2: r1; return; b2: jump b1;"} {
+		for _, body := range right {
 			p.Made(t, samples.Of(t, "1 regs 2", body), 0, samples.All())
 		}
 	})
@@ -134,14 +160,19 @@ func change(m *api.Module, dice *samples.Dice, value int64) {
 	}
 }
 
-// P13.4, P14.4, P15.4, P16.4, P17.4, R1: passes return for modules in which anything was changed, valid or not, and any other arguments.
+// P13.4, P14.4, P15.4, P16.4, P17.4, P18.4, R1: passes return for modules in which anything was changed, valid or not, and any other arguments.
 func TestAllReturn(t *testing.T) {
 	values := []int64{math.MinInt, -2, -1, 0, 1, 2, 3, 4, 5, 9, 14, 15, 16, 300, 301, math.MaxInt}
 	each(t, func(t *testing.T, p subject) {
 		dice := samples.NewDice(6)
 		seen := map[api.Errno]int{}
 		for seed := range uint64(2500) {
-			m := samples.Function(t, seed, 1+int(seed%14))
+			m := p.function(t, seed, 1+int(seed%14))
+			if p.isPlain() && seed%2 == 0 { // some of them have phis then
+				if made, _, e := ssa.Into(m, 0, samples.All()); e == api.OK {
+					m = made
+				}
+			}
 			change(&m, dice, values[dice.IntN(len(values))])
 			k, x := 0, p.limits()[dice.IntN(len(p.limits()))]
 			if dice.IntN(4) == 0 {
@@ -152,7 +183,7 @@ func TestAllReturn(t *testing.T) {
 				e = api.ErrArg
 			}
 			if e == api.OK {
-				e = ssa.Check(m, k)
+				e = p.CheckForm(m, k)
 			}
 			if seen[e]++; e == api.OK {
 				p.Made(t, m, k, x)

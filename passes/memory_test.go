@@ -12,7 +12,7 @@ import (
 	"cupel/samples"
 )
 
-// P1 with the rules of memory and state, and with them P13.4, P14.4, P15.4, P16.4 and P17.4.
+// P1 with the rules of memory and state, and with them P13.4, P14.4, P15.4, P16.4, P17.4 and P18.4.
 
 // limits are different ones; each call has new lists.
 func (p subject) limits() []api.Limit {
@@ -24,9 +24,9 @@ func (p subject) limits() []api.Limit {
 func eachExample(t *testing.T, test func(t *testing.T, p subject, m api.Module)) {
 	each(t, func(t *testing.T, p subject) {
 		look := func(m api.Module) { test(t, p, m) }
-		look(samples.Read(t, many))
-		samples.Functions(t, 60, 20, look)
-		samples.Programs(10, look)
+		look(samples.Read(t, p.many()))
+		p.functions(t, 60, 20, look)
+		p.programs(10, look)
 	})
 }
 
@@ -131,7 +131,7 @@ func TestArgumentsNotKept(t *testing.T) {
 	each(t, func(t *testing.T, p subject) {
 		for k := range 4 {
 			for i, x := range p.limits() {
-				m, other := samples.Read(t, many), samples.Read(t, many)
+				m, other := samples.Read(t, p.many()), samples.Read(t, p.many())
 				got, want := p.ask(m, k, x), p.ask(other, k, p.limits()[i])
 				for _, v := range lists(&m, &x) {
 					for j := range v.Len() {
@@ -166,7 +166,7 @@ func TestEmptyLists(t *testing.T) {
 // R6: results depend on the arguments alone, also when many are made at once.
 func TestAtOnce(t *testing.T) {
 	each(t, func(t *testing.T, p subject) {
-		m, x := samples.Read(t, many), samples.All(p.Faults...)
+		m, x := samples.Read(t, p.many()), samples.All(p.Faults...)
 		var want []answer
 		for k := range m.Funcs {
 			want = append(want, p.ask(m, k, x))
@@ -186,14 +186,15 @@ func TestAtOnce(t *testing.T) {
 	})
 }
 
-// Nothing of the module changes but the code of one function, which has as many registers, or more where the pass may make them.
+// Nothing of the module changes but the code of one function, which has as many registers and arrays, or more where the pass may make them.
 func TestOnlyOneFunction(t *testing.T) {
 	eachExample(t, func(t *testing.T, p subject, m api.Module) {
 		for k := range m.Funcs {
 			if made, _, e := p.Run(m, k, samples.All()); e == api.OK {
 				made.Funcs[k].Blocks = m.Funcs[k].Blocks
 				if p.grows() {
-					made.Funcs[k].Regs = min(made.Funcs[k].Regs, m.Funcs[k].Regs)
+					f, before := &made.Funcs[k], m.Funcs[k]
+					f.Regs, f.Arrays = min(f.Regs, before.Regs), f.Arrays[:min(len(f.Arrays), len(before.Arrays))]
 				}
 				if !ir.Same(made, m) {
 					t.Fatalf("%s\nRun of %d has changed more", samples.Text(m), k)

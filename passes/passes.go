@@ -1,2 +1,2 @@
-// Package passes has nothing but tests: of what all passes on functions in static single assignment form promise alike.
+// Package passes has nothing but tests: of what the passes of the layers from 13 on promise alike.
 package passes

@@ -54,6 +54,13 @@ func (l *Listing) AddRegister() string {
 	return "r" + count
 }
 
+// AddDecl gives the function one more array, and returns its name.
+func (l *Listing) AddDecl(decl string) string {
+	l.Decls = append(l.Decls, decl)
+	l.head += "\n\t" + decl
+	return "a" + strconv.Itoa(len(l.Decls)-1)
+}
+
 // Module returns the module of a listing.
 func (l Listing) Module() (api.Module, api.Errno) {
 	var s strings.Builder

@@ -8,19 +8,41 @@ import (
 
 	"cupel/api"
 	"cupel/ir"
+	"cupel/parts"
 	"cupel/ssa"
 )
 
 // Work is what a pass does to a function of a module.
 type Work func(m api.Module, k int, x api.Limit) (api.Module, []api.Applied, api.Errno)
 
-// Pass is a pass on functions in static single assignment form, with its number, the faults that it looks at, what it has to do by another account, if there is one, and how many steps what it makes may need for so many before, if not as many.
+// Pass is a pass, with its number, the faults that it looks at, what it has to do by another account, if there is one, how many steps what it makes may need for so many before, if not as many, and what says which functions it is for, if not those in static single assignment form.
 type Pass struct {
 	Number int
 	Run    Work
 	Faults []int
 	Model  Work
 	Steps  func(before int) int
+	Form   Form
+}
+
+// Form returns the error of a function that does not have a form, or that of its module.
+type Form func(m api.Module, k int) api.Errno
+
+// NoPhi is the form of functions without phis.
+func NoPhi(m api.Module, k int) api.Errno {
+	e := ir.Check(m)
+	if e == api.OK && parts.HasPhi(m.Funcs[k]) {
+		e = api.ErrDown
+	}
+	return e
+}
+
+// CheckForm returns the error of a function that a pass is not for, or that of its module.
+func (p Pass) CheckForm(m api.Module, k int) api.Errno {
+	if p.Form != nil {
+		return p.Form(m, k)
+	}
+	return ssa.Check(m, k)
 }
 
 // FaultLists returns all lists of faults of a pass, the one without any first.
@@ -34,14 +56,14 @@ func (p Pass) FaultLists() [][]int {
 	return all
 }
 
-// Made returns what a pass makes of a function, and its applications; the module has to be valid, and the function in static single assignment form.
+// Made returns what a pass makes of a function, and its applications; the module has to be valid, and the function one that the pass is for.
 func (p Pass) Made(t T, m api.Module, k int, x api.Limit) (api.Module, []api.Applied) {
 	t.Helper()
 	made, list, e := p.Run(m, k, x)
 	if e != api.OK {
 		t.Fatalf("%s\nRun of %d, %v: error %d", Text(m), k, x, e)
 	}
-	if e := ssa.Check(made, k); e != api.OK {
+	if e := p.CheckForm(made, k); e != api.OK {
 		t.Fatalf("%s\nRun of %d, %v: error %d of\n%+v", Text(m), k, x, e, made)
 	}
 	return made, list
@@ -73,12 +95,18 @@ func (r Row) modules(t T) (before, after api.Module) {
 func (p Pass) Expect(t T, x api.Limit, r Row) {
 	t.Helper()
 	before, after := r.modules(t)
-	made, list := p.Made(t, before, 0, x)
-	if !ir.Same(made, after) {
-		t.Errorf("%s: Run of %s\nis %s", r.What, r.Before, Text(made))
+	p.ExpectMade(t, r.What, before, after, 0, x, r.Made)
+}
+
+// ExpectMade wants a pass to make one module of another one, by these applications to one of its functions.
+func (p Pass) ExpectMade(t T, what string, before, after api.Module, k int, x api.Limit, made string) {
+	t.Helper()
+	m, list := p.Made(t, before, k, x)
+	if !ir.Same(m, after) {
+		t.Errorf("%s: Run of %d of\n%s\nis\n%s", what, k, Text(before), Text(m))
 	}
-	if want := p.Applied(0, r.Made); !slices.Equal(list, want) {
-		t.Errorf("%s: Run of %s\napplications %v, want %v", r.What, r.Before, list, want)
+	if want := p.Applied(k, made); !slices.Equal(list, want) {
+		t.Errorf("%s: Run of %d of\n%s\napplications %v, want %v", what, k, Text(before), list, want)
 	}
 }
 
@@ -111,10 +139,11 @@ func ExpectSoundRows[R fields](t T, p Pass, rows []R) {
 	}
 }
 
-// ExpectSteps wants the first so many applications, whatever the limit: the bodies are those after 0, 1, 2 .. of them.
+// ExpectSteps wants the first so many applications, whatever the limit: the bodies are those after 0, 1, 2 .. of them. There may be as many heads, as in "1 regs 2 / 1 regs 3 / 1 regs 4".
 func (p Pass) ExpectSteps(t T, head string, bodies []string, made string) {
 	t.Helper()
-	words, last := strings.Fields(made), len(bodies)-1
+	words, last, heads := strings.Fields(made), len(bodies)-1, strings.Split(head, " / ")
+	headOf := func(count int) string { return heads[min(count, len(heads)-1)] }
 	limits := []int{-1, 3999, 4000, 4001, math.MaxInt}
 	for most := range last + 4 {
 		limits = append(limits, most)
@@ -124,10 +153,10 @@ func (p Pass) ExpectSteps(t T, head string, bodies []string, made string) {
 		if most < 0 || most > last {
 			count = last
 		}
-		p.Expect(t, api.Limit{Most: most}, Row{"Most " + strconv.Itoa(most), head, bodies[0], bodies[count], strings.Join(words[:count], " ")})
+		p.Expect(t, api.Limit{Most: most}, Row{"Most " + strconv.Itoa(most), headOf(0) + " / " + headOf(count), bodies[0], bodies[count], strings.Join(words[:count], " ")})
 	}
-	for _, body := range bodies {
-		p.ExpectKept(t, Of(t, head, bodies[0]), Of(t, head, body))
+	for i, body := range bodies {
+		p.ExpectKept(t, Of(t, headOf(0), bodies[0]), Of(t, headOf(i), body))
 	}
 }
 
@@ -150,11 +179,8 @@ func (p Pass) ExpectEach(t T, text string, list ...Part) {
 	}
 	m := fill(-1)
 	for k, part := range list {
-		made, applied := p.Made(t, m, k, All())
-		if !ir.Same(made, fill(k)) || !slices.Equal(applied, p.Applied(k, part.Made)) {
-			t.Errorf("Run of %d: %v, want %s\n%s", k, applied, part.Made, Text(made))
-		}
-		p.ExpectKept(t, m, made)
+		p.ExpectMade(t, "one function", m, fill(k), k, All(), part.Made)
+		p.ExpectKept(t, m, fill(k))
 	}
 }
 
@@ -213,11 +239,17 @@ func (c Count) ExpectEnough(t T, last, applied, changed int) {
 // ExpectModelOf wants of functions what the model says, for each list of faults, and for one of them with each number of applications.
 func (p Pass) ExpectModelOf(t T, count, blocks int) Count {
 	t.Helper()
+	return p.ExpectModelIn(t, func(look func(m api.Module)) { Functions(t, count, blocks, look) })
+}
+
+// ExpectModelIn wants what ExpectModelOf does of the functions 0 of modules.
+func (p Pass) ExpectModelIn(t T, each func(look func(m api.Module))) Count {
+	t.Helper()
 	c, turn := Count{map[int]int{}, map[int]int{}}, 0
 	for i := range p.FaultLists() {
 		c.Changed[i] = 0
 	}
-	Functions(t, count, blocks, func(m api.Module) {
+	each(func(m api.Module) {
 		plain, _ := p.ExpectModel(t, m, 0, All())
 		lists := p.FaultLists()
 		for i, faults := range lists {
@@ -250,8 +282,14 @@ func (p Pass) ExpectModelOfLong(t T, count int) {
 // ExpectModelOfPrograms wants what the model says of the functions of generated programs, and returns how many applications there were.
 func (p Pass) ExpectModelOfPrograms(t T, count int) int {
 	t.Helper()
+	return p.ExpectModelOfAll(t, func(look func(m api.Module)) { Programs(count, look) })
+}
+
+// ExpectModelOfAll wants what ExpectModelOfPrograms does of all functions of modules.
+func (p Pass) ExpectModelOfAll(t T, each func(look func(m api.Module))) int {
+	t.Helper()
 	all := 0
-	Programs(count, func(m api.Module) {
+	each(func(m api.Module) {
 		for k := range m.Funcs {
 			for _, faults := range p.FaultLists() {
 				_, list := p.ExpectModel(t, m, k, All(faults...))

@@ -77,19 +77,28 @@ func Functions(t T, count, blocks int, look func(m api.Module)) {
 	}
 }
 
-// Programs calls look with the modules of programs that are generated, all of whose functions are brought into static single assignment form.
-func Programs(count int, look func(m api.Module)) {
+// Lowered calls look with the modules of programs that are generated.
+func Lowered(count int, look func(m api.Module)) {
 	for seed := range uint64(count) {
 		p, e := gen.Generate(api.Plan{Seed: seed, Funcs: int(seed % 5), Stmts: 5 + int(seed%30), Depth: int(seed % 4)})
 		if e != api.OK {
 			continue
 		}
-		m, e := lower.Lower(p, api.Limit{})
+		if m, e := lower.Lower(p, api.Limit{}); e == api.OK {
+			look(m)
+		}
+	}
+}
+
+// Programs calls look with the modules of programs that are generated, all of whose functions are brought into static single assignment form.
+func Programs(count int, look func(m api.Module)) {
+	Lowered(count, func(m api.Module) {
+		e := api.OK
 		for k := 0; e == api.OK && k < len(m.Funcs); k++ {
 			m, _, e = ssa.Into(m, k, All())
 		}
 		if e == api.OK {
 			look(m)
 		}
-	}
+	})
 }

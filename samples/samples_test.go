@@ -157,9 +157,106 @@ func TestListing(t *testing.T) {
 	if made, e := name.Module(); e != api.OK || !ir.Same(made, samples.Of(t, "1 regs 5", "b0: r1 = add r0, -1; print 7; jump b1; b1: r2 = phi b0: r1; call g(r2, 1; a0); return;")) {
 		t.Errorf("error %d: %s", e, samples.Text(made))
 	}
+	if a, b := name.AddDecl("local[1];"), name.AddDecl("param[2];"); a != "a4" || b != "a5" || name.Decls[5] != "param[2];" {
+		t.Errorf("arrays %s, %s: %q", a, b, name.Decls)
+	}
+	many, e := name.Module()
+	if e != api.ErrArg { // nothing is given for the parameter
+		t.Errorf("error %d: %s", e, samples.Text(many))
+	}
 	l.Blocks[1][0] = samples.LineOf("prints 7;")
 	if _, e := l.Module(); e != api.ErrForm {
 		t.Errorf("error %d", e)
+	}
+}
+
+// Modules of calls are valid and without phis, the same for the same seed, and have all that there is: instructions, ends, arrays, long functions, calls of functions that call others; runs end in each way.
+func TestCallers(t *testing.T) {
+	counts := map[string]int{}
+	var last api.Module
+	turn := uint64(0)
+	samples.Callers(400, func(m api.Module) {
+		if e := ir.Check(m); e != api.OK || m.Main != 1 || !ir.Same(m, samples.Calls(turn)) || ir.Same(m, last) {
+			t.Fatalf("seed %d: error %d: %+v", turn, e, m)
+		}
+		turn, last = turn+1, m
+		counts[fmt.Sprint("run ", samples.Run(t, m, 700).End)]++
+		for k, f := range m.Funcs {
+			for _, a := range f.Arrays {
+				counts[fmt.Sprint("array ", a.Kind)]++
+			}
+			if parts.Instructions(f) > api.MaxInline {
+				counts["long"]++
+			}
+			if parts.HasPhi(f) || f.Regs > 12 {
+				t.Fatalf("seed %d: %s", turn-1, samples.Text(m))
+			}
+			for _, block := range f.Blocks {
+				counts[fmt.Sprint("end ", block.End.Op)]++
+				for _, x := range block.Code {
+					counts[fmt.Sprint("instr ", x.Op)]++
+					if x.Op == api.IxCall && k > 1 {
+						counts["calls in each other"]++
+					}
+				}
+			}
+		}
+	})
+	want := []string{"long", "calls in each other"}
+	for op := api.IxCopy; op < api.IxPhi; op++ {
+		want = append(want, fmt.Sprint("instr ", op))
+	}
+	for end := api.TmJump; end <= api.TmTrap; end++ {
+		want = append(want, fmt.Sprint("end ", end))
+	}
+	for _, end := range []int{api.EnDone, api.EnTrap, api.EnSteps} {
+		want = append(want, fmt.Sprint("run ", end))
+	}
+	for kind := api.AyLocal; kind <= api.AyGlobal; kind++ {
+		want = append(want, fmt.Sprint("array ", kind))
+	}
+	for _, what := range want {
+		if counts[what] < 60 {
+			t.Errorf("%s: %v", what, counts)
+		}
+	}
+}
+
+// A pass may be for functions without phis.
+func TestForm(t *testing.T) {
+	plain, form := samples.Pass{Form: samples.NoPhi}, samples.Pass{}
+	for _, c := range []struct {
+		body                string
+		wantPlain, wantForm api.Errno
+	}{
+		{"b0: r0 = 1; r0 = r0; return;", api.OK, api.ErrDown},
+		{"b0: jump b1; b1: r0 = phi b0: 1; return;", api.ErrDown, api.OK},
+		{"b0: jump b1; b1: r0 = phi b0: r0; return;", api.ErrDown, api.ErrDown},
+		{"b0: print 3; return; b1: print r0; return;", api.OK, api.OK},
+	} {
+		m := samples.Of(t, "0 regs 1", c.body)
+		if a, b := plain.CheckForm(m, 0), form.CheckForm(m, 0); a != c.wantPlain || b != c.wantForm {
+			t.Errorf("%s: errors %d, %d", c.body, a, b)
+		}
+		m.Funcs[2].Blocks = nil
+		if a, b := plain.CheckForm(m, 0), form.CheckForm(m, 0); a != api.ErrArg || b != api.ErrArg {
+			t.Errorf("%s: errors %d, %d of a module that is not valid", c.body, a, b)
+		}
+	}
+}
+
+func TestLowered(t *testing.T) {
+	count := 0
+	samples.Lowered(40, func(m api.Module) {
+		count++
+		for _, f := range m.Funcs {
+			if parts.HasPhi(f) {
+				t.Errorf("a phi: %s", samples.Text(m))
+			}
+		}
+	})
+	if count < 30 {
+		t.Errorf("%d programs", count)
 	}
 }
 
@@ -212,6 +309,15 @@ func TestPass(t *testing.T) {
 		{"steps", func(t samples.T) { p.ExpectSteps(t, head, steps, row.Made) }, 0},
 		{"a wrong step", func(t samples.T) { p.ExpectSteps(t, head, []string{before, before, after}, row.Made) }, 1},
 		{"a wrong application", func(t samples.T) { p.ExpectSteps(t, head, steps, "b0:1/2 b0:2") }, 10},
+		{"steps with heads", func(t samples.T) {
+			p.ExpectSteps(t, "0 regs 2 / 0 regs 2 / 0 regs 2", steps, row.Made)
+		}, 0},
+		{"a step with another head", func(t samples.T) { p.ExpectSteps(t, "0 regs 2 / 0 regs 3 / 0 regs 2", steps, row.Made) }, 1},
+		{"the last head for all other steps", func(t samples.T) { p.ExpectSteps(t, "0 regs 2 / 0 regs 3", steps, row.Made) }, 10},
+		{"one module of another one", func(t samples.T) {
+			p.ExpectMade(t, "", m, samples.Of(t, head, after), 0, samples.All(), row.Made)
+		}, 0},
+		{"a wrong module, and wrong applications", func(t samples.T) { p.ExpectMade(t, "", m, m, 0, samples.All(), "b0:1") }, 2},
 		{"a step too few", func(t samples.T) { p.ExpectSteps(t, head, steps[:2], row.Made) }, 16},
 		{"an error", func(t samples.T) { p.ExpectError(t, m, 9, samples.All(), api.ErrArg) }, 0},
 		{"another error", func(t samples.T) { p.ExpectError(t, m, 9, samples.All(), api.ErrDown) }, 1},
@@ -224,6 +330,15 @@ func TestPass(t *testing.T) {
 		}, 1},
 		{"a model", func(t samples.T) { p.ExpectModel(t, m, 0, samples.All()) }, 0},
 		{"a model of long functions", func(t samples.T) { p.ExpectModelOfLong(t, 70) }, 0},
+		{"a model of all functions", func(t samples.T) {
+			if n := p.ExpectModelOfAll(t, func(look func(m api.Module)) { look(m); look(m) }); n != 16 {
+				t.Errorf("%d applications", n)
+			}
+		}, 0},
+		{"a model of functions", func(t samples.T) {
+			c := p.ExpectModelIn(t, func(look func(m api.Module)) { look(m); look(m) })
+			c.ExpectEnough(t, 1, 16, 0)
+		}, 0},
 		{"the same run", func(t samples.T) { p.ExpectKept(t, m, samples.Of(t, head, after)) }, 0},
 		{"another run", func(t samples.T) {
 			p.ExpectKept(t, m, samples.Of(t, head, strings.Replace(after, "3", "4", 1)))

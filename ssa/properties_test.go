@@ -9,6 +9,7 @@ import (
 	"cupel/api"
 	"cupel/ir"
 	"cupel/irsem"
+	"cupel/samples"
 	"cupel/ssa"
 )
 
@@ -87,7 +88,7 @@ func TestPassesAgree(t *testing.T) {
 		}
 	}
 	modules(t, 250, false, look)
-	generated(t, 30, look)
+	samples.Lowered(30, look)
 	if phis < 1000 {
 		t.Errorf("%d phis", phis)
 	}

@@ -8,9 +8,8 @@ import (
 	"testing"
 
 	"cupel/api"
-	"cupel/gen"
 	"cupel/ir"
-	"cupel/lower"
+	"cupel/samples"
 	"cupel/ssa"
 )
 
@@ -19,20 +18,6 @@ func modules(t *testing.T, count int, phis bool, look func(m api.Module)) {
 	t.Helper()
 	for seed := range uint64(count) {
 		look(read(t, makeModule(seed, phis)))
-	}
-}
-
-// generated calls look with the modules of programs that are generated.
-func generated(t *testing.T, count int, look func(m api.Module)) {
-	t.Helper()
-	for seed := range uint64(count) {
-		p, e := gen.Generate(api.Plan{Seed: seed, Funcs: int(seed % 5), Stmts: 5 + int(seed%30), Depth: int(seed % 4)})
-		if e != api.OK {
-			continue
-		}
-		if m, e := lower.Lower(p, api.Limit{}); e == api.OK {
-			look(m)
-		}
 	}
 }
 
@@ -208,7 +193,7 @@ func TestMadeInto(t *testing.T) {
 		}
 	}
 	modules(t, 400, false, expect)
-	generated(t, 60, expect)
+	samples.Lowered(60, expect)
 	if phis < 4000 {
 		t.Errorf("%d phis", phis)
 	}
@@ -230,7 +215,7 @@ func TestMadeOut(t *testing.T) {
 		}
 	}
 	inForm(t, 300, expect)
-	generated(t, 40, func(m api.Module) {
+	samples.Lowered(40, func(m api.Module) {
 		for k := range m.Funcs {
 			if made, _, e := ssa.Into(m, k, all()); e == api.OK {
 				m = made
@@ -261,7 +246,7 @@ func TestMadeTidy(t *testing.T) {
 	modules(t, 600, true, expect)
 	modules(t, 200, false, expect)
 	inForm(t, 100, expect)
-	generated(t, 60, expect)
+	samples.Lowered(60, expect)
 	if kept < 4000 || gone < 4000 {
 		t.Errorf("%d blocks, %d are left out", kept, gone)
 	}
