@@ -2,7 +2,6 @@ package passes
 
 import (
 	"math"
-	"reflect"
 	"slices"
 	"testing"
 
@@ -10,7 +9,6 @@ import (
 	"cupel/ir"
 	"cupel/parts"
 	"cupel/samples"
-	"cupel/ssa"
 )
 
 func wrongLimits() []api.Limit {
@@ -24,7 +22,7 @@ func wrongLimits() []api.Limit {
 // P13.1, P14.1, P15.1, P16.1, P17.1, P18.1: limits that are not right.
 func TestWrongLimits(t *testing.T) {
 	each(t, func(t *testing.T, p subject) {
-		m := samples.Read(t, p.many())
+		m := samples.Read(t, p.Many())
 		for k := -1; k <= len(m.Funcs); k++ {
 			for _, x := range wrongLimits() {
 				p.ExpectError(t, m, k, x, api.ErrArg)
@@ -36,7 +34,7 @@ func TestWrongLimits(t *testing.T) {
 // P13.1, P14.1, P15.1, P16.1, P17.1, P18.1: limits that are right: faults of other layers do not matter, and the first applications are made.
 func TestLimits(t *testing.T) {
 	each(t, func(t *testing.T, p subject) {
-		m := samples.Read(t, p.many())
+		m := samples.Read(t, p.Many())
 		var faults, own []int
 		for fault := range api.MaxFaults + 1 {
 			if slices.Contains(p.Faults, fault) {
@@ -46,14 +44,14 @@ func TestLimits(t *testing.T) {
 				faults = append(faults, fault)
 			}
 			for k := 1; k < len(m.Funcs); k++ {
-				all := p.ask(m, k, samples.All(own...))
+				all, made := p.Made(t, m, k, samples.All(own...))
 				for _, most := range []int{-1, 0, 1, 2, 3, math.MaxInt} {
 					got, list := p.Made(t, m, k, api.Limit{Most: most, Faults: faults})
-					count := len(all.list)
+					count := len(made)
 					if most >= 0 {
 						count = min(most, count)
 					}
-					if !slices.Equal(list, all.list[:count]) || count == len(all.list) && !ir.Same(got, all.m) || most == 0 && !ir.Same(got, m) {
+					if !slices.Equal(list, made[:count]) || count == len(made) && !ir.Same(got, all) || most == 0 && !ir.Same(got, m) {
 						t.Errorf("%d, Most %d, faults %v: %v\n%s", k, most, faults, list, samples.Text(got))
 					}
 				}
@@ -77,9 +75,9 @@ func TestOrderOfErrors(t *testing.T) {
 		{func(m *api.Module) { m.Cells = make([]api.Cell, 41) }, api.ErrLong},
 	}
 	each(t, func(t *testing.T, p subject) {
-		both := append(p.limits(), wrongLimits()...)
+		both := append(p.Limits(), wrongLimits()...)
 		for _, c := range wrong {
-			m := samples.Read(t, p.many())
+			m := samples.Read(t, p.Many())
 			c.change(&m)
 			for k := -1; k <= len(m.Funcs); k++ {
 				for _, x := range both {
@@ -87,13 +85,13 @@ func TestOrderOfErrors(t *testing.T) {
 				}
 			}
 		}
-		m := samples.Read(t, p.many())
+		m := samples.Read(t, p.Many())
 		for _, x := range both {
 			for _, k := range []int{-1, len(m.Funcs), math.MinInt, math.MaxInt} {
 				p.ExpectError(t, m, k, x, api.ErrArg)
 			}
 		}
-		for _, x := range p.limits() {
+		for _, x := range p.Limits() {
 			p.ExpectError(t, m, 0, x, api.ErrDown)
 		}
 		p.ExpectError(t, api.Module{}, 0, samples.All(), api.ErrArg)
@@ -123,7 +121,7 @@ func (p subject) forms() (wrong, right []string) {
 		"b0: return; b1: r1 = 1; r1 = 2; return;",
 	}
 	right = []string{"b0: return; b1: print r1; return;", "b0: jump b1; b1: r1 = phi b0: 3, b2: r1; return; b2: jump b1;"}
-	if p.isPlain() {
+	if p.IsPlain() {
 		right = append(wrong[:4:4], wrong[5], right[0])
 		wrong = []string{wrong[4], "b0: jump b1; b1: r1 = phi b0: 3; return;", "b0: return; b1: r1 = phi ; return;", "b0: r1 = 1; jump b1; b1: r1 = phi b0: r1, b2: r1; print r1; return; b2: jump b1;"}
 	}
@@ -135,64 +133,12 @@ func TestForm(t *testing.T) {
 	each(t, func(t *testing.T, p subject) {
 		wrong, right := p.forms()
 		for _, body := range wrong {
-			for _, x := range p.limits() {
+			for _, x := range p.Limits() {
 				p.ExpectError(t, samples.Of(t, "1 regs 2", body), 0, x, api.ErrDown)
 			}
 		}
 		for _, body := range right {
 			p.Made(t, samples.Of(t, "1 regs 2", body), 0, samples.All())
-		}
-	})
-}
-
-// change sets one number or truth value of a module to something else.
-func change(m *api.Module, dice *samples.Dice, value int64) {
-	var leaves []reflect.Value
-	visit(reflect.ValueOf(m), func(v reflect.Value) {
-		if v.CanInt() || v.Kind() == reflect.Bool {
-			leaves = append(leaves, v)
-		}
-	})
-	if v := leaves[dice.IntN(len(leaves))]; v.Kind() == reflect.Bool {
-		v.SetBool(!v.Bool())
-	} else {
-		v.SetInt(value)
-	}
-}
-
-// P13.4, P14.4, P15.4, P16.4, P17.4, P18.4, R1: passes return for modules in which anything was changed, valid or not, and any other arguments.
-func TestAllReturn(t *testing.T) {
-	values := []int64{math.MinInt, -2, -1, 0, 1, 2, 3, 4, 5, 9, 14, 15, 16, 300, 301, math.MaxInt}
-	each(t, func(t *testing.T, p subject) {
-		dice := samples.NewDice(6)
-		seen := map[api.Errno]int{}
-		for seed := range uint64(2500) {
-			m := p.function(t, seed, 1+int(seed%14))
-			if p.isPlain() && seed%2 == 0 { // some of them have phis then
-				if made, _, e := ssa.Into(m, 0, samples.All()); e == api.OK {
-					m = made
-				}
-			}
-			change(&m, dice, values[dice.IntN(len(values))])
-			k, x := 0, p.limits()[dice.IntN(len(p.limits()))]
-			if dice.IntN(4) == 0 {
-				k = int(values[dice.IntN(len(values))])
-			}
-			e := ir.Check(m)
-			if e == api.OK && (k < 0 || k >= len(m.Funcs)) {
-				e = api.ErrArg
-			}
-			if e == api.OK {
-				e = p.CheckForm(m, k)
-			}
-			if seen[e]++; e == api.OK {
-				p.Made(t, m, k, x)
-			} else {
-				p.ExpectError(t, m, k, x, e)
-			}
-		}
-		if seen[api.OK] < 200 || seen[api.ErrArg] < 1000 || seen[api.ErrDown] < 50 || seen[api.ErrLong] < 1 {
-			t.Errorf("errors: %v", seen)
 		}
 	})
 }

@@ -12,7 +12,7 @@ import (
 func TestRunsStay(t *testing.T) {
 	each(t, func(t *testing.T, p subject) {
 		printed, cut := 0, 0
-		p.functions(t, 500, 14, func(m api.Module) {
+		p.FunctionsFor(t, 500, 14, func(m api.Module) {
 			_, list := p.Made(t, m, 0, samples.All())
 			for most := range len(list) + 1 {
 				made, _ := p.Made(t, m, 0, api.Limit{Most: most})
@@ -44,13 +44,13 @@ func TestAllFunctions(t *testing.T) {
 			}
 			p.ExpectKept(t, start, m)
 			for k := range m.Funcs {
-				if !p.isPlain() { // the others, which are called, may have become shorter
+				if !p.IsPlain() { // the others, which are called, may have become shorter
 					p.expectNoMore(t, m, k)
 				}
 			}
 		}
-		p.functions(t, 1500, p.blocks(), look)
-		p.programs(200, look)
+		p.FunctionsFor(t, 1500, p.blocks(), look)
+		p.ProgramsFor(200, look)
 		if count < 10000 {
 			t.Errorf("%d applications", count)
 		}
@@ -70,7 +70,7 @@ func TestFaultsDiffer(t *testing.T) {
 	each(t, func(t *testing.T, p subject) {
 		for _, fault := range p.Faults {
 			differ := 0
-			p.functions(t, 1500, 14, func(m api.Module) {
+			p.FunctionsFor(t, 1500, 14, func(m api.Module) {
 				if made, _, e := p.Run(m, 0, samples.All(fault)); e != api.OK || !p.IsKept(t, m, made) {
 					differ++
 				}
@@ -80,4 +80,30 @@ func TestFaultsDiffer(t *testing.T) {
 			}
 		}
 	})
+}
+
+// Nothing of the module changes but the code of one function, which has as many registers and arrays, or more where the pass may make them.
+func TestOnlyOneFunction(t *testing.T) {
+	each(t, func(t *testing.T, p subject) {
+		p.Examples(t, func(m api.Module) {
+			for k := range m.Funcs {
+				if made, _, e := p.Run(m, k, samples.All()); e == api.OK {
+					p.expectOnly(t, m, made, k)
+				}
+			}
+		})
+	})
+}
+
+// expectOnly wants two modules to differ in one function at most.
+func (p subject) expectOnly(t *testing.T, m, made api.Module, k int) {
+	t.Helper()
+	f, before := &made.Funcs[k], m.Funcs[k]
+	f.Blocks = before.Blocks
+	if p.grows() {
+		f.Regs, f.Arrays = min(f.Regs, before.Regs), f.Arrays[:min(len(f.Arrays), len(before.Arrays))]
+	}
+	if !ir.Same(made, m) {
+		t.Fatalf("%s\nRun of %d has changed more", samples.Text(m), k)
+	}
 }

@@ -15,8 +15,9 @@ import (
 // Work is what a pass does to a function of a module.
 type Work func(m api.Module, k int, x api.Limit) (api.Module, []api.Applied, api.Errno)
 
-// Pass is a pass, with its number, the faults that it looks at, what it has to do by another account, if there is one, how many steps what it makes may need for so many before, if not as many, and what says which functions it is for, if not those in static single assignment form.
+// Pass is a pass, with its name and its number, the faults that it looks at, what it has to do by another account, if there is one, how many steps what it makes may need for so many before, if not as many, and what says which functions it is for, if not those in static single assignment form.
 type Pass struct {
+	Name   string
 	Number int
 	Run    Work
 	Faults []int
