@@ -75,15 +75,8 @@ func areNamed[T any](list []T, nameOf func(T) string) bool {
 }
 
 func isName(s string) bool {
-	if s == "" || len(s) > api.MaxIName || !isLetter(s[0]) {
-		return false
-	}
-	for i := range len(s) {
-		if !inWord(s[i]) {
-			return false
-		}
-	}
-	return true
+	t := tokens().Scan(s, 0)
+	return isNameToken(t) && t.Text == s
 }
 
 func isLength(n int) bool { return n >= 1 && n <= api.MaxILen }

@@ -4,6 +4,7 @@ import (
 	"slices"
 
 	"cupel/api"
+	"cupel/texts"
 )
 
 // checker looks at the blocks of a function of a module whose functions all have valid heads.
@@ -82,7 +83,7 @@ func (c checker) isInstr(x api.Instr) bool {
 	}
 	s := shapes[x.Op]
 	switch {
-	case s.kind && (x.Kind < api.IbAdd || x.Kind > api.IbLe):
+	case s.kind && !texts.IsOperation(x.Kind):
 		return false
 	case s.to && !c.isReg(x.To) && (x.Op != api.IxCall || x.To != -1):
 		return false

@@ -1,6 +1,9 @@
 package ir
 
-import "cupel/api"
+import (
+	"cupel/api"
+	"cupel/texts"
+)
 
 // names are those that are declared of cells, of arrays or of functions, each with its index.
 type names map[string]int
@@ -12,27 +15,27 @@ type use struct {
 	at   int
 }
 
-func (r *reader) name() token {
-	if r.now.kind != tokenWord || len(r.now.text) > api.MaxIName {
-		panic(wrong)
-	}
-	return r.take()
+func isNameToken(t texts.Token) bool { return t.Kind == texts.Word && len(t.Text) <= api.MaxIName }
+
+func (r *reader) name() texts.Token {
+	r.Require(isNameToken(r.Now))
+	return r.Take()
 }
 
 func (r *reader) declare(of names) string {
 	t := r.name()
-	if _, known := of[t.text]; known {
-		r.twice = append(r.twice, t.at)
+	if _, known := of[t.Text]; known {
+		r.twice = append(r.twice, t.At)
 	} else {
-		of[t.text] = len(of)
+		of[t.Text] = len(of)
 	}
-	return t.text
+	return t.Text
 }
 
 // use reads a name that may be declared later. It returns the index of the use, which stands for what is named until link.
 func (r *reader) use(of names) int {
 	t := r.name()
-	r.uses = append(r.uses, use{of: of, name: t.text, at: t.at})
+	r.uses = append(r.uses, use{of: of, name: t.Text, at: t.At})
 	return len(r.uses) - 1
 }
 

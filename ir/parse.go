@@ -1,9 +1,10 @@
 package ir
 
 import (
-	"strconv"
+	"math"
 
 	"cupel/api"
+	"cupel/texts"
 )
 
 const (
@@ -11,8 +12,11 @@ const (
 	mostNumber = 1000  // in heads, lengths, and words like r7
 )
 
-// wrong is what a reader panics with when the current token is one with which no module goes on.
-const wrong = "wrong token"
+// tokens returns what a text of a module consists of.
+func tokens() texts.Tokens {
+	const letters = texts.SmallLetters + "ABCDEFGHIJKLMNOPQRSTUVWXYZ"
+	return texts.Tokens{First: letters, Next: letters + texts.Digits + "_", Signs: "=,;:()[]{}"}
+}
 
 // Parse reads a module; with an error it returns the place of the token that is wrong, or of the name.
 func Parse(text string) (api.Module, int, api.Errno) {
@@ -20,9 +24,9 @@ func Parse(text string) (api.Module, int, api.Errno) {
 		return api.Module{}, 0, api.ErrLong
 	}
 	r := newReader(text)
-	m, e := r.read()
-	if e != api.OK {
-		return api.Module{}, r.now.at, e
+	var m api.Module
+	if !r.Reads(func() { m = r.module() }) {
+		return api.Module{}, r.Now.At, api.ErrForm
 	}
 	if at, e := r.link(&m); e != api.OK {
 		return api.Module{}, at, e
@@ -33,10 +37,9 @@ func Parse(text string) (api.Module, int, api.Errno) {
 	return m, 0, api.OK
 }
 
-// reader reads a text token by token; now is the current one, the first that has not been accepted.
+// reader reads the text of a module.
 type reader struct {
-	text                 string
-	now                  token
+	texts.Reader
 	values, actions      map[string]operation
 	cells, arrays, funcs names
 	uses                 []use
@@ -45,8 +48,7 @@ type reader struct {
 
 func newReader(text string) *reader {
 	return &reader{
-		text:    text,
-		now:     scan(text, 0),
+		Reader:  tokens().Reader(text),
 		values:  valueWords(),
 		actions: actionWords(),
 		cells:   names{},
@@ -55,104 +57,49 @@ func newReader(text string) *reader {
 	}
 }
 
-func (r *reader) read() (m api.Module, e api.Errno) {
-	defer func() {
-		if recover() != nil {
-			m, e = api.Module{}, api.ErrForm
-		}
-	}()
-	for r.accept("cell") {
+func (r *reader) module() api.Module {
+	var m api.Module
+	for r.Accept("cell") {
 		m.Cells = append(m.Cells, r.cell())
 	}
-	for r.accept("array") {
+	for r.Accept("array") {
 		m.Arrays = append(m.Arrays, r.globalArray())
 	}
-	r.expect("main")
+	r.Expect("main")
 	m.Main = r.use(r.funcs)
-	r.expect(";")
-	for r.accept("func") {
+	r.Expect(";")
+	for r.Accept("func") {
 		m.Funcs = append(m.Funcs, r.function())
 	}
-	if r.now.kind != tokenEnd {
-		panic(wrong)
-	}
-	return m, api.OK
+	r.ExpectEnd()
+	return m
 }
 
-// take accepts the current token, whatever it is.
-func (r *reader) take() token {
-	t := r.now
-	r.now = scan(r.text, t.at+len(t.text))
-	return t
-}
+func (r *reader) integer() int64 { return r.Integer(math.MinInt64, math.MaxInt64) }
 
-func (r *reader) accept(text string) bool {
-	if r.now.text != text {
-		return false
-	}
-	r.take()
-	return true
-}
-
-func (r *reader) expect(text string) {
-	if !r.accept(text) {
-		panic(wrong)
-	}
-}
-
-func (r *reader) integer() int64 {
-	if r.now.kind != tokenInteger {
-		panic(wrong)
-	}
-	return r.take().value
-}
-
-func (r *reader) number() int {
-	if r.now.kind != tokenInteger || r.now.value < 0 || r.now.value > mostNumber {
-		panic(wrong)
-	}
-	return int(r.take().value)
-}
+func (r *reader) number() int { return int(r.Integer(0, mostNumber)) }
 
 // numbered reads a word that consists of a letter and a number.
-func (r *reader) numbered(letter byte) int {
-	n, ok := numberBehind(letter, r.now)
-	if !ok {
-		panic(wrong)
-	}
-	r.take()
-	return n
-}
-
-func numberBehind(letter byte, t token) (int, bool) {
-	if t.kind != tokenWord || t.text[0] != letter {
-		return 0, false
-	}
-	n, err := strconv.Atoi(t.text[1:])
-	if err != nil || n > mostNumber || strconv.Itoa(n) != t.text[1:] {
-		return 0, false
-	}
-	return n, true
-}
+func (r *reader) numbered(letter byte) int { return r.Numbered(letter, mostNumber) }
 
 func (r *reader) cell() api.Cell {
 	c := api.Cell{Name: r.declare(r.cells)}
-	r.expect("=")
+	r.Expect("=")
 	c.Init = r.integer()
-	r.expect(";")
+	r.Expect(";")
 	return c
 }
 
 func (r *reader) globalArray() api.GArray {
 	a := api.GArray{Name: r.declare(r.arrays)}
 	a.Len, a.Small = r.size()
-	r.expect(";")
+	r.Expect(";")
 	return a
 }
 
 func (r *reader) size() (length int, small bool) {
-	r.expect("[")
+	r.Expect("[")
 	length = r.number()
-	r.expect("]")
-	return length, r.accept("small")
+	r.Expect("]")
+	return length, r.Accept("small")
 }

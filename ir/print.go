@@ -4,6 +4,7 @@ import (
 	"strconv"
 
 	"cupel/api"
+	"cupel/texts"
 )
 
 // Print returns the canonical text.
@@ -107,7 +108,7 @@ func (w *writer) instr(x api.Instr) {
 	case api.IxCopy:
 		w.put(opdText(x.A))
 	case api.IxBin:
-		w.put(binaryWords[x.Kind], " ", opdText(x.A), ", ", opdText(x.B))
+		w.put(texts.Operation(x.Kind), " ", opdText(x.A), ", ", opdText(x.B))
 	case api.IxCheck:
 		w.put("check ", opdText(x.A), ", ", opdText(x.B))
 	case api.IxLoad:

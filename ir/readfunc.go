@@ -1,19 +1,22 @@
 package ir
 
-import "cupel/api"
+import (
+	"cupel/api"
+	"cupel/texts"
+)
 
 func (r *reader) function() api.IFunc {
 	f := api.IFunc{Name: r.declare(r.funcs)}
-	r.expect("params")
+	r.Expect("params")
 	f.Params = r.number()
-	r.expect("regs")
+	r.Expect("regs")
 	f.Regs = r.number()
-	f.Result = r.accept("result")
-	r.expect("{")
+	f.Result = r.Accept("result")
+	r.Expect("{")
 	for a, ok := r.array(); ok; a, ok = r.array() {
 		f.Arrays = append(f.Arrays, a)
 	}
-	for !r.accept("}") {
+	for !r.Accept("}") {
 		f.Blocks = append(f.Blocks, r.block(len(f.Blocks), f.Result))
 	}
 	return f
@@ -23,28 +26,27 @@ func (r *reader) function() api.IFunc {
 func (r *reader) array() (api.Array, bool) {
 	var a api.Array
 	switch {
-	case r.accept("local"):
+	case r.Accept("local"):
 		a.Kind = api.AyLocal
 		a.Len, a.Small = r.size()
-	case r.accept("param"):
+	case r.Accept("param"):
 		a.Kind = api.AyParam
 		a.Len, a.Small = r.size()
-	case r.accept("global"):
+	case r.Accept("global"):
 		a.Kind = api.AyGlobal
 		a.Global = r.use(r.arrays)
 	default:
 		return a, false
 	}
-	r.expect(";")
+	r.Expect(";")
 	return a, true
 }
 
 func (r *reader) block(number int, result bool) api.Block {
-	if n, ok := numberBehind('b', r.now); !ok || n != number {
-		panic(wrong)
-	}
-	r.take()
-	r.expect(":")
+	n, ok := r.Now.Number('b', mostNumber)
+	r.Require(ok && n == number)
+	r.Take()
+	r.Expect(":")
 	var b api.Block
 	for x, ok := r.instr(); ok; x, ok = r.instr() {
 		b.Code = append(b.Code, x)
@@ -56,32 +58,32 @@ func (r *reader) block(number int, result bool) api.Block {
 func (r *reader) end(result bool) api.Term {
 	var t api.Term
 	switch {
-	case r.accept("jump"):
+	case r.Accept("jump"):
 		t.Op = api.TmJump
 		t.To = r.numbered('b')
-	case r.accept("branch"):
+	case r.Accept("branch"):
 		t.Op = api.TmBranch
 		t.A = r.opd()
-		r.expect(",")
+		r.Expect(",")
 		t.To = r.numbered('b')
-		r.expect(",")
+		r.Expect(",")
 		t.Else = r.numbered('b')
-	case r.accept("return"):
+	case r.Accept("return"):
 		t.Op = api.TmReturn
 		if result {
 			t.A = r.opd()
 		}
-	case r.accept("trap"):
+	case r.Accept("trap"):
 		t.Op = api.TmTrap
 	default:
-		panic(wrong)
+		r.Require(false)
 	}
-	r.expect(";")
+	r.Expect(";")
 	return t
 }
 
 func (r *reader) opd() api.Opd {
-	if r.now.kind == tokenInteger {
+	if r.Now.Kind == texts.Integer {
 		return api.Opd{Reg: -1, Imm: r.integer()}
 	}
 	return api.Opd{Reg: r.numbered('r')}

@@ -1,6 +1,9 @@
 package ir
 
-import "cupel/api"
+import (
+	"cupel/api"
+	"cupel/texts"
+)
 
 // operation is what a word stands for, and how what follows the word is read.
 type operation struct {
@@ -16,10 +19,8 @@ func valueWords() map[string]operation {
 		"call": {op: api.IxCall, rest: (*reader).callRest},
 		"phi":  {op: api.IxPhi, rest: (*reader).phiRest},
 	}
-	for kind, word := range binaryWords {
-		if word != "" {
-			words[word] = operation{op: api.IxBin, kind: kind, rest: (*reader).pairRest}
-		}
+	for kind := api.IbAdd; kind <= api.IbLe; kind++ {
+		words[texts.Operation(kind)] = operation{op: api.IxBin, kind: kind, rest: (*reader).pairRest}
 	}
 	return words
 }
@@ -38,22 +39,22 @@ func actionWords() map[string]operation {
 // instr reads an instruction, if the current token begins one.
 func (r *reader) instr() (api.Instr, bool) {
 	var x api.Instr
-	if to, ok := numberBehind('r', r.now); ok {
-		r.take()
-		r.expect("=")
+	if to, ok := r.Now.Number('r', mostNumber); ok {
+		r.Take()
+		r.Expect("=")
 		x = r.value()
 		x.To = to
-	} else if o, ok := r.actions[r.now.text]; ok {
+	} else if o, ok := r.actions[r.Now.Text]; ok {
 		x = r.operation(o)
 	} else {
 		return x, false
 	}
-	r.expect(";")
+	r.Expect(";")
 	return x, true
 }
 
 func (r *reader) value() api.Instr {
-	if o, ok := r.values[r.now.text]; ok {
+	if o, ok := r.values[r.Now.Text]; ok {
 		return r.operation(o)
 	}
 	return api.Instr{Op: api.IxCopy, A: r.opd()}
@@ -61,7 +62,7 @@ func (r *reader) value() api.Instr {
 
 // operation reads an operation whose word is the current token.
 func (r *reader) operation(o operation) api.Instr {
-	r.take()
+	r.Take()
 	x := api.Instr{Op: o.op, Kind: o.kind, To: -1}
 	o.rest(r, &x)
 	return x
@@ -69,20 +70,20 @@ func (r *reader) operation(o operation) api.Instr {
 
 func (r *reader) pairRest(x *api.Instr) {
 	x.A = r.opd()
-	r.expect(",")
+	r.Expect(",")
 	x.B = r.opd()
 }
 
 func (r *reader) loadRest(x *api.Instr) {
 	x.Array = r.numbered('a')
-	r.expect("[")
+	r.Expect("[")
 	x.A = r.opd()
-	r.expect("]")
+	r.Expect("]")
 }
 
 func (r *reader) storeRest(x *api.Instr) {
 	r.loadRest(x)
-	r.expect("=")
+	r.Expect("=")
 	x.B = r.opd()
 }
 
@@ -90,7 +91,7 @@ func (r *reader) getRest(x *api.Instr) { x.Cell = r.numbered('c') }
 
 func (r *reader) putRest(x *api.Instr) {
 	r.getRest(x)
-	r.expect("=")
+	r.Expect("=")
 	x.A = r.opd()
 }
 
@@ -98,34 +99,34 @@ func (r *reader) printRest(x *api.Instr) { x.A = r.opd() }
 
 func (r *reader) callRest(x *api.Instr) {
 	x.Func = r.use(r.funcs)
-	r.expect("(")
-	if r.now.text != ")" && r.now.text != ";" {
+	r.Expect("(")
+	if r.Now.Text != ")" && r.Now.Text != ";" {
 		x.Args = append(x.Args, r.opd())
-		for r.accept(",") {
+		for r.Accept(",") {
 			x.Args = append(x.Args, r.opd())
 		}
 	}
-	if r.accept(";") {
+	if r.Accept(";") {
 		x.Arrays = append(x.Arrays, r.numbered('a'))
-		for r.accept(",") {
+		for r.Accept(",") {
 			x.Arrays = append(x.Arrays, r.numbered('a'))
 		}
 	}
-	r.expect(")")
+	r.Expect(")")
 }
 
 func (r *reader) phiRest(x *api.Instr) {
-	if r.now.text == ";" {
+	if r.Now.Text == ";" {
 		return
 	}
 	r.phiArg(x)
-	for r.accept(",") {
+	for r.Accept(",") {
 		r.phiArg(x)
 	}
 }
 
 func (r *reader) phiArg(x *api.Instr) {
 	x.From = append(x.From, r.numbered('b'))
-	r.expect(":")
+	r.Expect(":")
 	x.Args = append(x.Args, r.opd())
 }

@@ -43,6 +43,12 @@ func sources(look func(name string, calls func(t *testing.T, look func(c call)))
 	look("pipeline.Instances", instancesCalls)
 	look("pipeline.One", oneCalls)
 	look("pipeline.Run", runCalls)
+	look("target.Valid", validCalls)
+	look("target.Encode", encodeCalls)
+	look("target.Decode", decodeCalls)
+	look("target.Check", checkCalls)
+	look("target.Parse", parseCalls)
+	look("target.Print", printCalls)
 }
 
 // passArgs are the arguments of a pass, passResult is what it returns.

@@ -1,4 +1,4 @@
-// P1 with its rules R2 to R4 and R6, and with them P13.4, P14.4, P15.4, P16.4, P17.4, P18.4 and P19.6.
+// P1 with its rules R2 to R4 and R6, for passes, pipeline and target, and with them P13.4, P14.4, P15.4, P16.4, P17.4, P18.4 and P19.6.
 
 package rules
 
@@ -15,10 +15,13 @@ func TestErrorsAlone(t *testing.T) {
 	each(t, func(t *testing.T, c call) {
 		a := c.args()
 		r := reflect.ValueOf(c.ask(a)).Elem()
-		code := r.FieldByName("E").Int()
-		nothing := reflect.New(r.Type())
-		nothing.Elem().FieldByName("E").SetInt(code)
-		if code != int64(api.OK) && !equal(r, nothing.Elem()) {
+		nothing := reflect.New(r.Type()).Elem()
+		for _, name := range []string{"E", "Place"} { // where it has failed is a result of errors
+			if f := nothing.FieldByName(name); f.IsValid() {
+				f.Set(r.FieldByName(name))
+			}
+		}
+		if r.FieldByName("E").Int() != int64(api.OK) && !equal(r, nothing) {
 			t.Fatalf("%s of %+v: %+v", c.name, a, r)
 		}
 	})
