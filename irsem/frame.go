@@ -40,7 +40,7 @@ func (f *frame) blocks() int64 {
 		f.visit(f.index, now)
 		block := &f.called.Blocks[now]
 		f.code(block.Code, from)
-		f.step()
+		f.Step()
 		end := &block.End
 		from = now
 		switch {
@@ -49,7 +49,7 @@ func (f *frame) blocks() int64 {
 		case end.Op == api.TmReturn:
 			return 0
 		case end.Op == api.TmTrap:
-			f.end(api.EnTrap, api.TrStated)
+			f.Trap(api.TrStated)
 		case end.Op == api.TmBranch && f.value(end.A) == 0:
 			now = end.Else
 		default:
@@ -62,7 +62,7 @@ func (f *frame) blocks() int64 {
 func (f *frame) code(list []api.Instr, from int) {
 	f.phis = f.phis[:0]
 	for len(f.phis) < len(list) && list[len(f.phis)].Op == api.IxPhi {
-		f.step()
+		f.Step()
 		x := &list[len(f.phis)]
 		f.phis = append(f.phis, f.value(x.Args[slices.Index(x.From, from)]))
 	}
@@ -71,7 +71,7 @@ func (f *frame) code(list []api.Instr, from int) {
 	}
 	list = list[len(f.phis):]
 	for i := range list {
-		f.step()
+		f.Step()
 		f.instrs[list[i].Op](f, &list[i])
 	}
 }

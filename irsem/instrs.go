@@ -22,14 +22,14 @@ func (f *frame) copy(x *api.Instr) { f.regs[x.To] = f.value(x.A) }
 func (f *frame) operate(x *api.Instr) {
 	v, trap := operate(x.Kind, f.value(x.A), f.value(x.B))
 	if trap {
-		f.end(api.EnTrap, api.TrDivide)
+		f.Trap(api.TrDivide)
 	}
 	f.regs[x.To] = v
 }
 
 func (f *frame) check(x *api.Instr) {
 	if i := f.value(x.A); i < 0 || i >= f.value(x.B) {
-		f.end(api.EnTrap, api.TrIndex)
+		f.Trap(api.TrIndex)
 	}
 }
 
@@ -49,12 +49,7 @@ func (f *frame) get(x *api.Instr) { f.regs[x.To] = f.cells[x.Cell] }
 
 func (f *frame) put(x *api.Instr) { f.cells[x.Cell] = f.value(x.A) }
 
-func (f *frame) print(x *api.Instr) {
-	if len(f.out) == api.MaxOut {
-		f.end(api.EnSteps, 0)
-	}
-	f.out = append(f.out, f.value(x.A))
-}
+func (f *frame) print(x *api.Instr) { f.Print(f.value(x.A)) }
 
 func (f *frame) call(x *api.Instr) {
 	given := make([]array, len(x.Arrays))

@@ -49,6 +49,9 @@ func sources(look func(name string, calls func(t *testing.T, look func(c call)))
 	look("target.Check", checkCalls)
 	look("target.Parse", parseCalls)
 	look("target.Print", printCalls)
+	look("choose.Make", makeCalls)
+	look("choose.Check", checkVirtualCalls)
+	look("choose.Run", runVirtualCalls)
 }
 
 // passArgs are the arguments of a pass, passResult is what it returns.
