@@ -219,14 +219,14 @@ func TestCheckChanged(t *testing.T) {
 		expectCheck(t, "changed", v, want)
 		seen[want]++
 	}
-	for range 8_000 {
-		v := drawCode(r)
+	for seed := range uint64(8000) {
+		v := samples.Virtual(seed, 5)
 		if e := choose.Check(v); e != api.OK || modelCheck(v) != api.OK {
 			t.Fatalf("%s\nCheck: error %d", samples.VirtualText(v), e)
 		}
 		look(v)
 	}
-	modules(t, 200, func(m api.Module) { look(made(t, m)) })
+	samples.Plain(t, 200, func(m api.Module) { look(made(t, m)) })
 	if seen[api.OK] < 1500 || seen[api.ErrArg] < 3000 || seen[api.ErrLong] < 300 {
 		t.Errorf("errors: %v", seen)
 	}

@@ -46,7 +46,7 @@ func expectKept(t *testing.T, m api.Module) {
 func TestKept(t *testing.T) {
 	t.Parallel()
 	ends := map[string]int{}
-	modules(t, 400, func(m api.Module) {
+	samples.Plain(t, 400, func(m api.Module) {
 		expectKept(t, m)
 		b := samples.Run(t, m, 400)
 		ends[fmt.Sprint(b.End, b.Code)]++
@@ -141,7 +141,7 @@ func TestFaultsSeen(t *testing.T) {
 		expectKept(t, m)
 	}
 	seen, all := map[int]int{}, 0
-	modules(t, 80, func(m api.Module) {
+	samples.Plain(t, 80, func(m api.Module) {
 		all++
 		for _, fault := range own() {
 			if !isKept(t, m, made(t, m, fault)) {
@@ -158,9 +158,8 @@ func TestFaultsSeen(t *testing.T) {
 
 // P21.3, P21.4: with more steps a run goes on in the same way.
 func TestMoreSteps(t *testing.T) {
-	r := random(5)
-	for range 300 {
-		v := drawCode(r)
+	for seed := range uint64(300) {
+		v := samples.Virtual(seed, 5)
 		last, e := choose.Run(v, 0)
 		for steps := 1; steps < 60; steps++ {
 			b := run(t, v, steps)

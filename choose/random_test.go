@@ -1,61 +1,14 @@
 package choose_test
 
 import (
-	"math/rand/v2"
 	"testing"
 
 	"cupel/api"
 	"cupel/choose"
 	"cupel/ir"
 	"cupel/parts"
-	"cupel/pipeline"
 	"cupel/samples"
-	"cupel/ssa"
 )
-
-// vary puts constants of all sizes in the place of some operands.
-func vary(r *rand.Rand, m api.Module) {
-	put := func(list []*api.Opd) {
-		for _, o := range list {
-			if r.IntN(5) == 0 {
-				*o = api.Opd{Reg: -1, Imm: pick[int64](r, 0, 1, 2, 3, -1, -2, -7, 255, 256, 300, -300, 1<<31-1, 1<<31, -1<<31, -1<<31-1, 1<<40, greatest, least)}
-			}
-		}
-	}
-	for _, f := range m.Funcs {
-		for b := range f.Blocks {
-			block := &f.Blocks[b]
-			for i := range block.Code {
-				put(parts.Operands(&block.Code[i]))
-			}
-			put(parts.EndOperands(&block.End, f.Result))
-		}
-	}
-}
-
-// modules calls look with modules without phis: of functions that call each other, also with more constants, of generated programs, before and after passes, and of functions that were in static single assignment form.
-func modules(t *testing.T, count int, look func(m api.Module)) {
-	t.Helper()
-	r := random(1)
-	samples.Callers(count, func(m api.Module) {
-		look(m)
-		vary(r, m)
-		look(m)
-	})
-	level := 0
-	samples.Lowered(count/2, func(m api.Module) {
-		look(m)
-		if made, _, e := pipeline.Run(m, 1+level%3, -1, samples.All()); e == api.OK {
-			look(made)
-		}
-		level++
-	})
-	samples.Functions(t, count/2, 24, func(m api.Module) {
-		if made, _, e := ssa.Out(m, 0, samples.All()); e == api.OK {
-			look(made)
-		}
-	})
-}
 
 // expectModel wants of Make what the model says.
 func expectModel(t *testing.T, m api.Module, faults []int) api.VCode {
@@ -84,7 +37,7 @@ func expectError(t *testing.T, m api.Module, x api.Limit, want api.Errno) {
 func TestMakeModel(t *testing.T) {
 	t.Parallel()
 	ops, changed, all := map[int]int{}, map[int]int{}, 0
-	modules(t, 200, func(m api.Module) {
+	samples.Plain(t, 200, func(m api.Module) {
 		plain := expectModel(t, m, nil)
 		for i, faults := range faultLists() {
 			if v := expectModel(t, m, faults); !sameCode(v, plain) {
@@ -120,7 +73,7 @@ func TestMakeLimits(t *testing.T) {
 			others = append(others, fault)
 		}
 	}
-	modules(t, 40, func(m api.Module) {
+	samples.Plain(t, 40, func(m api.Module) {
 		plain := made(t, m)
 		for _, x := range []api.Limit{{}, {Most: 1}, {Most: -2}, {Most: least}, {Most: greatest}, {Most: 5, Faults: others}, {Faults: []int{}}} {
 			if v, e := choose.Make(m, x); e != api.OK || !sameCode(v, plain) {

@@ -228,12 +228,11 @@ func TestRunErrors(t *testing.T) {
 // P21.3: virtual code that is drawn, with each number of steps up to some, is run as the model does.
 func TestRunModel(t *testing.T) {
 	t.Parallel()
-	r := random(4)
 	seen := map[string]int{}
-	for n := range 2500 {
-		v := drawCode(r)
+	for seed := range uint64(2500) {
+		v := samples.Virtual(seed, 5)
 		list := []int{0, 1, 2, 3, 5, 9, 20, 60, 250}
-		if n%20 == 0 {
+		if seed%20 == 0 {
 			for steps := range 100 {
 				list = append(list, steps)
 			}
@@ -257,7 +256,7 @@ func TestRunModel(t *testing.T) {
 // P21.3: so is what Make returns, with faults and without.
 func TestRunMadeModel(t *testing.T) {
 	turn := 0
-	modules(t, 120, func(m api.Module) {
+	samples.Plain(t, 120, func(m api.Module) {
 		lists := faultLists()
 		v := made(t, m, lists[turn%len(lists)]...)
 		turn++

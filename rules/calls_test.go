@@ -52,6 +52,9 @@ func sources(look func(name string, calls func(t *testing.T, look func(c call)))
 	look("choose.Make", makeCalls)
 	look("choose.Check", checkVirtualCalls)
 	look("choose.Run", runVirtualCalls)
+	look("alloc.Spans", spansCalls)
+	look("alloc.Spilled", spilledCalls)
+	look("alloc.Alloc", allocCalls)
 }
 
 // passArgs are the arguments of a pass, passResult is what it returns.

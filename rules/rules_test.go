@@ -1,4 +1,4 @@
-// P1 with its rules R2 to R4 and R6, for passes, pipeline, target and choose, and with them P13.4, P14.4, P15.4, P16.4, P17.4, P18.4 and P19.6.
+// P1 with its rules R2 to R4 and R6, for passes, pipeline, target, choose and alloc, and with them P13.4, P14.4, P15.4, P16.4, P17.4, P18.4 and P19.6.
 
 package rules
 

@@ -1,4 +1,4 @@
-// Package samples makes modules for the tests of what works on modules, has what these tests ask of passes, and reads and writes virtual code for others.
+// Package samples makes modules for the tests of what works on modules, has what these tests ask of passes, and makes, reads and writes virtual code for others.
 package samples
 
 import (

@@ -6,6 +6,7 @@ import (
 	"testing"
 
 	"cupel/api"
+	"cupel/choose"
 	"cupel/samples"
 )
 
@@ -90,5 +91,75 @@ func TestWrongVirtualText(t *testing.T) {
 		if list := told(func(t samples.T) { samples.ReadVirtual(t, text) }); len(list) != 1 {
 			t.Errorf("%q: %v", text, list)
 		}
+	}
+}
+
+// Virtual code that is made is the same for the same seed, different for others, valid, and has all operations and as many registers as it may.
+func TestVirtual(t *testing.T) {
+	ops, regs := map[int]int{}, map[int]int{}
+	last, calls := "", 0
+	for seed := range uint64(600) {
+		most := 1 + int(seed%9)
+		v := samples.Virtual(seed, most)
+		text := samples.VirtualText(v)
+		if e := choose.Check(v); e != api.OK || text == last || text != samples.VirtualText(samples.Virtual(seed, most)) {
+			t.Fatalf("seed %d: error %d: %s", seed, e, text)
+		}
+		last = text
+		for _, f := range v.Funcs {
+			if regs[most] = max(regs[most], f.Regs); f.Regs > most {
+				t.Fatalf("seed %d: %d registers, not up to %d", seed, f.Regs, most)
+			}
+			for _, list := range f.Blocks {
+				for _, x := range list {
+					ops[x.Op]++
+				}
+			}
+		}
+		if strings.Contains(text, "call") {
+			calls++
+		}
+	}
+	for _, o := range samples.VirtualOps() {
+		if ops[o.Op] < 50 {
+			t.Errorf("%s: %d times", o.Word, ops[o.Op])
+		}
+	}
+	for most := range 9 {
+		if regs[1+most] != 1+most {
+			t.Errorf("registers: %v", regs)
+		}
+	}
+	if calls < 50 {
+		t.Errorf("%d with calls", calls)
+	}
+}
+
+// Modules without phis are valid, of many kinds, and have constants of all sizes.
+func TestPlain(t *testing.T) {
+	seen, all, calls := map[int64]int{}, 0, 0
+	samples.Plain(t, 60, func(m api.Module) {
+		all++
+		for k, f := range m.Funcs {
+			if e := samples.NoPhi(m, k); e != api.OK {
+				t.Fatalf("%s\n%d: error %d", samples.Text(m), k, e)
+			}
+			for _, block := range f.Blocks {
+				for _, x := range block.Code {
+					seen[x.A.Imm]++
+					if x.Op == api.IxCall {
+						calls++
+					}
+				}
+			}
+		}
+	})
+	for _, v := range []int64{0, 1, -1, 255, 1 << 31, -1 << 31, 1<<63 - 1, -1 << 63} {
+		if seen[v] < 5 {
+			t.Errorf("the constant %d: %d times", v, seen[v])
+		}
+	}
+	if all < 160 || calls < 300 {
+		t.Errorf("%d modules, %d calls", all, calls)
 	}
 }

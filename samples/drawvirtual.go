@@ -1,37 +1,37 @@
-package choose_test
+package samples
 
 import (
-	"math/rand/v2"
+	"math"
 
 	"cupel/api"
-	"cupel/samples"
 )
 
-// drawer draws valid virtual code, whose functions call those with higher indices.
-type drawer struct {
-	*rand.Rand
+// virtualDrawer draws valid virtual code, whose functions call those with higher indices.
+type virtualDrawer struct {
+	*Dice
 	v     api.VCode
 	f     *api.VFunc
 	index int
 }
 
-func drawCode(r *rand.Rand) api.VCode {
-	d := drawer{Rand: r}
-	d.v = api.VCode{Words: r.IntN(10), Funcs: make([]api.VFunc, 1+r.IntN(4))}
-	d.v.Main = r.IntN(min(2, len(d.v.Funcs)))
-	for range r.IntN(d.v.Words + 1) {
+// Virtual makes valid virtual code, whose functions have up to so many registers.
+func Virtual(seed uint64, regs int) api.VCode {
+	d := virtualDrawer{Dice: NewDice(seed)}
+	d.v = api.VCode{Words: d.IntN(10), Funcs: make([]api.VFunc, 1+d.IntN(4))}
+	d.v.Main = d.IntN(min(2, len(d.v.Funcs)))
+	for range d.IntN(d.v.Words + 1) {
 		d.v.Data = append(d.v.Data, d.number())
 	}
 	for i := range d.v.Funcs {
 		d.f, d.index = &d.v.Funcs[i], i
-		d.function()
+		d.function(regs)
 	}
 	return d.v
 }
 
-func (d drawer) function() {
+func (d virtualDrawer) function(regs int) {
 	f := d.f
-	f.Regs = 1 + d.IntN(5)
+	f.Regs = 1 + d.IntN(regs)
 	if d.index != d.v.Main {
 		f.Args = d.IntN(4)
 	}
@@ -49,32 +49,27 @@ func (d drawer) function() {
 	}
 }
 
-func (d drawer) number() int64 {
-	return pick[int64](d.Rand, 0, 0, 1, 1, 2, 3, 4, 5, 7, 9, 11, 64, 255, -1, -2, -7, 19998, 19999, 20000, 1<<31, least, greatest)
+func (d virtualDrawer) number() int64 {
+	return pick[int64](d.Dice, 0, 0, 1, 1, 2, 3, 4, 5, 7, 9, 11, 64, 255, -1, -2, -7, 19998, 19999, 20000, 1<<31, math.MinInt64, math.MaxInt64)
 }
 
-func (d drawer) short() int64 {
-	return pick[int64](d.Rand, 0, 0, 0, 1, 1, 2, 2, 3, 4, 5, -1, -2, 19999, -19999, 1<<31-1, -1<<31)
+func (d virtualDrawer) short() int64 {
+	return pick[int64](d.Dice, 0, 0, 0, 1, 1, 2, 2, 3, 4, 5, -1, -2, 19999, -19999, math.MaxInt32, math.MinInt32)
 }
 
-func (d drawer) reg() int { return d.IntN(d.f.Regs) }
+func (d virtualDrawer) reg() int { return d.IntN(d.f.Regs) }
 
 // instr draws an instruction that ends no block; its Op is 0 if there is nothing for it to name.
-func (d drawer) instr() api.VInstr {
-	ops := samples.VirtualOps()
+func (d virtualDrawer) instr() api.VInstr {
+	ops := VirtualOps()
 	o := ops[d.IntN(len(ops))]
 	if d.IntN(3) > 0 { // operations are many
 		o = ops[d.IntN(api.VcResult)]
 	}
 	x := api.VInstr{Op: o.Op, D: -1, A: -1, B: -1}
 	for _, field := range o.Fields {
-		switch field {
-		case 'D':
-			x.D = d.reg()
-		case 'A':
-			x.A = d.reg()
-		case 'B':
-			x.B = d.reg()
+		if field != 'I' {
+			*registerOf(&x, field) = d.reg()
 		}
 	}
 	most := 0
@@ -89,7 +84,7 @@ func (d drawer) instr() api.VInstr {
 	case api.VcParam:
 		most = d.f.Args
 	case api.VcArg:
-		most = pick(d.Rand, 2, 4, 16)
+		most = pick(d.Dice, 2, 4, 16)
 	case api.VcCall:
 		most = len(d.v.Funcs) - d.index - 1
 		x.Imm = int64(d.index) + 1
@@ -107,7 +102,7 @@ func (d drawer) instr() api.VInstr {
 }
 
 // end draws what a block ends with.
-func (d drawer) end(isLast bool) []api.VInstr {
+func (d virtualDrawer) end(isLast bool) []api.VInstr {
 	to := func() int64 { return int64(d.IntN(len(d.f.Blocks))) }
 	jump := api.VInstr{Op: api.VcJump, D: -1, A: -1, B: -1, Imm: to()}
 	kind := d.IntN(12)
@@ -121,3 +116,6 @@ func (d drawer) end(isLast bool) []api.VInstr {
 	}
 	return []api.VInstr{{Op: api.VcZero, D: -1, A: d.reg(), B: -1, Imm: to()}, jump}
 }
+
+// pick draws one of a list.
+func pick[V any](d *Dice, list ...V) V { return list[d.IntN(len(list))] }
